@@ -5,6 +5,7 @@ import (
 	"strings"
 	"testing"
 
+	"workpiece/sample"
 	"workpiece/wire"
 )
 
@@ -22,16 +23,6 @@ func refSum(s string) int {
 		}
 	}
 	return int(^register)
-}
-
-// noise returns size bytes that look random and are the same in every run.
-func noise(size int, seed uint64) string {
-	out := make([]byte, size)
-	for i := range out {
-		seed = seed*6364136223846793005 + 1442695040888963407
-		out[i] = byte(seed >> 56)
-	}
-	return string(out)
 }
 
 // P1.3: the example of the chapter, and checksums that are known elsewhere.
@@ -70,16 +61,16 @@ func TestSumAgainstDefinition(t *testing.T) {
 		}
 	}
 	for size := range 300 {
-		check(noise(size, uint64(size)))
+		check(sample.Bytes(size, uint64(size)))
 	}
-	check(noise(200000, 7))
+	check(sample.Bytes(200000, 7))
 }
 
 // P1.3: a checksum is an integer from 0 to 4294967295, and both halves occur.
 func TestSumRange(t *testing.T) {
 	great := 0
 	for seed := range 1000 {
-		n := wire.Sum(noise(9, uint64(seed)))
+		n := wire.Sum(sample.Bytes(9, uint64(seed)))
 		if n < 0 || n > 4294967295 {
 			t.Errorf("Sum is %d", n)
 		}

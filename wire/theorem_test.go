@@ -6,6 +6,7 @@ import (
 	"testing"
 
 	"workpiece/api"
+	"workpiece/sample"
 	"workpiece/wire"
 )
 
@@ -107,7 +108,7 @@ func TestIntAcceptsLong(t *testing.T) {
 		}
 	}
 	for seed := range 20000 {
-		checkInt(t, noise(12, uint64(seed)))
+		checkInt(t, sample.Bytes(12, uint64(seed)))
 	}
 }
 
@@ -133,11 +134,11 @@ func TestStringAccepts(t *testing.T) {
 	for i := range 256 {
 		for j := range 256 {
 			check(string([]byte{byte(i), byte(j)})+"abc", 0)
-			check("x"+string([]byte{byte(i), byte(j)})+noise(200, uint64(j)), 1)
+			check("x"+string([]byte{byte(i), byte(j)})+sample.Bytes(200, uint64(j)), 1)
 		}
 	}
 	for seed := range 2000 {
-		s := noise(20, uint64(seed))
+		s := sample.Bytes(20, uint64(seed))
 		for at := range len(s) + 1 {
 			check(s, at)
 		}
@@ -152,7 +153,7 @@ func TestConcatenation(t *testing.T) {
 	for i, n := range ints {
 		code, _ := wire.PutInt(n)
 		all.WriteString(code)
-		code, _ = wire.PutString(noise(i%150, uint64(i)))
+		code, _ = wire.PutString(sample.Bytes(i%150, uint64(i)))
 		all.WriteString(code)
 	}
 	s := all.String()
@@ -163,7 +164,7 @@ func TestConcatenation(t *testing.T) {
 			t.Fatalf("integer %d is %d, %d; want %d", i, m, err, n)
 		}
 		u, next, err := wire.String(s, next)
-		if u != noise(i%150, uint64(i)) || err != api.OK {
+		if u != sample.Bytes(i%150, uint64(i)) || err != api.OK {
 			t.Fatalf("string %d is %q, %d", i, u, err)
 		}
 		at = next
@@ -188,7 +189,7 @@ func flip(s string, at int, pattern uint64) string {
 // P1.4: a change of at most 32 consecutive bits changes Sum.
 func TestSumOfBursts(t *testing.T) {
 	for size := 1; size <= 12; size++ {
-		s := noise(size, uint64(size))
+		s := sample.Bytes(size, uint64(size))
 		old := wire.Sum(s)
 		for at := range 8 * size {
 			check := func(pattern uint64) {
@@ -213,7 +214,7 @@ func TestSumOfBursts(t *testing.T) {
 // linearly independent, and add up (XOR), so that no burst there cancels out.
 func TestSumOfWindows(t *testing.T) {
 	for _, size := range []int{4, 5, 9, 40} {
-		s := noise(size, uint64(size))
+		s := sample.Bytes(size, uint64(size))
 		old := wire.Sum(s)
 		for at := range 8*size - 31 {
 			var basis [32]int
