@@ -11,3 +11,33 @@ func Bytes(size int, seed uint64) string {
 	}
 	return string(out)
 }
+
+// Digits returns an integer with size digits, which must be at least 1. Many of
+// its groups of four digits are at the ends of what a group can be, where carries
+// and wrong estimates show.
+func Digits(size int, seed uint64) string {
+	random := Bytes(2*size+5, seed)
+	out := make([]byte, 0, size+3)
+	for at := 0; len(out) < size; at += 5 {
+		switch kind := random[at] % 16; {
+		case kind < 3:
+			out = append(out, "0000"...)
+		case kind < 6:
+			out = append(out, "9999"...)
+		case kind == 6:
+			out = append(out, "0001"...)
+		case kind == 7:
+			out = append(out, "9998"...)
+		default:
+			for _, b := range []byte(random[at+1 : at+5]) {
+				out = append(out, '0'+b%10)
+			}
+		}
+	}
+	// The groups begin at the last digit.
+	out = out[len(out)-size:]
+	if out[0] == '0' {
+		out[0] = '1'
+	}
+	return string(out)
+}
