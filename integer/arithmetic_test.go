@@ -8,6 +8,7 @@ import (
 
 	"workpiece/api"
 	"workpiece/integer"
+	"workpiece/sample"
 )
 
 // P3.1: the examples of the chapter.
@@ -110,7 +111,7 @@ func TestEdgePairs(t *testing.T) {
 // P3.1 to P3.7: pairs of numbers of all lengths.
 func TestPairs(t *testing.T) {
 	for _, length := range []int{10, 30, 100, api.MaxDigits} {
-		first, second := samples(3000, length, 3), samples(3000, length, 4)
+		first, second := sample.Integers(3000, length, 3), sample.Integers(3000, length, 4)
 		for i, a := range first {
 			checkPair(t, a, second[i])
 		}
@@ -119,7 +120,7 @@ func TestPairs(t *testing.T) {
 
 // P3.3: the laws of sums and products, wherever nothing is too large.
 func TestLaws(t *testing.T) {
-	list := append([]string{"0", "1", "-1", most, "-" + most}, samples(25, 60, 5)...)
+	list := append([]string{"0", "1", "-1", most, "-" + most}, sample.Integers(25, 60, 5)...)
 	for _, a := range list {
 		for _, b := range list {
 			checkLaws(t, a, b)
@@ -157,7 +158,7 @@ func checkLawsOfThree(t *testing.T, a, b, c string) {
 
 // P3.7: adding the same keeps the order, which is the sign of the difference.
 func TestOrder(t *testing.T) {
-	list := append(edges(), samples(40, 60, 6)...)
+	list := append(edges(), sample.Integers(40, 60, 6)...)
 	for i, a := range list {
 		for k, b := range list {
 			order := integer.Compare(a, b)

@@ -59,7 +59,7 @@ func TestDivSmall(t *testing.T) {
 // P3.4: the quotient times the divisor, plus the remainder, is the dividend, in
 // the functions of the package.
 func TestDivTheorem(t *testing.T) {
-	dividends, divisors := samples(2000, api.MaxDigits, 7), samples(2000, 120, 8)
+	dividends, divisors := sample.Integers(2000, api.MaxDigits, 7), sample.Integers(2000, 120, 8)
 	for i, a := range dividends {
 		b := divisors[i]
 		q, r, err := integer.Div(a, b)
@@ -125,7 +125,7 @@ func TestGcdSmall(t *testing.T) {
 // P3.5: the divisor divides both arguments, and a known common divisor divides
 // it; what it leaves of both has no common divisor but 1.
 func TestGcdTheorem(t *testing.T) {
-	commons, first, second := samples(600, 90, 9), samples(600, 100, 10), samples(600, 40, 11)
+	commons, first, second := sample.Integers(600, 90, 9), sample.Integers(600, 100, 10), sample.Integers(600, 40, 11)
 	for i, common := range commons {
 		a, b := product(common, first[i]), product(common, second[i])
 		g := divisor(a, b)
@@ -167,7 +167,7 @@ func TestGcdKnown(t *testing.T) {
 // P3.6: the square of the root is at most the argument, and the next square is
 // greater.
 func TestRoot(t *testing.T) {
-	for _, s := range append(edges(), samples(2000, api.MaxDigits, 12)...) {
+	for _, s := range append(edges(), sample.Integers(2000, api.MaxDigits, 12)...) {
 		got := root(s)
 		n := number(s)
 		if n.Sign() < 0 {
@@ -188,7 +188,7 @@ func TestRoot(t *testing.T) {
 
 // P3.6: squares, and the numbers next to them.
 func TestRootOfSquares(t *testing.T) {
-	list := append(edges(), samples(1000, 100, 13)...)
+	list := append(edges(), sample.Integers(1000, 100, 13)...)
 	for n := range 200 {
 		list = append(list, strconv.Itoa(n))
 	}
@@ -210,7 +210,7 @@ func TestRootOfSquares(t *testing.T) {
 
 // P3.2: every function that makes a number makes the same integer for it.
 func TestOneForm(t *testing.T) {
-	for _, s := range append(edges(), samples(300, 99, 14)...) {
+	for _, s := range append(edges(), sample.Integers(300, 99, 14)...) {
 		q, zero, _ := integer.Div(s, "1")
 		all := []string{sum(s, "0"), sum("0", s), difference(s, "0"), product(s, "1"), product("-1", negated(s)), q}
 		if number(s).Sign() >= 0 {

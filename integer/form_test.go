@@ -8,6 +8,7 @@ import (
 
 	"workpiece/api"
 	"workpiece/integer"
+	"workpiece/sample"
 )
 
 // P3.1: the examples of the chapter, the limit, and strings of other forms.
@@ -17,7 +18,7 @@ func TestValid(t *testing.T) {
 			t.Errorf("Valid(%q) = false", s)
 		}
 	}
-	for _, s := range append(edges(), samples(300, api.MaxDigits, 1)...) {
+	for _, s := range append(edges(), sample.Integers(300, api.MaxDigits, 1)...) {
 		if !integer.Valid(s) {
 			t.Errorf("Valid(%q) = false", s)
 		}
@@ -31,14 +32,7 @@ func TestValid(t *testing.T) {
 
 // P3.2: among all short strings, exactly one is valid for each number.
 func TestValidShort(t *testing.T) {
-	const letters = "-+0123789 _/:a"
-	list := []string{""}
-	for from := 0; len(list[from]) < 5; from++ {
-		for _, letter := range letters {
-			list = append(list, list[from]+string(letter))
-		}
-	}
-	for _, s := range list {
+	for _, s := range sample.Strings("-+0123789 _/:a", 5) {
 		n, err := strconv.Atoi(s)
 		if integer.Valid(s) != (err == nil && strconv.Itoa(n) == s) {
 			t.Errorf("Valid(%q) = %t", s, integer.Valid(s))
@@ -81,7 +75,7 @@ func TestInts(t *testing.T) {
 
 // P3.1: integers of all sizes are those of 64 bits, or refused.
 func TestToInt(t *testing.T) {
-	list := append(edges(), samples(500, 25, 2)...)
+	list := append(edges(), sample.Integers(500, 25, 2)...)
 	list = append(list, "9223372036854775808", "-9223372036854775809", "18446744073709551616", "-18446744073709551615", "18446744073709551617", "100000000000000000000", "-100000000000000000001")
 	for _, s := range list {
 		want, wantErr := 0, api.ErrInteger

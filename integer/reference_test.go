@@ -6,7 +6,6 @@ import (
 
 	"workpiece/api"
 	"workpiece/integer"
-	"workpiece/sample"
 )
 
 // most is the greatest valid integer.
@@ -77,20 +76,6 @@ func edges() []string {
 		}
 	}
 	return bothSigns(sizes)
-}
-
-// samples returns count integers of all lengths up to the given one.
-func samples(count int, length int, seed uint64) []string {
-	var out []string
-	for i := range count {
-		random := sample.Bytes(3, seed+uint64(i))
-		s := sample.Digits(1+(int(random[0])<<8+int(random[1]))%length, seed+uint64(i))
-		if random[2]%2 == 0 {
-			s = negated(s)
-		}
-		out = append(out, s)
-	}
-	return out
 }
 
 // bothSigns returns the integers of sizes and their negations.

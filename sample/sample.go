@@ -41,3 +41,30 @@ func Digits(size int, seed uint64) string {
 	}
 	return string(out)
 }
+
+// Integers returns count integers of all lengths up to the given one, and of both
+// signs. None is 0.
+func Integers(count int, length int, seed uint64) []string {
+	var out []string
+	for i := range count {
+		random := Bytes(3, seed+uint64(i))
+		s := Digits(1+(int(random[0])<<8+int(random[1]))%length, seed+uint64(i))
+		if random[2]%2 == 0 {
+			s = "-" + s
+		}
+		out = append(out, s)
+	}
+	return out
+}
+
+// Strings returns all strings of up to length of the letters, which must be ASCII;
+// the shorter ones come first.
+func Strings(letters string, length int) []string {
+	list := []string{""}
+	for from := 0; len(list[from]) < length; from++ {
+		for i := range len(letters) {
+			list = append(list, list[from]+letters[i:i+1])
+		}
+	}
+	return list
+}
