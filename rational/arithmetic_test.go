@@ -6,6 +6,7 @@ import (
 
 	"workpiece/api"
 	"workpiece/rational"
+	"workpiece/sample"
 )
 
 // parsed returns the fraction with the text s.
@@ -24,7 +25,7 @@ func ones(digits int) string { return strings.Repeat("1", digits) }
 func TestArithmeticExamples(t *testing.T) {
 	for _, c := range []struct{ got, want string }{
 		{sum(parsed("1/2"), parsed("1/3")), "5/6"}, {difference(parsed("1/2"), parsed("1/2")), "0"}, {product(parsed("-2/3"), parsed("3/4")), "-1/2"},
-		{quotient(parsed("1/2"), parsed("-1/4")), "-2"}, {quotient(parsed("1"), parsed("0")), refused}, {product(parsed(power(150)), parsed(power(150))), refused},
+		{quotient(parsed("1/2"), parsed("-1/4")), "-2"}, {quotient(parsed("1"), parsed("0")), refused}, {product(parsed(sample.Power(150)), parsed(sample.Power(150))), refused},
 	} {
 		if c.got != c.want {
 			t.Errorf("%s instead of %s", c.got, c.want)
@@ -36,18 +37,18 @@ func TestArithmeticExamples(t *testing.T) {
 // many digits, even where the reduced result would not; and nothing else is too
 // large.
 func TestTooLarge(t *testing.T) {
-	many, half := power(150), power(100)
+	many, half := sample.Power(150), sample.Power(100)
 	third := "1/3" + many[1:]
 	for _, c := range []struct{ name, got, want string }{
-		{"sum, left product", sum(parsed(many), parsed("1/"+power(50))), refused},
-		{"sum, right product", sum(parsed("1/"+power(50)), parsed(many)), refused},
+		{"sum, left product", sum(parsed(many), parsed("1/"+sample.Power(50))), refused},
+		{"sum, right product", sum(parsed("1/"+sample.Power(50)), parsed(many)), refused},
 		{"sum, sum", sum(parsed(nines), parsed("1")), refused},
 		{"sum, negative sum", sum(parsed("-"+nines), parsed("-1")), refused},
 		{"sum, Den", sum(parsed("1/"+half), parsed("-1/"+half)), refused},
 		{"sum of 0, Den", sum(parsed("1/"+nines), parsed("0")), "1/" + nines},
-		{"sum", sum(parsed(power(199)), parsed("-"+nines)), "-8" + nines[1:]},
-		{"difference, left product", difference(parsed(many), parsed("1/"+power(50))), refused},
-		{"difference, right product", difference(parsed("1/"+power(50)), parsed(many)), refused},
+		{"sum", sum(parsed(sample.Power(199)), parsed("-"+nines)), "-8" + nines[1:]},
+		{"difference, left product", difference(parsed(many), parsed("1/"+sample.Power(50))), refused},
+		{"difference, right product", difference(parsed("1/"+sample.Power(50)), parsed(many)), refused},
 		{"difference, difference", difference(parsed("-"+nines), parsed("1")), refused},
 		{"difference, negative", difference(parsed(nines), parsed("-1")), refused},
 		{"difference, Den", difference(parsed("1/"+half), parsed("1/"+half)), refused},
@@ -59,7 +60,7 @@ func TestTooLarge(t *testing.T) {
 		{"product, cancelled, Num", product(parsed("7"+half[1:]+"/3"), parsed("3"+half[1:]+"/7")), refused},
 		{"product, cancelled, Den", product(parsed("3/7"+half[1:]), parsed("7/3"+half[1:])), refused},
 		{"product", product(parsed(nines[:100]), parsed("-"+nines[:100])), "-" + nines[:99] + "8" + strings.Repeat("0", 99) + "1"},
-		{"product of 0", product(parsed("0"), parsed(nines+"/"+power(199))), "0"},
+		{"product of 0", product(parsed("0"), parsed(nines+"/"+sample.Power(199))), "0"},
 		{"product of 0, Den", product(parsed("0"), parsed("1/"+nines)), "0"},
 		{"quotient, Num", quotient(parsed(half), parsed("1/"+half)), refused},
 		{"quotient, Den", quotient(parsed("1/"+half), parsed(half)), refused},
@@ -78,8 +79,8 @@ func TestTooLarge(t *testing.T) {
 // P4.1: operations with what is not a valid fraction, on both sides.
 func TestInvalidArguments(t *testing.T) {
 	operations := []func(a, b api.Ratio) string{sum, difference, product, quotient}
-	for _, r := range invalid {
-		for _, s := range append(invalid, parsed("1"), parsed("0"), parsed("-3/7")) {
+	for _, r := range sample.InvalidFractions() {
+		for _, s := range append(sample.InvalidFractions(), parsed("1"), parsed("0"), parsed("-3/7")) {
 			for i, operation := range operations {
 				if operation(r, s) != refused || operation(s, r) != refused {
 					t.Errorf("operation %d of %.50q and %.50q", i, r, s)
@@ -110,7 +111,7 @@ func checkPair(t *testing.T, a, b api.Ratio) {
 
 // P4.1 to P4.4: all pairs of small fractions, and of those at the limit.
 func TestAllPairs(t *testing.T) {
-	for _, list := range [][]api.Ratio{smalls(8), edges()} {
+	for _, list := range [][]api.Ratio{sample.SmallFractions(8), sample.LargeFractions()} {
 		for i, a := range list {
 			for k, b := range list {
 				if len(list) < 200 || (i+k)%12 == 0 || i == k {
@@ -124,7 +125,7 @@ func TestAllPairs(t *testing.T) {
 // P4.1 to P4.4: pairs of fractions of all lengths.
 func TestPairs(t *testing.T) {
 	for _, length := range []int{5, 20, 50, 66, 100, api.MaxDigits} {
-		first, second := fractions(600, length, 6), fractions(600, length, 7)
+		first, second := sample.Fractions(600, length, 6), sample.Fractions(600, length, 7)
 		for i, a := range first {
 			checkPair(t, a, second[i])
 			checkPair(t, a, a)
@@ -146,7 +147,7 @@ func chained(operation func(a, b api.Ratio) string, s, u string) string {
 
 // P4.3: the laws of a field, wherever nothing is too large.
 func TestField(t *testing.T) {
-	list := append(append(smalls(3), fractions(10, 16, 8)...), edges()[:6]...)
+	list := append(append(sample.SmallFractions(3), sample.Fractions(10, 16, 8)...), sample.LargeFractions()[:6]...)
 	compared := 0
 	for _, a := range list {
 		for _, b := range list {

@@ -12,12 +12,12 @@ import (
 
 // P4.1: valid fractions, and the others.
 func TestValid(t *testing.T) {
-	for _, r := range append(append(smalls(12), edges()...), fractions(300, api.MaxDigits, 1)...) {
+	for _, r := range append(append(sample.SmallFractions(12), sample.LargeFractions()...), sample.Fractions(300, api.MaxDigits, 1)...) {
 		if !rational.Valid(r) {
 			t.Errorf("Valid(%s) = false", text(r))
 		}
 	}
-	for _, r := range invalid {
+	for _, r := range sample.InvalidFractions() {
 		if rational.Valid(r) {
 			t.Errorf("Valid(%.50q) = true", r)
 		}
@@ -84,7 +84,7 @@ func TestOf(t *testing.T) {
 // P4.1 and P4.2: Make reduces, whatever the signs and the common factor.
 func TestMake(t *testing.T) {
 	commons := append([]string{"1", "-1", "2", "-6"}, sample.Integers(6, 90, 2)...)
-	for _, r := range append(smalls(6), fractions(200, 100, 3)...) {
+	for _, r := range append(sample.SmallFractions(6), sample.Fractions(200, 100, 3)...) {
 		for _, common := range commons {
 			n, d := times(r.Num, common), times(r.Den, common)
 			if !fit(n, d) {
@@ -102,7 +102,7 @@ func TestMakeEnds(t *testing.T) {
 	for _, c := range []struct{ num, den, want string }{
 		{"1", "0", refused}, {"0", "0", refused}, {"-" + nines, "0", refused}, {"10", "-0", refused}, {"-0", "10", refused}, {"", "1", refused}, {"1", "", refused},
 		{"+1", "2", refused}, {"1", "02", refused}, {"1/2", "1", refused}, {"1", "-", refused}, {"x", "-1", refused}, {"x", "0", refused}, {"0", "x", refused},
-		{power(200), "1", refused}, {"1", power(200), refused}, {power(200), power(200), refused}, {"-" + power(200), "-1", refused},
+		{sample.Power(200), "1", refused}, {"1", sample.Power(200), refused}, {sample.Power(200), sample.Power(200), refused}, {"-" + sample.Power(200), "-1", refused},
 		{nines, nines, "1"}, {nines, "-" + nines, "-1"}, {"-" + nines, "-1", nines}, {"0", "-" + nines, "0"}, {"1", "-" + nines, "-1/" + nines},
 		{nines, "9", ones(api.MaxDigits)}, {"9", nines, "1/" + ones(api.MaxDigits)},
 	} {
@@ -115,7 +115,7 @@ func TestMakeEnds(t *testing.T) {
 // P4.2: two valid fractions have the same value exactly if they are equal, and
 // exactly if Print returns the same for both.
 func TestPrintOfPairs(t *testing.T) {
-	list := append(smalls(6), edges()[:150]...)
+	list := append(sample.SmallFractions(6), sample.LargeFractions()[:150]...)
 	for _, a := range list {
 		for _, b := range list {
 			same := value(a).Cmp(value(b)) == 0
@@ -128,7 +128,7 @@ func TestPrintOfPairs(t *testing.T) {
 
 // P4.6: Parse reverses Print; Print returns nothing for what is not valid.
 func TestPrint(t *testing.T) {
-	for _, r := range append(append(smalls(12), edges()...), fractions(500, api.MaxDigits, 4)...) {
+	for _, r := range append(append(sample.SmallFractions(12), sample.LargeFractions()...), sample.Fractions(500, api.MaxDigits, 4)...) {
 		s := rational.Print(r)
 		if s != text(r) {
 			t.Errorf("Print(%q) = %q", r, s)
@@ -137,7 +137,7 @@ func TestPrint(t *testing.T) {
 			t.Errorf("Parse(%q) = %q, %d", s, back, err)
 		}
 	}
-	for _, r := range invalid {
+	for _, r := range sample.InvalidFractions() {
 		if s := rational.Print(r); s != "" {
 			t.Errorf("Print(%.50q) = %.50q", r, s)
 		}
@@ -179,12 +179,12 @@ func TestParseShort(t *testing.T) {
 func TestParse(t *testing.T) {
 	list := []string{
 		"-3/2", "3/-2", "6/4", "3/1", "+3", "1/2/3", "1//2", "/", "//", "1/", "/1", "-/2", "0/1", "0/7", "-0/1", "1\\2", "1:2", "1/2 ", " 1/2", "1 /2", "1/2\x00", "½", "1⁄2", "1.5", "1e2",
-		nines, "-" + nines, nines + "/" + power(199), "1/" + nines, nines + "9", "1/" + nines + "9", power(200), "1/" + power(200), nines + "/3", "-" + nines + "/" + nines, nines + "/1",
+		nines, "-" + nines, nines + "/" + sample.Power(199), "1/" + nines, nines + "9", "1/" + nines + "9", sample.Power(200), "1/" + sample.Power(200), nines + "/3", "-" + nines + "/" + nines, nines + "/1",
 	}
 	for _, s := range list {
 		checkParse(t, s)
 	}
-	for _, r := range append(smalls(4), fractions(10, 30, 5)...) {
+	for _, r := range append(sample.SmallFractions(4), sample.Fractions(10, 30, 5)...) {
 		s := text(r)
 		for i := range len(s) {
 			checkParse(t, s[:i])

@@ -42,7 +42,7 @@ func TestCompareExamples(t *testing.T) {
 // P4.4: a sorted list has each fraction before all that are greater, of whatever
 // size.
 func TestTotalOrder(t *testing.T) {
-	list := append(append(smalls(6), edges()...), fractions(40, api.MaxDigits, 9)...)
+	list := append(append(sample.SmallFractions(6), sample.LargeFractions()...), sample.Fractions(40, api.MaxDigits, 9)...)
 	sort.Slice(list, func(i, k int) bool { return rational.Compare(list[i], list[k]) < 0 })
 	for i := 1; i < len(list); i++ {
 		if order := value(list[i-1]).Cmp(value(list[i])); order > 0 || order == 0 && list[i-1] != list[i] {
@@ -107,16 +107,16 @@ func TestCompareConvergents(t *testing.T) {
 // products are too large, and fractions next to each other with the same Den.
 func TestCompareNeighbours(t *testing.T) {
 	for _, size := range []int{1, 50, 99, 100, 101, 150, 199} {
-		n, d := number(power(size)), number(power(api.MaxDigits-size))
+		n, d := number(sample.Power(size)), number(sample.Power(api.MaxDigits-size))
 		for _, shift := range []int64{-3, -1, 0, 1, 3} {
 			num := new(big.Int).Add(new(big.Int).Mul(n, d), big.NewInt(shift))
 			if !fit(num) {
 				continue
 			}
-			a := fraction(num.String(), d.String())
+			a := sample.Fraction(num.String(), d.String())
 			checkOrder(t, a, parsed(n.String()))
 			if next := new(big.Int).Add(num, big.NewInt(2)); fit(next) {
-				checkOrder(t, a, fraction(next.String(), d.String()))
+				checkOrder(t, a, sample.Fraction(next.String(), d.String()))
 			}
 		}
 	}
@@ -125,7 +125,7 @@ func TestCompareNeighbours(t *testing.T) {
 // P4.4: the order is the sign of the difference, and is kept by adding the same
 // and by multiplying by the same positive fraction.
 func TestOrderLaws(t *testing.T) {
-	list := append(append(smalls(3), fractions(16, 30, 11)...), edges()[:8]...)
+	list := append(append(sample.SmallFractions(3), sample.Fractions(16, 30, 11)...), sample.LargeFractions()[:8]...)
 	compared := 0
 	for _, a := range list {
 		for _, b := range list {

@@ -2,7 +2,6 @@ package rational_test
 
 import (
 	"math/big"
-	"strings"
 
 	"workpiece/api"
 	"workpiece/rational"
@@ -10,13 +9,10 @@ import (
 )
 
 // nines is the greatest integer of package integer.
-var nines = strings.Repeat("9", api.MaxDigits)
+var nines = sample.Nines()
 
 // tooLarge is the least number that package integer does not have.
-var tooLarge = number(power(api.MaxDigits))
-
-// power returns the integer 1 followed by so many zeros.
-func power(zeros int) string { return "1" + strings.Repeat("0", zeros) }
+var tooLarge = number(sample.Power(api.MaxDigits))
 
 // number returns the number that the integer s stands for.
 func number(s string) *big.Int {
@@ -67,11 +63,6 @@ func ofValue(v *big.Rat) api.Ratio {
 	return api.Ratio{Num: v.Num().String(), Den: v.Denom().String()}
 }
 
-// fraction returns the valid fraction with the value num divided by den.
-func fraction(num, den string) api.Ratio {
-	return ofValue(new(big.Rat).SetFrac(number(num), number(den)))
-}
-
 // refused is what a function returns together with ErrRational.
 const refused = "refused"
 
@@ -120,70 +111,11 @@ func wantQuotient(a, b api.Ratio) string { return reduced(times(a.Num, b.Den), t
 
 // wantRounded returns what Down is to return for r, or Up.
 func wantRounded(r api.Ratio, places int, up bool) string {
-	units := number(power(places))
+	units := number(sample.Power(places))
 	n := new(big.Int).Mul(number(r.Num), units)
 	q, rest := new(big.Int).DivMod(n, number(r.Den), new(big.Int))
 	if up && rest.Sign() > 0 {
 		q.Add(q, big.NewInt(1))
 	}
 	return reduced(q, units, n)
-}
-
-// invalid contains fractions that are not valid.
-var invalid = []api.Ratio{
-	{}, {Num: "1"}, {Den: "1"}, {Num: "0"}, {Num: "1", Den: "0"}, {Num: "0", Den: "0"}, {Num: "-1", Den: "0"},
-	{Num: "2", Den: "4"}, {Num: "-2", Den: "4"}, {Num: "0", Den: "2"}, {Num: "3", Den: "3"}, {Num: "6", Den: "3"}, {Num: "4", Den: "6"},
-	{Num: "1", Den: "-2"}, {Num: "-1", Den: "-2"}, {Num: "0", Den: "-1"}, {Num: "1", Den: "-1"},
-	{Num: "-0", Den: "1"}, {Num: "+1", Den: "2"}, {Num: "1", Den: "+2"}, {Num: "01", Den: "2"}, {Num: "1", Den: "02"}, {Num: "x", Den: "1"}, {Num: "1", Den: "x"},
-	{Num: "1/2", Den: "1"}, {Num: "1", Den: "1/2"}, {Num: " 1", Den: "2"}, {Num: "1", Den: "2 "}, {Num: "1.0", Den: "1"}, {Num: "\xff", Den: "\x00"},
-	{Num: nines + "9", Den: "1"}, {Num: "1", Den: nines + "9"}, {Num: "-" + nines + "9", Den: "2"}, {Num: nines, Den: "3"}, {Num: "-" + nines, Den: nines},
-	{Num: strings.Repeat("1", 1<<20), Den: "1"}, {Num: "1", Den: strings.Repeat("/", 1<<20)},
-}
-
-// smalls returns all valid fractions with a Num from -most to most and a Den from
-// 1 to most.
-func smalls(most int64) []api.Ratio {
-	var out []api.Ratio
-	for n := -most; n <= most; n++ {
-		for d := int64(1); d <= most; d++ {
-			if v := big.NewRat(n, d); v.Denom().Int64() == d {
-				out = append(out, ofValue(v))
-			}
-		}
-	}
-	return out
-}
-
-// edges returns valid fractions of which operations are too large, or nearly so.
-func edges() []api.Ratio {
-	sizes := []string{"1", "2", "3", "7", "12", power(30), power(99), power(100), power(199), nines[:99], nines[:100], nines[:101], nines[:199] + "8", nines, "5" + nines[:199]}
-	out := []api.Ratio{{Num: "0", Den: "1"}}
-	known := map[api.Ratio]bool{}
-	for _, n := range sizes {
-		for _, d := range sizes {
-			for _, r := range []api.Ratio{fraction(n, d), fraction("-"+n, d)} {
-				if !known[r] {
-					known[r] = true
-					out = append(out, r)
-				}
-			}
-		}
-	}
-	return out
-}
-
-// fractions returns count valid fractions whose Num and Den have up to length
-// digits. Many have common factors with each other.
-func fractions(count int, length int, seed uint64) []api.Ratio {
-	nums, dens := sample.Integers(count, length, seed), sample.Integers(count, length, seed+1<<32)
-	factors := []string{"1", "2", "3", "10", "36", "210", "1000", "9999"}
-	var out []api.Ratio
-	for i, num := range nums {
-		n, d := times(num, factors[i%len(factors)]), times(dens[i], factors[i/3%len(factors)])
-		if fit(n, d) {
-			num, dens[i] = n.String(), d.String()
-		}
-		out = append(out, fraction(num, dens[i]))
-	}
-	return out
 }

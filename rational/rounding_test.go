@@ -7,6 +7,7 @@ import (
 
 	"workpiece/api"
 	"workpiece/rational"
+	"workpiece/sample"
 )
 
 func down(r api.Ratio, places int) string { return outcome(rational.Down(r, places)) }
@@ -21,9 +22,9 @@ func TestRoundingKnown(t *testing.T) {
 	}{
 		{"1/3", 2, "33/100", "17/50"}, {"-1/3", 2, "-17/50", "-33/100"}, {"7", 3, "7", "7"}, {"-7", 0, "-7", "-7"}, {"0", 0, "0", "0"}, {"0", 30, "0", "0"},
 		{"5/2", 0, "2", "3"}, {"-5/2", 0, "-3", "-2"}, {"1/2", 0, "0", "1"}, {"-1/2", 0, "-1", "0"}, {"1/8", 3, "1/8", "1/8"}, {"1/8", 2, "3/25", "13/100"},
-		{"1/" + power(30), 30, "1/" + power(30), "1/" + power(30)}, {"1/" + power(31), 30, "0", "1/" + power(30)}, {"-1/" + nines, 30, "-1/" + power(30), "0"},
+		{"1/" + sample.Power(30), 30, "1/" + sample.Power(30), "1/" + sample.Power(30)}, {"1/" + sample.Power(31), 30, "0", "1/" + sample.Power(30)}, {"-1/" + nines, 30, "-1/" + sample.Power(30), "0"},
 		{nines, 0, nines, nines}, {"-" + nines, 0, "-" + nines, "-" + nines}, {nines, 1, refused, refused}, {nines[:170], 30, nines[:170], nines[:170]}, {nines[:171], 30, refused, refused},
-		{nines + "/2", 0, "4" + nines[1:], "5" + power(199)[1:]}, {"-" + nines + "/2", 0, "-5" + power(199)[1:], "-4" + nines[1:]}, {nines + "/" + power(199), 1, refused, refused},
+		{nines + "/2", 0, "4" + nines[1:], "5" + sample.Power(199)[1:]}, {"-" + nines + "/2", 0, "-5" + sample.Power(199)[1:], "-4" + nines[1:]}, {nines + "/" + sample.Power(199), 1, refused, refused},
 	} {
 		if got := down(parsed(c.r), c.places); got != c.down {
 			t.Errorf("Down(%s, %d) = %s", c.r, c.places, got)
@@ -43,7 +44,7 @@ func TestRoundingRefused(t *testing.T) {
 			}
 		}
 	}
-	for _, r := range invalid {
+	for _, r := range sample.InvalidFractions() {
 		for _, places := range []int{-1, 0, 5, api.MaxPlaces, math.MaxInt} {
 			if down(r, places) != refused || up(r, places) != refused {
 				t.Errorf("%.50q is rounded to %d places", r, places)
@@ -54,12 +55,12 @@ func TestRoundingRefused(t *testing.T) {
 
 // P4.1 and P4.5: fractions of all lengths, to all numbers of places.
 func TestRounding(t *testing.T) {
-	list := append(smalls(9), edges()...)
+	list := append(sample.SmallFractions(9), sample.LargeFractions()...)
 	for _, length := range []int{4, 40, 85, 100, api.MaxDigits} {
-		list = append(list, fractions(40, length, 12)...)
+		list = append(list, sample.Fractions(40, length, 12)...)
 	}
-	for _, denominator := range []string{"8", "125", power(5), power(29), power(30), power(31), "4" + power(30)[1:]} {
-		list = append(list, fraction("12345", denominator), fraction("-1", denominator), fraction(nines[:50], denominator))
+	for _, denominator := range []string{"8", "125", sample.Power(5), sample.Power(29), sample.Power(30), sample.Power(31), "4" + sample.Power(30)[1:]} {
+		list = append(list, sample.Fraction("12345", denominator), sample.Fraction("-1", denominator), sample.Fraction(nines[:50], denominator))
 	}
 	for _, r := range list {
 		for places := range api.MaxPlaces + 1 {
@@ -83,7 +84,7 @@ func checkRounding(t *testing.T, r api.Ratio, places int) {
 	if above != text(negated(parsed(down(negated(r), places)))) {
 		t.Errorf("Up(%s, %d) = %s is not minus Down of minus it", text(r), places, above)
 	}
-	unit := new(big.Rat).SetFrac(big.NewInt(1), number(power(places)))
+	unit := new(big.Rat).SetFrac(big.NewInt(1), number(sample.Power(places)))
 	low, high := value(parsed(below)), value(parsed(above))
 	for _, v := range []*big.Rat{low, high} {
 		if !new(big.Rat).Quo(v, unit).IsInt() {
