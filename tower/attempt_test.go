@@ -1,0 +1,25 @@
+package tower
+
+import (
+	"testing"
+
+	"workpiece/api"
+)
+
+// P6.1: a calculation that panics has no result, and does not stop the program.
+func TestAttempt(t *testing.T) {
+	for _, c := range []struct {
+		cause any
+		want  api.Errno
+	}{{api.ErrTower, api.ErrTower}, {"text", api.ErrArg}, {7, api.ErrArg}} {
+		if got, err := attempt(api.Tower{}, func(*field) int { panic(c.cause) }); got != 0 || err != c.want {
+			t.Errorf("%v: %d, %d", c.cause, got, err)
+		}
+	}
+	if got, err := attempt(api.Tower{}, func(*field) int { return 7 }); got != 7 || err != api.OK {
+		t.Errorf("%d, %d", got, err)
+	}
+	if got, err := attempt(api.Tower{Radicands: [][]api.Ratio{{zero}}}, func(*field) int { return 7 }); got != 0 || err != api.ErrTower {
+		t.Errorf("%d, %d", got, err)
+	}
+}
