@@ -1,0 +1,51 @@
+package poly
+
+import (
+	"slices"
+
+	"workpiece/api"
+	"workpiece/rational"
+)
+
+// attempt returns what calculate returns, or an error if it panics.
+func attempt[T any](calculate func() T) (result T, err api.Errno) {
+	defer func() {
+		switch cause := recover().(type) {
+		case nil:
+		case api.Errno:
+			err = cause
+		default:
+			// A mistake of the program has a code of its own, so that it is not
+			// taken for a number that is too large.
+			err = api.ErrArg
+		}
+	}()
+	return calculate(), api.OK
+}
+
+// refuseIf ends the calculation without a result if condition holds.
+func refuseIf(condition bool) {
+	if condition {
+		panic(api.ErrPoly)
+	}
+}
+
+// refuseUnlessValid ends the calculation without a result unless all numbers are
+// valid.
+func refuseUnlessValid(numbers ...api.Ratio) {
+	refuseIf(slices.ContainsFunc(numbers, func(r api.Ratio) bool { return !rational.Valid(r) }))
+}
+
+// refuseUnlessOrdered ends the calculation without a result unless lo is at most
+// hi.
+func refuseUnlessOrdered(lo api.Ratio, hi api.Ratio) {
+	refuseUnlessValid(lo, hi)
+	refuseIf(rational.Compare(lo, hi) > 0)
+}
+
+// must returns value, or ends the calculation without a result if err says that
+// there is none.
+func must[T any](value T, err api.Errno) T {
+	refuseIf(err != api.OK)
+	return value
+}
