@@ -12,22 +12,10 @@ import (
 )
 
 // number returns the fraction with the text s.
-func number(s string) api.Ratio {
-	r, err := rational.Parse(s)
-	if err != api.OK {
-		panic("not a fraction: " + s)
-	}
-	return r
-}
+func number(s string) api.Ratio { return sample.Number(s) }
 
 // parsed returns the polynomial with the text s: its coefficients.
-func parsed(s string) []api.Ratio {
-	var out []api.Ratio
-	for _, word := range strings.Fields(s) {
-		out = append(out, number(word))
-	}
-	return out
-}
+func parsed(s string) []api.Ratio { return sample.Numbers(s) }
 
 // text returns the text of the polynomial p.
 func text(p []api.Ratio) string {

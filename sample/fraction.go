@@ -24,6 +24,24 @@ func Fraction(num string, den string) api.Ratio {
 	return r
 }
 
+// Number returns the valid fraction with the text s. It panics if there is none.
+func Number(s string) api.Ratio {
+	r, err := rational.Parse(s)
+	if err != api.OK {
+		panic("not a fraction: " + s)
+	}
+	return r
+}
+
+// Numbers returns the valid fractions whose texts are the words of s.
+func Numbers(s string) []api.Ratio {
+	var out []api.Ratio
+	for _, word := range strings.Fields(s) {
+		out = append(out, Number(word))
+	}
+	return out
+}
+
 // SmallFractions returns all valid fractions with a Num from -most to most and a
 // Den from 1 to most.
 func SmallFractions(most int) []api.Ratio {
