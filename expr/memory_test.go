@@ -6,26 +6,8 @@ import (
 
 	"workpiece/api"
 	"workpiece/expr"
+	"workpiece/sample"
 )
-
-// guarded returns a copy of list with spare capacity, in which marker stands.
-func guarded[T any](list []T, marker T) []T {
-	out := slices.Repeat([]T{marker}, len(list)+20)
-	copy(out, list)
-	return out[:len(list)]
-}
-
-// intact reports whether the guarded slice is still a copy of list.
-func intact[T comparable](slice []T, list []T, marker T) bool {
-	return slices.Equal(slice[:cap(slice)], guarded(list, marker)[:len(list)+20])
-}
-
-// spoil overwrites list with its spare capacity.
-func spoil[T any](list []T, marker T) {
-	for i := range list[:cap(list)] {
-		list[:cap(list)][i] = marker
-	}
-}
 
 // P8.1: no function modifies its arguments or their spare capacity, and nothing
 // that is written into a result reaches them, or another result.
@@ -34,8 +16,8 @@ func TestMemory(t *testing.T) {
 	badParam, badInterval := api.Param{Dim: 99}, api.Interval{Lo: badRatio}
 	values, ranges := valuesOf(mixed()), rangesOf(mixed())
 	for i, e := range append(append(expressions(100, true, 95), expressions(100, false, 96)...), of(parameter(1)), of(constant("2", 1)), of(constant("0", 1))) {
-		guardedExpr := api.Expr{Nodes: guarded(e.Nodes, badNode)}
-		guardedParams, guardedValues, guardedRanges := guarded(mixed(), badParam), guarded(values, badRatio), guarded(ranges, badInterval)
+		guardedExpr := api.Expr{Nodes: sample.Guarded(e.Nodes, badNode)}
+		guardedParams, guardedValues, guardedRanges := sample.Guarded(mixed(), badParam), sample.Guarded(values, badRatio), sample.Guarded(ranges, badInterval)
 		calls := func() ([]int, []api.Ratio, []api.ExprNode) {
 			expr.Valid(guardedExpr, guardedParams)
 			expr.Dim(guardedExpr, guardedParams)
@@ -49,13 +31,13 @@ func TestMemory(t *testing.T) {
 		}
 		depends, p, nodes := calls()
 		keptDepends, keptPoly, keptNodes := slices.Clone(depends), slices.Clone(p), slices.Clone(nodes)
-		spoil(depends, -99)
-		spoil(p, badRatio)
-		spoil(nodes, badNode)
+		sample.Spoil(depends, -99)
+		sample.Spoil(p, api.Ratio{})
+		sample.Spoil(nodes, api.ExprNode{})
 		if depends, p, nodes = calls(); !slices.Equal(depends, keptDepends) || !slices.Equal(p, keptPoly) || !slices.Equal(nodes, keptNodes) {
 			t.Errorf("%s: other results after the first ones were overwritten", nodesText(e))
 		}
-		if !intact(guardedExpr.Nodes, e.Nodes, badNode) || !intact(guardedParams, mixed(), badParam) || !intact(guardedValues, values, badRatio) || !intact(guardedRanges, ranges, badInterval) {
+		if !sample.Intact(guardedExpr.Nodes, e.Nodes, badNode) || !sample.Intact(guardedParams, mixed(), badParam) || !sample.Intact(guardedValues, values, badRatio) || !sample.Intact(guardedRanges, ranges, badInterval) {
 			t.Fatalf("arguments are modified for %s", nodesText(e))
 		}
 	}

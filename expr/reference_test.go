@@ -7,34 +7,25 @@ import (
 
 	"workpiece/api"
 	"workpiece/rational"
+	"workpiece/sample"
 )
 
-// refused is what a function returns together with ErrExpr.
-const refused = "refused"
-
-// result returns the text of a result, or refused if it is a zero value with
-// ErrExpr.
-func result(text string, isZero bool, err api.Errno) string {
-	switch {
-	case err == api.OK:
-		return text
-	case err == api.ErrExpr && isZero:
-		return refused
-	}
-	return "a wrong result: " + text + ", " + strconv.Itoa(int(err))
-}
+// refused is the outcome of a call that returns ErrExpr.
+var refused = sample.Failure(api.ErrExpr)
 
 // dimOutcome returns the text of a resulting dimension, or refused.
-func dimOutcome(dim int, err api.Errno) string { return result(strconv.Itoa(dim), dim == 0, err) }
+func dimOutcome(dim int, err api.Errno) string {
+	return sample.Outcome(strconv.Itoa(dim), dim == 0, err)
+}
 
 // numberOutcome returns the text of a resulting fraction, or refused.
 func numberOutcome(r api.Ratio, err api.Errno) string {
-	return result(rational.Print(r), r == api.Ratio{}, err)
+	return sample.Outcome(rational.Print(r), r == api.Ratio{}, err)
 }
 
 // spanOutcome returns the text of a resulting interval, or refused.
 func spanOutcome(x api.Interval, err api.Errno) string {
-	return result(rational.Print(x.Lo)+" "+rational.Print(x.Hi), x == api.Interval{}, err)
+	return sample.Outcome(rational.Print(x.Lo)+" "+rational.Print(x.Hi), x == api.Interval{}, err)
 }
 
 // polyOutcome returns the text of a resulting polynomial, or refused.
@@ -43,15 +34,15 @@ func polyOutcome(p []api.Ratio, err api.Errno) string {
 	for _, r := range p {
 		words = append(words, rational.Print(r))
 	}
-	return result(strings.Join(words, " "), len(p) == 0, err)
+	return sample.Outcome(strings.Join(words, " "), len(p) == 0, err)
 }
 
 // textOutcome returns a resulting text, or refused.
-func textOutcome(s string, err api.Errno) string { return result(s, s == "", err) }
+func textOutcome(s string, err api.Errno) string { return sample.Outcome(s, s == "", err) }
 
 // exprOutcome returns a text of all fields of a resulting expression, or refused.
 func exprOutcome(e api.Expr, err api.Errno) string {
-	return result(nodesText(e), len(e.Nodes) == 0, err)
+	return sample.Outcome(nodesText(e), len(e.Nodes) == 0, err)
 }
 
 // nodesText returns a text of all fields of e.

@@ -6,31 +6,11 @@ import (
 
 	"workpiece/api"
 	"workpiece/poly"
+	"workpiece/sample"
 )
 
 // marker stands where nothing is to be written to.
 var marker = api.Ratio{Num: "marker", Den: "marker"}
-
-// guarded returns a copy of p with spare capacity.
-func guarded(p []api.Ratio) []api.Ratio {
-	out := slices.Repeat([]api.Ratio{marker}, len(p)+20)
-	copy(out, p)
-	return out[:len(p)]
-}
-
-// intact reports whether the guarded slice is still a copy of p.
-func intact(slice []api.Ratio, p []api.Ratio) bool {
-	return slices.Equal(slice[:cap(slice)], guarded(p)[:len(p)+20])
-}
-
-// spoil overwrites lists with their spare capacity.
-func spoil(lists ...[]api.Ratio) {
-	for _, p := range lists {
-		for i := range p[:cap(p)] {
-			p[:cap(p)][i] = api.Ratio{Num: "spoiled"}
-		}
-	}
-}
 
 // P7.1: no function modifies its arguments or their spare capacity, and nothing
 // that is written into a result reaches them, or another result.
@@ -38,7 +18,7 @@ func TestMemory(t *testing.T) {
 	list := append(small(5, 1), polynomials(5, 3, 2)...)
 	for i, p := range list {
 		q := list[(i*7+3)%len(list)]
-		x, y := guarded(p), guarded(q)
+		x, y := sample.Guarded(p, marker), sample.Guarded(q, marker)
 		for name, call := range map[string]func() ([]api.Ratio, []api.Ratio){
 			"Add":       func() ([]api.Ratio, []api.Ratio) { out, _ := poly.Add(x, y); return out, nil },
 			"Add, zero": func() ([]api.Ratio, []api.Ratio) { out, _ := poly.Add(x, nil); return out, nil },
@@ -77,16 +57,16 @@ func TestMemory(t *testing.T) {
 			first, other := call()
 			kept := slices.Clone(first)
 			keptOther := slices.Clone(other)
-			spoil(first)
+			sample.Spoil(first, api.Ratio{})
 			if !slices.Equal(other, keptOther) {
 				t.Errorf("the results of %s share memory", name)
 			}
-			spoil(other)
+			sample.Spoil(other, api.Ratio{})
 			second, otherSecond := call()
 			if !slices.Equal(kept, second) || !slices.Equal(keptOther, otherSecond) {
 				t.Errorf("%s: %s, and then %s", name, text(kept), text(second))
 			}
-			if !intact(x, p) || !intact(y, q) {
+			if !sample.Intact(x, p, marker) || !sample.Intact(y, q, marker) {
 				t.Fatalf("%s of %s and %s modifies its arguments", name, text(p), text(q))
 			}
 		}

@@ -6,38 +6,27 @@ import (
 
 	"workpiece/api"
 	"workpiece/rational"
+	"workpiece/sample"
 )
 
-// refused is what a function returns together with ErrPoly.
-const refused = "refused"
-
-// result returns the text of a result, or refused if it is a zero value with
-// ErrPoly.
-func result(text string, isZero bool, err api.Errno) string {
-	switch {
-	case err == api.OK:
-		return text
-	case err == api.ErrPoly && isZero:
-		return refused
-	}
-	return "a wrong result: " + text
-}
+// refused is the outcome of a call that returns ErrPoly.
+var refused = sample.Failure(api.ErrPoly)
 
 // outcome returns the text of a resulting polynomial, or refused.
-func outcome(p []api.Ratio, err api.Errno) string { return result(text(p), len(p) == 0, err) }
+func outcome(p []api.Ratio, err api.Errno) string { return sample.Outcome(text(p), len(p) == 0, err) }
 
 // pairOutcome returns the text of a resulting quotient and remainder, or refused.
 func pairOutcome(quotient []api.Ratio, rest []api.Ratio, err api.Errno) string {
-	return result(text(quotient)+" and "+text(rest), len(quotient)+len(rest) == 0, err)
+	return sample.Outcome(text(quotient)+" and "+text(rest), len(quotient)+len(rest) == 0, err)
 }
 
 // numberOutcome returns the text of a resulting fraction, or refused.
 func numberOutcome(r api.Ratio, err api.Errno) string {
-	return result(rational.Print(r), r == api.Ratio{}, err)
+	return sample.Outcome(rational.Print(r), r == api.Ratio{}, err)
 }
 
 // countOutcome returns the text of a resulting number of roots, or refused.
-func countOutcome(n int, err api.Errno) string { return result(strconv.Itoa(n), n == 0, err) }
+func countOutcome(n int, err api.Errno) string { return sample.Outcome(strconv.Itoa(n), n == 0, err) }
 
 // listOutcome returns the text of resulting intervals, or refused.
 func listOutcome(list []api.Interval, err api.Errno) string {
@@ -45,7 +34,7 @@ func listOutcome(list []api.Interval, err api.Errno) string {
 	for _, x := range list {
 		out += "[" + rational.Print(x.Lo) + ", " + rational.Print(x.Hi) + "]"
 	}
-	return result(out, len(list) == 0, err)
+	return sample.Outcome(out, len(list) == 0, err)
 }
 
 // A reference calculates by the definitions of the chapter, step by step and

@@ -12,18 +12,18 @@ import (
 
 // P6.1: the examples of the chapter.
 func TestArithmeticExamples(t *testing.T) {
-	two, nested := built("2"), built("2; 3 2")
+	two, nested := sample.Tower("2"), sample.Tower("2; 3 2")
 	for i, c := range []struct{ got, want string }{
-		{outcome(tower.Mul(two, parsed("1 1"), parsed("1 -1"))), "-1 0"},
-		{outcome(tower.Inverse(two, parsed("1 1"))), "-1 1"},
-		{outcome(tower.Inverse(nested, parsed("1 1 1 0"))), "-1/2 1/2 0 0"},
-		{outcome(tower.Inverse(nested, parsed("1 1 -1 0"))), refused},
-		{outcome(tower.Inverse(two, parsed("0 0"))), refused},
-		{outcome(tower.Inverse(api.Tower{}, parsed("0"))), refused},
-		{outcome(tower.Inverse(api.Tower{}, parsed("-3/2"))), "-2/3"},
-		{outcome(tower.Inverse(built("4"), parsed("2 1"))), "1/4 0"},
-		{outcome(tower.Inverse(built("4"), parsed("2 -1"))), refused},
-		{outcome(tower.Inverse(built("4"), parsed("3 -1"))), "3/5 1/5"},
+		{outcome(tower.Mul(two, sample.Numbers("1 1"), sample.Numbers("1 -1"))), "-1 0"},
+		{outcome(tower.Inverse(two, sample.Numbers("1 1"))), "-1 1"},
+		{outcome(tower.Inverse(nested, sample.Numbers("1 1 1 0"))), "-1/2 1/2 0 0"},
+		{outcome(tower.Inverse(nested, sample.Numbers("1 1 -1 0"))), refused},
+		{outcome(tower.Inverse(two, sample.Numbers("0 0"))), refused},
+		{outcome(tower.Inverse(api.Tower{}, sample.Numbers("0"))), refused},
+		{outcome(tower.Inverse(api.Tower{}, sample.Numbers("-3/2"))), "-2/3"},
+		{outcome(tower.Inverse(sample.Tower("4"), sample.Numbers("2 1"))), "1/4 0"},
+		{outcome(tower.Inverse(sample.Tower("4"), sample.Numbers("2 -1"))), refused},
+		{outcome(tower.Inverse(sample.Tower("4"), sample.Numbers("3 -1"))), "3/5 1/5"},
 	} {
 		if c.got != c.want {
 			t.Errorf("%d: %s instead of %s", i, c.got, c.want)
@@ -64,9 +64,9 @@ func checkOperations(t *testing.T, u api.Tower, a, b []api.Ratio) int {
 func TestOperations(t *testing.T) {
 	for _, length := range []int{1, 3, 10, 25, 50, 100, api.MaxDigits} {
 		results := 0
-		for i, s := range subjects() {
-			u := built(s.tower)
-			list := s.all(24/size(u)+1, length, uint64(length+i))
+		for i, s := range sample.Extensions() {
+			u := sample.Tower(s.Text)
+			list := s.All(24/size(u)+1, length, uint64(length+i))
 			for k, a := range list {
 				results += checkOperations(t, u, a, list[(k*7+3)%len(list)])
 			}
@@ -87,7 +87,7 @@ func TestSmallOperations(t *testing.T) {
 			list = append(list, []api.Ratio{r, s})
 		}
 	}
-	for _, u := range []api.Tower{built("2"), built("4"), built("1/4")} {
+	for _, u := range []api.Tower{sample.Tower("2"), sample.Tower("4"), sample.Tower("1/4")} {
 		for _, a := range list {
 			for _, b := range list {
 				if results := checkOperations(t, u, a, b); results < 5 {
@@ -102,41 +102,41 @@ func TestSmallOperations(t *testing.T) {
 // are not needed; with 0 nothing is.
 func TestTooLarge(t *testing.T) {
 	nines, many, half := sample.Nines(), sample.Power(150), sample.Power(100)
-	two, wide := built("2"), built(many)
+	two, wide := sample.Tower("2"), sample.Tower(many)
 	for i, c := range []struct{ got, want string }{
-		{outcome(tower.Add(two, parsed("0 "+nines), parsed("0 1"))), refused},
-		{outcome(tower.Add(two, parsed(nines+" 0"), parsed("-1 "+nines))), nines[:199] + "8 " + nines},
-		{outcome(tower.Sub(two, parsed("0 -"+nines), parsed("0 1"))), refused},
-		{outcome(tower.Sub(two, parsed("1 "+nines), parsed("1 "+nines))), "0 0"},
-		{outcome(tower.Mul(two, parsed(half+" 0"), parsed(half+" 0"))), refused},
-		{outcome(tower.Mul(two, parsed("0 "+half), parsed("0 "+half))), refused},
-		{outcome(tower.Mul(two, parsed(half+" 0"), parsed("0 "+half))), refused},
-		{outcome(tower.Mul(two, parsed("0 "+half), parsed(half+" 0"))), refused},
-		{outcome(tower.Mul(two, parsed("0 0"), parsed(nines+" 1/"+nines))), "0 0"},
-		{outcome(tower.Mul(two, parsed(nines+" 1/"+nines), parsed("0 0"))), "0 0"},
-		{outcome(tower.Mul(two, parsed("1 0"), parsed(nines+" 1/"+nines))), nines + " 1/" + nines},
-		{outcome(tower.Mul(two, parsed("0 1"), parsed("0 "+nines))), refused},
-		{outcome(tower.Mul(two, parsed("0 1"), parsed(nines+" 0"))), "0 " + nines},
+		{outcome(tower.Add(two, sample.Numbers("0 "+nines), sample.Numbers("0 1"))), refused},
+		{outcome(tower.Add(two, sample.Numbers(nines+" 0"), sample.Numbers("-1 "+nines))), nines[:199] + "8 " + nines},
+		{outcome(tower.Sub(two, sample.Numbers("0 -"+nines), sample.Numbers("0 1"))), refused},
+		{outcome(tower.Sub(two, sample.Numbers("1 "+nines), sample.Numbers("1 "+nines))), "0 0"},
+		{outcome(tower.Mul(two, sample.Numbers(half+" 0"), sample.Numbers(half+" 0"))), refused},
+		{outcome(tower.Mul(two, sample.Numbers("0 "+half), sample.Numbers("0 "+half))), refused},
+		{outcome(tower.Mul(two, sample.Numbers(half+" 0"), sample.Numbers("0 "+half))), refused},
+		{outcome(tower.Mul(two, sample.Numbers("0 "+half), sample.Numbers(half+" 0"))), refused},
+		{outcome(tower.Mul(two, sample.Numbers("0 0"), sample.Numbers(nines+" 1/"+nines))), "0 0"},
+		{outcome(tower.Mul(two, sample.Numbers(nines+" 1/"+nines), sample.Numbers("0 0"))), "0 0"},
+		{outcome(tower.Mul(two, sample.Numbers("1 0"), sample.Numbers(nines+" 1/"+nines))), nines + " 1/" + nines},
+		{outcome(tower.Mul(two, sample.Numbers("0 1"), sample.Numbers("0 "+nines))), refused},
+		{outcome(tower.Mul(two, sample.Numbers("0 1"), sample.Numbers(nines+" 0"))), "0 " + nines},
 		// Only the product with the radicand is too large.
-		{outcome(tower.Mul(wide, parsed("0 "+half), parsed("0 1"))), refused},
-		{outcome(tower.Mul(wide, parsed("1 "+half), parsed("1 0"))), "1 " + half},
+		{outcome(tower.Mul(wide, sample.Numbers("0 "+half), sample.Numbers("0 1"))), refused},
+		{outcome(tower.Mul(wide, sample.Numbers("1 "+half), sample.Numbers("1 0"))), "1 " + half},
 		// Only the sum is too large.
-		{outcome(tower.Mul(built("1"), parsed(nines+" 1"), parsed("1 1"))), refused},
-		{outcome(tower.Mul(built("1"), parsed(nines+" 1"), parsed("1 -1"))), nines[:199] + "8 -" + nines[:199] + "8"},
-		{outcome(tower.Inverse(api.Tower{}, parsed("-"+nines))), "-1/" + nines},
-		{outcome(tower.Inverse(two, parsed(half+" 0"))), refused},
-		{outcome(tower.Inverse(two, parsed(half[:90]+" 0"))), "1/" + half[:90] + " 0"},
-		{signOutcome(tower.Sign(two, parsed(half+" "+half))), "1"},
-		{signOutcome(tower.Sign(two, parsed(nines+" 0"))), "1"},
-		{signOutcome(tower.Sign(two, parsed("0 -"+nines))), "-1"},
-		{signOutcome(tower.Sign(two, parsed(half+" -1"))), refused},
-		{signOutcome(tower.Sign(two, parsed("1 -"+half))), refused},
-		{signOutcome(tower.Sign(wide, parsed("1 -"+half[:30]))), refused},
-		{signOutcome(tower.Sign(wide, parsed("1 -"+half[:20]))), "-1"},
-		{signOutcome(tower.Sign(two, parsed(half[:100]+" -1"))), "1"},
-		{signOutcome(tower.Compare(two, parsed(nines+" 0"), parsed("-1 0"))), refused},
-		{signOutcome(tower.Compare(two, parsed(nines+" 0"), parsed("1 0"))), "1"},
-		{signOutcome(tower.Compare(api.Tower{}, parsed("1/"+nines), parsed("1/"+half))), refused},
+		{outcome(tower.Mul(sample.Tower("1"), sample.Numbers(nines+" 1"), sample.Numbers("1 1"))), refused},
+		{outcome(tower.Mul(sample.Tower("1"), sample.Numbers(nines+" 1"), sample.Numbers("1 -1"))), nines[:199] + "8 -" + nines[:199] + "8"},
+		{outcome(tower.Inverse(api.Tower{}, sample.Numbers("-"+nines))), "-1/" + nines},
+		{outcome(tower.Inverse(two, sample.Numbers(half+" 0"))), refused},
+		{outcome(tower.Inverse(two, sample.Numbers(half[:90]+" 0"))), "1/" + half[:90] + " 0"},
+		{signOutcome(tower.Sign(two, sample.Numbers(half+" "+half))), "1"},
+		{signOutcome(tower.Sign(two, sample.Numbers(nines+" 0"))), "1"},
+		{signOutcome(tower.Sign(two, sample.Numbers("0 -"+nines))), "-1"},
+		{signOutcome(tower.Sign(two, sample.Numbers(half+" -1"))), refused},
+		{signOutcome(tower.Sign(two, sample.Numbers("1 -"+half))), refused},
+		{signOutcome(tower.Sign(wide, sample.Numbers("1 -"+half[:30]))), refused},
+		{signOutcome(tower.Sign(wide, sample.Numbers("1 -"+half[:20]))), "-1"},
+		{signOutcome(tower.Sign(two, sample.Numbers(half[:100]+" -1"))), "1"},
+		{signOutcome(tower.Compare(two, sample.Numbers(nines+" 0"), sample.Numbers("-1 0"))), refused},
+		{signOutcome(tower.Compare(two, sample.Numbers(nines+" 0"), sample.Numbers("1 0"))), "1"},
+		{signOutcome(tower.Compare(api.Tower{}, sample.Numbers("1/"+nines), sample.Numbers("1/"+half))), refused},
 	} {
 		if c.got != c.want {
 			t.Errorf("%d: %s instead of %s", i, c.got, c.want)
@@ -150,7 +150,7 @@ func then(u api.Tower, operate func(api.Tower, []api.Ratio, []api.Ratio) ([]api.
 	if x == refused || y == refused {
 		return refused
 	}
-	return outcome(operate(u, parsed(x), parsed(y)))
+	return outcome(operate(u, sample.Numbers(x), sample.Numbers(y)))
 }
 
 // checkLaws checks the laws of three elements and returns how many of them it
@@ -181,10 +181,10 @@ func checkLaws(t *testing.T, u api.Tower, a, b, c string) int {
 
 // P6.3: the laws, coefficient by coefficient.
 func TestLaws(t *testing.T) {
-	for i, s := range subjects() {
-		u := built(s.tower)
-		list := s.small(5, uint64(i))
-		list = append(list, s.all(2, 10, uint64(i))...)
+	for i, s := range sample.Extensions() {
+		u := sample.Tower(s.Text)
+		list := s.Small(5, uint64(i))
+		list = append(list, s.All(2, 10, uint64(i))...)
 		compared, tried := 0, 0
 		for k, a := range list {
 			for m := k % 3; m < len(list); m += 1 + size(u)/2 {
@@ -193,17 +193,17 @@ func TestLaws(t *testing.T) {
 			}
 		}
 		if compared < tried*3/4 {
-			t.Errorf("%s: only %d laws of %d are compared", s.tower, compared, tried)
+			t.Errorf("%s: only %d laws of %d are compared", s.Text, compared, tried)
 		}
 	}
 }
 
 // P6.3: the values of sums, differences and products are those of the values.
 func TestValues(t *testing.T) {
-	for i, s := range subjects() {
-		u := built(s.tower)
+	for i, s := range sample.Extensions() {
+		u := sample.Tower(s.Text)
 		v := valuerOf(u)
-		list := s.all(8, 6, uint64(i)+100)
+		list := s.All(8, 6, uint64(i)+100)
 		for k, a := range list {
 			b := list[(k*3+1)%len(list)]
 			x, y := v.of(a), v.of(b)
@@ -211,11 +211,11 @@ func TestValues(t *testing.T) {
 			difference, errDifference := tower.Sub(u, a, b)
 			product, errProduct := tower.Mul(u, a, b)
 			if errSum != api.OK || errDifference != api.OK || errProduct != api.OK {
-				t.Errorf("%s and %s in %s: %d, %d, %d", text(a), text(b), s.tower, errSum, errDifference, errProduct)
+				t.Errorf("%s and %s in %s: %d, %d, %d", text(a), text(b), s.Text, errSum, errDifference, errProduct)
 				continue
 			}
-			if order(v.of(difference), realOf(parsed("0")[0]).Sub(x, y)) != 0 || order(v.of(sum), realOf(parsed("0")[0]).Add(x, y)) != 0 || order(v.of(product), realOf(parsed("0")[0]).Mul(x, y)) != 0 {
-				t.Errorf("%s and %s in %s: %s, %s, %s", text(a), text(b), s.tower, text(sum), text(difference), text(product))
+			if order(v.of(difference), realOf(sample.Numbers("0")[0]).Sub(x, y)) != 0 || order(v.of(sum), realOf(sample.Numbers("0")[0]).Add(x, y)) != 0 || order(v.of(product), realOf(sample.Numbers("0")[0]).Mul(x, y)) != 0 {
+				t.Errorf("%s and %s in %s: %s, %s, %s", text(a), text(b), s.Text, text(sum), text(difference), text(product))
 			}
 		}
 	}
@@ -224,16 +224,16 @@ func TestValues(t *testing.T) {
 // P6.4: an element times its inverse has the value 1; an element has no inverse if
 // its value is 0.
 func TestInverse(t *testing.T) {
-	for i, s := range subjects() {
-		u := built(s.tower)
+	for i, s := range sample.Extensions() {
+		u := sample.Tower(s.Text)
 		v := valuerOf(u)
-		one := parsed("1" + strings.Repeat(" 0", size(u)-1))
+		one := sample.Numbers("1" + strings.Repeat(" 0", size(u)-1))
 		found := 0
-		for _, a := range s.small(24, uint64(i)+200) {
+		for _, a := range s.Small(24, uint64(i)+200) {
 			inverse, err := tower.Inverse(u, a)
 			if v.sign(a) == 0 {
 				if outcome(inverse, err) != refused {
-					t.Errorf("Inverse of %s in %s = %s", text(a), s.tower, outcome(inverse, err))
+					t.Errorf("Inverse of %s in %s = %s", text(a), s.Text, outcome(inverse, err))
 				}
 				continue
 			}
@@ -243,38 +243,38 @@ func TestInverse(t *testing.T) {
 			found++
 			product, err := tower.Mul(u, a, inverse)
 			if err == api.OK && order(v.of(product), realOf(one[0])) != 0 {
-				t.Errorf("%s times %s in %s = %s", text(a), text(inverse), s.tower, text(product))
+				t.Errorf("%s times %s in %s = %s", text(a), text(inverse), s.Text, text(product))
 			}
 			if c, err := tower.Compare(u, product, one); c != 0 && err == api.OK {
-				t.Errorf("%s times %s in %s is %d", text(a), text(inverse), s.tower, c)
+				t.Errorf("%s times %s in %s is %d", text(a), text(inverse), s.Text, c)
 			}
 			if difference := realOf(one[0]).Mul(v.of(a), v.of(inverse)); order(difference, realOf(one[0])) != 0 {
-				t.Errorf("Inverse of %s in %s = %s", text(a), s.tower, text(inverse))
+				t.Errorf("Inverse of %s in %s = %s", text(a), s.Text, text(inverse))
 			}
 		}
 		if found < 12 {
-			t.Errorf("%s: only %d inverses", s.tower, found)
+			t.Errorf("%s: only %d inverses", s.Text, found)
 		}
 	}
 }
 
 // P6.5: the square of a root has the value of the radicand, and its sign is 1.
 func TestRootSquared(t *testing.T) {
-	for _, s := range subjects() {
-		u := built(s.tower)
+	for _, s := range sample.Extensions() {
+		u := sample.Tower(s.Text)
 		if len(u.Radicands) == 0 {
 			continue
 		}
 		radicand := u.Radicands[len(u.Radicands)-1]
 		root, err := tower.Root(u)
 		if got := signOutcome(tower.Sign(u, root)); err != api.OK || got != "1" {
-			t.Errorf("the root in %s has the sign %s", s.tower, got)
+			t.Errorf("the root in %s has the sign %s", s.Text, got)
 		}
 		if got, want := outcome(tower.Mul(u, root, root)), text(radicand)+strings.Repeat(" 0", len(radicand)); got != want {
-			t.Errorf("the square of the root in %s = %s", s.tower, got)
+			t.Errorf("the square of the root in %s = %s", s.Text, got)
 		}
 		if v := valuerOf(u); order(v.of(root), v[len(v)-1]) != 0 {
-			t.Errorf("the root in %s is %s", s.tower, text(root))
+			t.Errorf("the root in %s is %s", s.Text, text(root))
 		}
 	}
 }
@@ -285,20 +285,20 @@ func embedded(u api.Tower, x string) string {
 	if x == refused {
 		return refused
 	}
-	return outcome(tower.Embed(u, parsed(x)))
+	return outcome(tower.Embed(u, sample.Numbers(x)))
 }
 
 // P6.5: embedding changes neither values nor signs, sums and products.
 func TestEmbedded(t *testing.T) {
-	for i, s := range subjects() {
-		lower := built(s.tower)
+	for i, s := range sample.Extensions() {
+		lower := sample.Tower(s.Text)
 		for _, d := range []string{"2", "9", "3 1", "5 0 1/2 0"} {
-			u, err := tower.Extend(lower, slices.Concat(parsed(d), slices.Repeat(parsed("0"), 16))[:size(lower)])
+			u, err := tower.Extend(lower, slices.Concat(sample.Numbers(d), slices.Repeat(sample.Numbers("0"), 16))[:size(lower)])
 			if err != api.OK {
 				continue
 			}
 			v := valuerOf(u)
-			list := s.all(6, 4, uint64(i)+300)
+			list := s.All(6, 4, uint64(i)+300)
 			for k, a := range list {
 				x, y := text(a), text(list[(k*3+1)%len(list)])
 				for n, operate := range []func(api.Tower, []api.Ratio, []api.Ratio) ([]api.Ratio, api.Errno){tower.Add, tower.Sub, tower.Mul} {
@@ -306,7 +306,7 @@ func TestEmbedded(t *testing.T) {
 						t.Errorf("operation %d of %s and %s in %s = %s instead of %s", n, x, y, towerText(u), got, want)
 					}
 				}
-				wide := parsed(embedded(u, x))
+				wide := sample.Numbers(embedded(u, x))
 				if order(v.of(wide), valuerOf(lower).of(a)) != 0 || signOutcome(tower.Sign(u, wide)) != signOutcome(tower.Sign(lower, a)) {
 					t.Errorf("%s, embedded in %s = %s", x, towerText(u), text(wide))
 				}

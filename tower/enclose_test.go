@@ -29,7 +29,7 @@ func TestEncloseKnown(t *testing.T) {
 		{"2", nines[:180] + " 0", 0, nines[:180] + " " + nines[:180]}, {"2", nines[:190] + " 0", 0, nines[:190] + " " + nines[:190]}, {"2", nines[:191] + " 0", 0, refused},
 		{nines[:180], "0 0", 0, "0 0"}, {nines[:181], "0 0", 0, refused}, {nines[:140], "1 0", 20, "1 1"}, {nines[:141], "1 0", 20, refused},
 	} {
-		if got := intervalOutcome(tower.Enclose(built(c.tower), parsed(c.element), c.places)); got != c.want && got != c.want+" "+c.want {
+		if got := intervalOutcome(tower.Enclose(sample.Tower(c.tower), sample.Numbers(c.element), c.places)); got != c.want && got != c.want+" "+c.want {
 			t.Errorf("%d: Enclose(%s, %s, %d) = %s instead of %s", i, c.tower, c.element, c.places, got, c.want)
 		}
 	}
@@ -39,13 +39,13 @@ func TestEncloseKnown(t *testing.T) {
 func TestEnclose(t *testing.T) {
 	for _, length := range []int{1, 3, 10, 30, 60, 110, api.MaxDigits} {
 		results := 0
-		for i, s := range subjects() {
-			u := built(s.tower)
-			for k, a := range s.all(8/size(u)+1, length, uint64(length+i)) {
+		for i, s := range sample.Extensions() {
+			u := sample.Tower(s.Text)
+			for k, a := range s.All(8/size(u)+1, length, uint64(length+i)) {
 				for places := k % 7; places <= 20; places += 7 {
 					got, want := intervalOutcome(tower.Enclose(u, a, places)), wantEnclosed(u, a, places)
 					if got != want {
-						t.Errorf("Enclose(%s, %s, %d) = %s instead of %s", s.tower, text(a), places, got, want)
+						t.Errorf("Enclose(%s, %s, %d) = %s instead of %s", s.Text, text(a), places, got, want)
 					}
 					if got != refused {
 						results++
@@ -62,15 +62,15 @@ func TestEnclose(t *testing.T) {
 // P6.7: Enclose contains the value, with more places in narrower intervals; an
 // interval that does not contain 0 tells the sign.
 func TestEncloseContains(t *testing.T) {
-	for i, s := range subjects() {
-		u := built(s.tower)
+	for i, s := range sample.Extensions() {
+		u := sample.Tower(s.Text)
 		v := valuerOf(u)
 		told := 0
-		for _, a := range s.all(6, 4, uint64(i)+700) {
+		for _, a := range s.All(6, 4, uint64(i)+700) {
 			for places := 0; places <= 20; places += 5 {
 				x, err := tower.Enclose(u, a, places)
 				if err != api.OK || order(realOf(x.Lo), v.of(a)) > 0 || order(v.of(a), realOf(x.Hi)) > 0 {
-					t.Errorf("Enclose(%s, %s, %d) = %s", s.tower, text(a), places, intervalOutcome(x, err))
+					t.Errorf("Enclose(%s, %s, %d) = %s", s.Text, text(a), places, intervalOutcome(x, err))
 					continue
 				}
 				checkEnds(t, u, a, x)
@@ -80,7 +80,7 @@ func TestEncloseContains(t *testing.T) {
 			}
 		}
 		if told < 16 {
-			t.Errorf("%s: only %d intervals tell the sign", s.tower, told)
+			t.Errorf("%s: only %d intervals tell the sign", s.Text, told)
 		}
 	}
 }

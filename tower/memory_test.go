@@ -5,32 +5,18 @@ import (
 	"testing"
 
 	"workpiece/api"
+	"workpiece/sample"
 	"workpiece/tower"
 )
 
 // marker stands where nothing is to be written to.
 var marker = api.Ratio{Num: "marker", Den: "marker"}
 
-// guarded returns a copy of a with spare capacity.
-func guarded(a []api.Ratio) []api.Ratio {
-	out := make([]api.Ratio, len(a), len(a)+20)
-	copy(out, a)
-	for i := len(a); i < cap(out); i++ {
-		out[:cap(out)][i] = marker
-	}
-	return out
-}
-
-// intact reports whether the guarded slice is still a copy of a.
-func intact(slice []api.Ratio, a []api.Ratio) bool {
-	return slices.Equal(slice[:cap(slice)], guarded(a)[:cap(slice)])
-}
-
 // guardedTower returns a copy of u with spare capacity everywhere.
 func guardedTower(u api.Tower) api.Tower {
 	out := api.Tower{Radicands: make([][]api.Ratio, 0, len(u.Radicands)+2)}
 	for _, d := range u.Radicands {
-		out.Radicands = append(out.Radicands, guarded(d))
+		out.Radicands = append(out.Radicands, sample.Guarded(d, marker))
 	}
 	return out
 }
@@ -40,7 +26,7 @@ func intactTower(guarded api.Tower, u api.Tower) bool {
 	ok := len(guarded.Radicands) == len(u.Radicands)
 	for i, d := range guarded.Radicands[:cap(guarded.Radicands)] {
 		if i < len(u.Radicands) {
-			ok = ok && intact(d, u.Radicands[i])
+			ok = ok && sample.Intact(d, u.Radicands[i], marker)
 		} else {
 			ok = ok && d == nil
 		}
@@ -48,21 +34,14 @@ func intactTower(guarded api.Tower, u api.Tower) bool {
 	return ok
 }
 
-// spoil overwrites a with its spare capacity.
-func spoil(a []api.Ratio) {
-	for i := range a[:cap(a)] {
-		a[:cap(a)][i] = api.Ratio{Num: "spoiled"}
-	}
-}
-
 // P6.1: no function modifies its arguments or their spare capacity, and nothing
 // that is written into a result reaches them.
 func TestMemory(t *testing.T) {
-	for _, s := range subjects() {
-		u := built(s.tower)
-		for i, a := range s.small(6, 8) {
-			b := s.small(6, 9)[i]
-			tight, x, y := guardedTower(u), guarded(a), guarded(b)
+	for _, s := range sample.Extensions() {
+		u := sample.Tower(s.Text)
+		for i, a := range s.Small(6, 8) {
+			b := s.Small(6, 9)[i]
+			tight, x, y := guardedTower(u), sample.Guarded(a, marker), sample.Guarded(b, marker)
 			for name, call := range map[string]func() ([]api.Ratio, api.Errno){
 				"FromRatio": func() ([]api.Ratio, api.Errno) { return tower.FromRatio(tight, x[0]) },
 				"Embed":     func() ([]api.Ratio, api.Errno) { return tower.Embed(tight, x) },
@@ -80,13 +59,13 @@ func TestMemory(t *testing.T) {
 			} {
 				first, err := call()
 				kept := slices.Clone(first)
-				spoil(first)
+				sample.Spoil(first, api.Ratio{})
 				second, errAgain := call()
 				if !slices.Equal(kept, second) || err != errAgain {
-					t.Errorf("%s in %s: %s, and then %s", name, s.tower, text(kept), text(second))
+					t.Errorf("%s in %s: %s, and then %s", name, s.Text, text(kept), text(second))
 				}
-				if !intactTower(tight, u) || !intact(x, a) || !intact(y, b) {
-					t.Errorf("%s in %s modifies its arguments", name, s.tower)
+				if !intactTower(tight, u) || !sample.Intact(x, a, marker) || !sample.Intact(y, b, marker) {
+					t.Errorf("%s in %s modifies its arguments", name, s.Text)
 				}
 			}
 		}
@@ -96,17 +75,17 @@ func TestMemory(t *testing.T) {
 // P6.1: the radicands of an extended tower share no memory with each other or with
 // the arguments.
 func TestExtendMemory(t *testing.T) {
-	for _, s := range subjects() {
-		u := built(s.tower)
-		for _, d := range s.small(6, 10) {
+	for _, s := range sample.Extensions() {
+		u := sample.Tower(s.Text)
+		for _, d := range s.Small(6, 10) {
 			want, err := tower.Extend(u, d)
 			if err != api.OK {
 				continue
 			}
 			for i := range want.Radicands {
-				tight, x := guardedTower(u), guarded(d)
+				tight, x := guardedTower(u), sample.Guarded(d, marker)
 				got, err := tower.Extend(tight, x)
-				spoil(got.Radicands[i])
+				sample.Spoil(got.Radicands[i], api.Ratio{})
 				clear(got.Radicands[len(got.Radicands):cap(got.Radicands)])
 				for k, radicand := range got.Radicands {
 					if k != i && text(radicand) != text(want.Radicands[k]) || err != api.OK {
@@ -114,7 +93,7 @@ func TestExtendMemory(t *testing.T) {
 					}
 				}
 				got.Radicands[0] = nil
-				if !intactTower(tight, u) || !intact(x, d) {
+				if !intactTower(tight, u) || !sample.Intact(x, d, marker) {
 					t.Errorf("the arguments of Extend change with radicand %d of %s", i, towerText(want))
 				}
 			}

@@ -8,6 +8,7 @@ import (
 	"workpiece/api"
 	"workpiece/enclosure"
 	"workpiece/rational"
+	"workpiece/sample"
 )
 
 // refused is what a function returns together with ErrTower.
@@ -121,7 +122,7 @@ func (r *reference) each(operation func(a, b api.Ratio) (api.Ratio, api.Errno), 
 	value, err := operation(x.value, y.value)
 	if err != api.OK {
 		r.tooLarge = true
-		return numberOf(parsed("0"))
+		return numberOf(sample.Numbers("0"))
 	}
 	return &number{value: value}
 }
@@ -152,7 +153,7 @@ func (r *reference) norm(level int, x *number) *number {
 
 func (r *reference) sign(level int, x *number) int {
 	if level == 0 {
-		return rational.Compare(x.value, parsed("0")[0])
+		return rational.Compare(x.value, sample.Numbers("0")[0])
 	}
 	s := r.sign(level-1, x.a)
 	t := r.sign(level-1, x.b)
@@ -168,9 +169,9 @@ func (r *reference) sign(level int, x *number) int {
 // inverse returns the inverse of x, whose sign must have been determined.
 func (r *reference) inverse(level int, x *number) *number {
 	if level == 0 {
-		return r.each(rational.Div, numberOf(parsed("1")), x)
+		return r.each(rational.Div, numberOf(sample.Numbers("1")), x)
 	}
-	zero := numberOf(slices.Repeat(parsed("0"), 1<<(level-1)))
+	zero := numberOf(slices.Repeat(sample.Numbers("0"), 1<<(level-1)))
 	n := r.norm(level, x)
 	if r.sign(level-1, n) == 0 {
 		return &number{a: r.inverse(level-1, r.plus(x.a, x.a)), b: zero}

@@ -1,0 +1,345 @@
+package sketch_test
+
+import (
+	"encoding/binary"
+	"fmt"
+	"math/big"
+	"slices"
+	"strconv"
+	"strings"
+
+	"workpiece/api"
+	"workpiece/rational"
+	"workpiece/sample"
+	"workpiece/tower"
+)
+
+// refused is the outcome of a call that returns ErrSketch.
+var refused = sample.Failure(api.ErrSketch)
+
+// text returns the text of a list of fractions.
+func text(list []api.Ratio) string {
+	var words []string
+	for _, r := range list {
+		words = append(words, rational.Print(r))
+	}
+	return strings.Join(words, " ")
+}
+
+// residualOutcome returns the text of resulting residuals, or refused.
+func residualOutcome(list []api.Ratio, err api.Errno) string {
+	return sample.Outcome(text(list), len(list) == 0, err)
+}
+
+// gradientOutcome returns the text of a resulting gradient, or refused.
+func gradientOutcome(gradient [][][2]api.Ratio, err api.Errno) string {
+	var out []string
+	for _, g := range gradient {
+		var words []string
+		for _, p := range g {
+			words = append(words, text(p[:]))
+		}
+		out = append(out, strings.Join(words, ", "))
+	}
+	return sample.Outcome(strings.Join(out, "; "), len(gradient) == 0, err)
+}
+
+// holdsOutcome returns the text of what Holds returns.
+func holdsOutcome(holds bool, err api.Errno) string {
+	return sample.Outcome(strconv.FormatBool(holds), !holds, err)
+}
+
+// sketchOutcome returns a text of all fields of a resulting sketch, or the error.
+func sketchOutcome(s api.Sketch, err api.Errno) string {
+	return sample.Outcome(fmt.Sprintf("%#v", s), s.Points == 0 && len(s.Constraints) == 0, err)
+}
+
+// isShort reports whether r is short.
+func isShort(r api.Ratio) bool {
+	return rational.Valid(r) && len(strings.Trim(r.Num, "-")) <= 12 && len(r.Den) <= 12
+}
+
+// isValid reports whether c is valid for n points, by the table of the chapter.
+func isValid(c api.Constraint, n int) bool {
+	in := func(indices ...int) bool {
+		return !slices.ContainsFunc(indices, func(i int) bool { return i < 0 || i >= n })
+	}
+	different := c.P != c.Q && c.P != c.R && c.Q != c.R
+	switch c.Kind {
+	case 1:
+		return c == api.Constraint{Kind: 1, P: c.P, X: c.X, Y: c.Y} && in(c.P) && isShort(c.X) && isShort(c.Y)
+	case 2:
+		return c == api.Constraint{Kind: 2, P: c.P, Q: c.Q, Value: c.Value} && in(c.P, c.Q) && c.P != c.Q && isShort(c.Value) && value(c.Value).Sign() > 0
+	case 3, 4:
+		return c == api.Constraint{Kind: c.Kind, P: c.P, Q: c.Q} && in(c.P, c.Q) && c.P != c.Q
+	case 5, 7, 8:
+		return c == api.Constraint{Kind: c.Kind, P: c.P, Q: c.Q, R: c.R} && in(c.P, c.Q, c.R) && different
+	case 6:
+		return c == api.Constraint{Kind: 6, P: c.P, Q: c.Q, R: c.R, S: c.S} && in(c.P, c.Q, c.R, c.S) && c.P != c.Q && c.R != c.S
+	}
+	return false
+}
+
+// isSketch reports whether s is valid, by the definition of the chapter.
+func isSketch(s api.Sketch) bool {
+	for _, c := range s.Constraints {
+		if !isValid(c, s.Points) {
+			return false
+		}
+	}
+	return s.Points >= 1 && s.Points <= 8 && len(s.Constraints) <= 16
+}
+
+// uses returns the indices in the row of the kind of c, in order.
+func uses(c api.Constraint) []int {
+	all := []int{c.P, c.Q, c.R, c.S}
+	switch c.Kind {
+	case 1:
+		return all[:1]
+	case 2, 3, 4:
+		return all[:2]
+	case 5, 7, 8:
+		return all[:3]
+	case 6:
+		return all
+	}
+	return nil
+}
+
+// value returns the value of the valid fraction r.
+func value(r api.Ratio) *big.Rat {
+	v, ok := new(big.Rat).SetString(r.Num + "/" + r.Den)
+	if !ok {
+		panic("not a fraction: " + r.Num + "/" + r.Den)
+	}
+	return v
+}
+
+// ofValue returns the fraction with the value v.
+func ofValue(v *big.Rat) api.Ratio {
+	return api.Ratio{Num: v.Num().String(), Den: v.Denom().String()}
+}
+
+// A table calculates the residuals as they stand in the table of the chapter, with
+// numbers of any type.
+type table[T any] struct {
+	points   [][2]T
+	constant func(r api.Ratio) T
+	add      func(a, b T) T
+	sub      func(a, b T) T
+	mul      func(a, b T) T
+}
+
+// residuals returns the residuals of the valid constraint c.
+func (t table[T]) residuals(c api.Constraint) []T {
+	x := func(i int) T { return t.points[i][0] }
+	y := func(i int) T { return t.points[i][1] }
+	squared := func(a T) T { return t.mul(a, a) }
+	switch c.Kind {
+	case 1:
+		return []T{t.sub(x(c.P), t.constant(c.X)), t.sub(y(c.P), t.constant(c.Y))}
+	case 2:
+		square := t.add(squared(t.sub(x(c.P), x(c.Q))), squared(t.sub(y(c.P), y(c.Q))))
+		return []T{t.sub(square, t.constant(ofValue(new(big.Rat).Mul(value(c.Value), value(c.Value)))))}
+	case 3:
+		return []T{t.sub(y(c.P), y(c.Q))}
+	case 4:
+		return []T{t.sub(x(c.P), x(c.Q))}
+	case 5:
+		left := t.mul(t.sub(x(c.P), x(c.Q)), t.sub(y(c.R), y(c.Q)))
+		return []T{t.sub(left, t.mul(t.sub(y(c.P), y(c.Q)), t.sub(x(c.R), x(c.Q))))}
+	case 6:
+		left := t.mul(t.sub(x(c.Q), x(c.P)), t.sub(x(c.S), x(c.R)))
+		return []T{t.add(left, t.mul(t.sub(y(c.Q), y(c.P)), t.sub(y(c.S), y(c.R))))}
+	case 7:
+		return []T{t.sub(t.sub(x(c.P), x(c.Q)), t.sub(x(c.R), x(c.P))), t.sub(t.sub(y(c.P), y(c.Q)), t.sub(y(c.R), y(c.P)))}
+	}
+	left := t.add(squared(t.sub(x(c.P), x(c.Q))), squared(t.sub(y(c.P), y(c.Q))))
+	return []T{t.sub(left, t.add(squared(t.sub(x(c.P), x(c.R))), squared(t.sub(y(c.P), y(c.R)))))}
+}
+
+// exact returns the residuals of c at rational points.
+func exact(c api.Constraint, points [][2]*big.Rat) []*big.Rat {
+	return table[*big.Rat]{
+		points:   points,
+		constant: value,
+		add:      func(a, b *big.Rat) *big.Rat { return new(big.Rat).Add(a, b) },
+		sub:      func(a, b *big.Rat) *big.Rat { return new(big.Rat).Sub(a, b) },
+		mul:      func(a, b *big.Rat) *big.Rat { return new(big.Rat).Mul(a, b) },
+	}.residuals(c)
+}
+
+// values returns the coordinates of the points.
+func values(points [][2]api.Ratio) [][2]*big.Rat {
+	var out [][2]*big.Rat
+	for _, p := range points {
+		out = append(out, [2]*big.Rat{value(p[0]), value(p[1])})
+	}
+	return out
+}
+
+// wantResidual returns the outcome of Residual of the valid constraint c.
+func wantResidual(c api.Constraint, points [][2]api.Ratio) string {
+	var out []api.Ratio
+	for _, v := range exact(c, values(points)) {
+		out = append(out, ofValue(v))
+	}
+	return text(out)
+}
+
+// wantGradient returns the outcome of Gradient of the valid constraint c: half of
+// the differences of the residuals if a coordinate is 1 greater and 1 less, which
+// is exact for polynomials of degree 2.
+func wantGradient(c api.Constraint, points [][2]api.Ratio) string {
+	var out [][][2]api.Ratio
+	for range exact(c, values(points)) {
+		out = append(out, make([][2]api.Ratio, len(points)))
+	}
+	for p := range points {
+		for axis := range 2 {
+			at := values(points)
+			middle := at[p][axis]
+			at[p][axis] = new(big.Rat).Add(middle, big.NewRat(1, 1))
+			after := exact(c, at)
+			at[p][axis] = new(big.Rat).Sub(middle, big.NewRat(1, 1))
+			for i, before := range exact(c, at) {
+				difference := new(big.Rat).Sub(after[i], before)
+				out[i][p][axis] = ofValue(difference.Mul(difference, big.NewRat(1, 2)))
+			}
+		}
+	}
+	return gradientOutcome(out, api.OK)
+}
+
+// wantHolds returns the outcome of Holds of a constraint that is valid for the
+// points, with the functions of package tower in the order of the chapter.
+func wantHolds(c api.Constraint, t api.Tower, points [][2][]api.Ratio) string {
+	failed := !tower.Valid(t)
+	checked := func(a []api.Ratio, err api.Errno) []api.Ratio {
+		failed = failed || err != api.OK
+		return a
+	}
+	residuals := table[[]api.Ratio]{
+		points:   points,
+		constant: func(r api.Ratio) []api.Ratio { return checked(tower.FromRatio(t, r)) },
+		add:      func(a, b []api.Ratio) []api.Ratio { return checked(tower.Add(t, a, b)) },
+		sub:      func(a, b []api.Ratio) []api.Ratio { return checked(tower.Sub(t, a, b)) },
+		mul:      func(a, b []api.Ratio) []api.Ratio { return checked(tower.Mul(t, a, b)) },
+	}.residuals(c)
+	holds := true
+	for _, r := range residuals {
+		sign, err := tower.Sign(t, r)
+		holds = holds && sign == 0
+		failed = failed || err != api.OK
+	}
+	if failed {
+		return refused
+	}
+	return strconv.FormatBool(holds)
+}
+
+// putString returns the encoding of s.
+func putString(s string) string {
+	return string(binary.AppendVarint(nil, int64(len(s)))) + s
+}
+
+// wantCode returns the outcome of Encode.
+func wantCode(s api.Sketch) string {
+	if !isSketch(s) {
+		return refused
+	}
+	out := binary.AppendVarint(binary.AppendVarint(nil, int64(s.Points)), int64(len(s.Constraints)))
+	for _, c := range s.Constraints {
+		out = binary.AppendVarint(out, int64(c.Kind))
+		for _, i := range uses(c) {
+			out = binary.AppendVarint(out, int64(i))
+		}
+		if c.Kind == 1 {
+			out = append(out, putString(c.X.Num)+putString(c.X.Den)+putString(c.Y.Num)+putString(c.Y.Den)...)
+		}
+		if c.Kind == 2 {
+			out = append(out, putString(c.Value.Num)+putString(c.Value.Den)...)
+		}
+	}
+	return string(out)
+}
+
+// A scanner reads an encoding, and keeps the first error.
+type scanner struct {
+	rest string
+	err  api.Errno
+}
+
+// fail notes err, unless there was an error before.
+func (s *scanner) fail(err api.Errno) {
+	if s.err == api.OK {
+		s.err = err
+	}
+}
+
+// int reads an integer.
+func (s *scanner) int() int {
+	n, size := binary.Varint([]byte(s.rest))
+	if size <= 0 || n > 1<<62-1 || n < -(1<<62-1) || !strings.HasPrefix(s.rest, string(binary.AppendVarint(nil, n))) {
+		s.fail(api.ErrWire)
+		return 0
+	}
+	s.rest = s.rest[size:]
+	return int(n)
+}
+
+// string reads a string.
+func (s *scanner) string() string {
+	size := s.int()
+	if size < 0 || size > 65536 || size > len(s.rest) {
+		s.fail(api.ErrWire)
+		return ""
+	}
+	out := s.rest[:size]
+	s.rest = s.rest[size:]
+	return out
+}
+
+// ratio reads a fraction.
+func (s *scanner) ratio() api.Ratio {
+	num := s.string()
+	return api.Ratio{Num: num, Den: s.string()}
+}
+
+// wantSketch returns the outcome of Decode.
+func wantSketch(code string) string {
+	s := scanner{rest: code}
+	out := api.Sketch{Points: s.int()}
+	count := s.int()
+	if count < 0 || count > 16 {
+		s.fail(api.ErrSketch)
+	}
+	for i := 0; i < count && s.err == api.OK; i++ {
+		c := api.Constraint{Kind: s.int()}
+		if c.Kind < 1 || c.Kind > 8 {
+			s.fail(api.ErrSketch)
+			break
+		}
+		for k := range uses(c) {
+			*[]*int{&c.P, &c.Q, &c.R, &c.S}[k] = s.int()
+		}
+		if c.Kind == 1 {
+			c.X = s.ratio()
+			c.Y = s.ratio()
+		}
+		if c.Kind == 2 {
+			c.Value = s.ratio()
+		}
+		out.Constraints = append(out.Constraints, c)
+	}
+	if s.rest != "" {
+		s.fail(api.ErrWire)
+	}
+	if !isSketch(out) {
+		s.fail(api.ErrSketch)
+	}
+	if s.err != api.OK {
+		return sample.Failure(s.err)
+	}
+	return sketchOutcome(out, api.OK)
+}
