@@ -40,7 +40,7 @@ func code(parts ...any) string {
 
 // P9.1: the encoding of a sketch is what the chapter says, and others have none.
 func TestEncode(t *testing.T) {
-	for _, c := range append(constraints(4), strangers()...) {
+	for _, c := range append(sample.Constraints(4), sample.InvalidConstraints()...) {
 		for n := range 9 {
 			if got, want := codeOutcome(sketch.Encode(of(n, c))), wantCode(of(n, c)); got != want {
 				t.Errorf("Encode(%d points, %.200q) = %q instead of %q", n, c.Value, got, want)
@@ -48,7 +48,7 @@ func TestEncode(t *testing.T) {
 		}
 	}
 	fine := api.Constraint{Kind: api.CVertical, P: 7}
-	list := sketches(600, 3)
+	list := sample.Sketches(600, 3)
 	for _, n := range []int{-1 << 63, -1, 0, 1, 8, 9} {
 		list = append(list, of(n))
 	}
@@ -66,8 +66,8 @@ func TestEncode(t *testing.T) {
 // with bytes after it; different sketches have different encodings.
 func TestDecodeEncoded(t *testing.T) {
 	known := map[string]api.Sketch{}
-	list := sketches(600, 4)
-	for i, c := range constraints(4) {
+	list := sample.Sketches(600, 4)
+	for i, c := range sample.Constraints(4) {
 		list = append(list, of(4+i%5, c))
 	}
 	for _, s := range list {
@@ -97,7 +97,7 @@ func TestDecodeEncoded(t *testing.T) {
 // is the encoding of the result.
 func TestDecodeChanged(t *testing.T) {
 	accepted := 0
-	for _, s := range sketches(160, 5) {
+	for _, s := range sample.Sketches(160, 5) {
 		text, _ := sketch.Encode(s)
 		for i := range text {
 			codes := []string{text[:i] + text[i+1:], text[:i+1] + text[i:], text[:i] + "\x81\x00" + text[i+1:]}

@@ -18,7 +18,7 @@ func of(n int, list ...api.Constraint) api.Sketch { return api.Sketch{Points: n,
 // says so.
 func checkForm(t *testing.T, c api.Constraint, n int) {
 	t.Helper()
-	if got := sketch.Valid(of(n, c)); got != isValid(c, n) {
+	if got := sketch.Valid(of(n, c)); got != sample.IsConstraint(c, n) {
 		t.Errorf("Valid(%d points, %+v) = %t", n, c, got)
 	}
 }
@@ -63,7 +63,7 @@ func TestValidFields(t *testing.T) {
 			c.X, c.Y, c.Value = api.Ratio{}, api.Ratio{}, api.Ratio{}
 			for n := range 5 {
 				checkForm(t, c, n)
-				if isValid(c, n) {
+				if sample.IsConstraint(c, n) {
 					valid++
 				}
 			}
@@ -88,13 +88,13 @@ func TestValidValues(t *testing.T) {
 			{Kind: api.CFix, X: number("1"), Y: number("1"), Value: r}, {Kind: api.CDistance, Q: 1, Value: number("1"), X: r}, {Kind: api.CDistance, Q: 1, Value: number("1"), Y: r},
 		} {
 			checkForm(t, c, 2)
-			if isValid(c, 2) {
+			if sample.IsConstraint(c, 2) {
 				accepted++
 			}
 		}
 		// Coordinates must be short in the same way.
 		want := refused
-		if isShort(r) {
+		if sample.IsShort(r) {
 			want = rational.Print(r)
 		}
 		for axis, c := range []api.Constraint{{Kind: api.CVertical, Q: 1}, {Kind: api.CHorizontal, Q: 1}} {
@@ -134,12 +134,12 @@ func TestValidSketch(t *testing.T) {
 			list[i] = fine
 		}
 	}
-	for _, s := range sketches(400, 1) {
+	for _, s := range sample.Sketches(400, 1) {
 		if !sketch.Valid(s) {
 			t.Errorf("Valid(%+v) = false", s)
 		}
 	}
-	for _, c := range strangers() {
+	for _, c := range sample.InvalidConstraints() {
 		if sketch.Valid(of(8, c)) {
 			t.Errorf("Valid(%.300q) = true", c.Value)
 		}
@@ -148,7 +148,7 @@ func TestValidSketch(t *testing.T) {
 
 // P9.1: the same sketch, and one with another value of any field, valid or not.
 func TestSame(t *testing.T) {
-	list := append(sketches(60, 2), of(0), of(-5), of(1<<40), of(3, strangers()...))
+	list := append(sample.Sketches(60, 2), of(0), of(-5), of(1<<40), of(3, sample.InvalidConstraints()...))
 	for i, a := range list {
 		b := of(a.Points, slices.Clone(a.Constraints)...)
 		if !sketch.Same(a, b) {
@@ -189,7 +189,7 @@ func TestUses(t *testing.T) {
 	for _, kind := range []int{-1 << 63, -1, 0, 1, 2, 3, 4, 5, 6, 7, 8, 9, 10, 1<<63 - 1} {
 		for i := range 8 * 8 * 8 * 8 {
 			c := api.Constraint{Kind: kind, P: indices[i%8], Q: indices[i/8%8], R: indices[i/64%8], S: indices[i/512], Value: api.Ratio{Num: "x"}}
-			want := slices.Clone(uses(c))
+			want := slices.Clone(sample.Indices(c))
 			slices.Sort(want)
 			if got := sketch.Uses(c); !slices.Equal(got, slices.Compact(want)) {
 				t.Fatalf("Uses(%+v) = %v", c, got)

@@ -27,7 +27,7 @@ func checkHolds(t *testing.T, c api.Constraint, u api.Tower, points [][2][]api.R
 // the index first on.
 func chosen(first int, step int) []api.Constraint {
 	var out []api.Constraint
-	all := constraints(4)
+	all := sample.Constraints(4)
 	for i := first; i < len(all); i += step {
 		out = append(out, all[i])
 	}
@@ -71,7 +71,7 @@ func TestHoldsTooLarge(t *testing.T) {
 		elements = append(elements, sample.Numbers(s))
 	}
 	outcomes := map[string]map[int]int{refused: {}, "true": {}, "false": {}}
-	for i, c := range constraints(4) {
+	for i, c := range sample.Constraints(4) {
 		for k := range 24 {
 			outcomes[checkHolds(t, c, api.Tower{}, points(elements, 4, uint64(i)<<20+uint64(k)<<8))][c.Kind]++
 		}
@@ -122,7 +122,7 @@ func TestHoldsBoth(t *testing.T) {
 
 // occurs reports whether a coordinate of a point occurs in the residuals of c.
 func occurs(c api.Constraint, point int, axis int) bool {
-	return slices.Contains(uses(c), point) && (c.Kind != api.CHorizontal || axis == 1) && (c.Kind != api.CVertical || axis == 0)
+	return slices.Contains(sample.Indices(c), point) && (c.Kind != api.CHorizontal || axis == 1) && (c.Kind != api.CVertical || axis == 0)
 }
 
 // P9.1, P9.5: the coordinates that occur in the residuals have to be elements; the
@@ -162,13 +162,13 @@ func TestHoldsElements(t *testing.T) {
 // P9.1: constraints that are not valid for so many points, and towers that are not.
 func TestHoldsRefused(t *testing.T) {
 	list := elementsOf(api.Tower{}, grid(8, 2, 1))
-	for _, c := range strangers() {
+	for _, c := range sample.InvalidConstraints() {
 		if got := holdsOutcome(sketch.Holds(c, api.Tower{}, list)); got != refused {
 			t.Errorf("Holds(%.300q) = %s", c.Value, got)
 		}
 	}
-	for _, c := range constraints(4) {
-		for _, short := range [][][2][]api.Ratio{nil, list[:slices.Max(uses(c))]} {
+	for _, c := range sample.Constraints(4) {
+		for _, short := range [][][2][]api.Ratio{nil, list[:slices.Max(sample.Indices(c))]} {
 			if got := holdsOutcome(sketch.Holds(c, api.Tower{}, short)); got != refused {
 				t.Errorf("Holds(%+v) with %d points = %s", c, len(short), got)
 			}
@@ -206,7 +206,7 @@ func TestHoldsRational(t *testing.T) {
 		u := sample.Tower(s.Text)
 		step := 2 + 2*len(u.Radicands)*len(u.Radicands)
 		for k, c := range chosen(i%step, step) {
-			for _, rationals := range append(grids(uint64(i * k))[:4], places(4, 3, uint64(i*k))) {
+			for _, rationals := range append(grids(uint64(i * k))[:4], sample.Places(4, 3, uint64(i*k))) {
 				list := elementsOf(u, rationals)
 				for m := range list {
 					if len(s.Vanishing) > 0 {

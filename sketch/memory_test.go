@@ -18,7 +18,7 @@ var (
 // P9.1: no function modifies its arguments or their spare capacity, and nothing
 // that is written into a result reaches them, or another result.
 func TestMemory(t *testing.T) {
-	for i, c := range constraints(4) {
+	for i, c := range sample.Constraints(4) {
 		points := grid(5, 3, uint64(i))
 		guarded := sample.Guarded(points, [2]api.Ratio{markRatio, markRatio})
 		calls := func() ([]api.Ratio, [][][2]api.Ratio, []int) {
@@ -85,7 +85,7 @@ func TestHoldsMemory(t *testing.T) {
 
 // P9.1: nor do the functions of whole sketches.
 func TestSketchMemory(t *testing.T) {
-	for i, s := range sketches(200, 6) {
+	for i, s := range sample.Sketches(200, 6) {
 		guarded := api.Sketch{Points: s.Points, Constraints: sample.Guarded(s.Constraints, markConstraint)}
 		if !sketch.Valid(guarded) || !sketch.Same(guarded, s) {
 			t.Errorf("%d: another sketch with spare capacity", i)

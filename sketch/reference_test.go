@@ -4,7 +4,6 @@ import (
 	"encoding/binary"
 	"fmt"
 	"math/big"
-	"slices"
 	"strconv"
 	"strings"
 
@@ -54,56 +53,14 @@ func sketchOutcome(s api.Sketch, err api.Errno) string {
 	return sample.Outcome(fmt.Sprintf("%#v", s), s.Points == 0 && len(s.Constraints) == 0, err)
 }
 
-// isShort reports whether r is short.
-func isShort(r api.Ratio) bool {
-	return rational.Valid(r) && len(strings.Trim(r.Num, "-")) <= 12 && len(r.Den) <= 12
-}
-
-// isValid reports whether c is valid for n points, by the table of the chapter.
-func isValid(c api.Constraint, n int) bool {
-	in := func(indices ...int) bool {
-		return !slices.ContainsFunc(indices, func(i int) bool { return i < 0 || i >= n })
-	}
-	different := c.P != c.Q && c.P != c.R && c.Q != c.R
-	switch c.Kind {
-	case 1:
-		return c == api.Constraint{Kind: 1, P: c.P, X: c.X, Y: c.Y} && in(c.P) && isShort(c.X) && isShort(c.Y)
-	case 2:
-		return c == api.Constraint{Kind: 2, P: c.P, Q: c.Q, Value: c.Value} && in(c.P, c.Q) && c.P != c.Q && isShort(c.Value) && value(c.Value).Sign() > 0
-	case 3, 4:
-		return c == api.Constraint{Kind: c.Kind, P: c.P, Q: c.Q} && in(c.P, c.Q) && c.P != c.Q
-	case 5, 7, 8:
-		return c == api.Constraint{Kind: c.Kind, P: c.P, Q: c.Q, R: c.R} && in(c.P, c.Q, c.R) && different
-	case 6:
-		return c == api.Constraint{Kind: 6, P: c.P, Q: c.Q, R: c.R, S: c.S} && in(c.P, c.Q, c.R, c.S) && c.P != c.Q && c.R != c.S
-	}
-	return false
-}
-
 // isSketch reports whether s is valid, by the definition of the chapter.
 func isSketch(s api.Sketch) bool {
 	for _, c := range s.Constraints {
-		if !isValid(c, s.Points) {
+		if !sample.IsConstraint(c, s.Points) {
 			return false
 		}
 	}
 	return s.Points >= 1 && s.Points <= 8 && len(s.Constraints) <= 16
-}
-
-// uses returns the indices in the row of the kind of c, in order.
-func uses(c api.Constraint) []int {
-	all := []int{c.P, c.Q, c.R, c.S}
-	switch c.Kind {
-	case 1:
-		return all[:1]
-	case 2, 3, 4:
-		return all[:2]
-	case 5, 7, 8:
-		return all[:3]
-	case 6:
-		return all
-	}
-	return nil
 }
 
 // value returns the value of the valid fraction r.
@@ -251,7 +208,7 @@ func wantCode(s api.Sketch) string {
 	out := binary.AppendVarint(binary.AppendVarint(nil, int64(s.Points)), int64(len(s.Constraints)))
 	for _, c := range s.Constraints {
 		out = binary.AppendVarint(out, int64(c.Kind))
-		for _, i := range uses(c) {
+		for _, i := range sample.Indices(c) {
 			out = binary.AppendVarint(out, int64(i))
 		}
 		if c.Kind == 1 {
@@ -320,7 +277,7 @@ func wantSketch(code string) string {
 			s.fail(api.ErrSketch)
 			break
 		}
-		for k := range uses(c) {
+		for k := range sample.Indices(c) {
 			*[]*int{&c.P, &c.Q, &c.R, &c.S}[k] = s.int()
 		}
 		if c.Kind == 1 {

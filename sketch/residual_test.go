@@ -38,8 +38,8 @@ func checkAt(t *testing.T, c api.Constraint, points [][2]api.Ratio) {
 // P9.1: residuals and gradients of all constraints, as in the table of the chapter.
 func TestResidual(t *testing.T) {
 	zeros := map[int]int{}
-	for i, c := range constraints(4) {
-		for _, points := range append(grids(uint64(i)), grid(6, 3, uint64(i)), places(4, 2, uint64(i)), places(5+i%4, 5, uint64(i)+3000)) {
+	for i, c := range sample.Constraints(4) {
+		for _, points := range append(grids(uint64(i)), grid(6, 3, uint64(i)), sample.Places(4, 2, uint64(i)), sample.Places(5+i%4, 5, uint64(i)+3000)) {
 			checkAt(t, c, points)
 			if residuals, _ := sketch.Residual(c, points); isZero(residuals) {
 				zeros[c.Kind]++
@@ -60,11 +60,11 @@ func TestResidualSize(t *testing.T) {
 	for _, den := range []string{nines, "999999999998", "999999999989", "999999999961", "1"} {
 		extremes = append(extremes, rational.Print(sample.Fraction(nines, den)), rational.Print(sample.Fraction("-999999999997", den)))
 	}
-	for i, c := range constraints(4) {
+	for i, c := range sample.Constraints(4) {
 		if c.Kind == api.CDistance {
 			c.Value = number("999999999998/" + nines)
 		}
-		checkAt(t, c, places(4, 12, uint64(i)))
+		checkAt(t, c, sample.Places(4, 12, uint64(i)))
 		var words []string
 		for k := range 8 {
 			words = append(words, extremes[(i*7+k*(1+i%3))%len(extremes)])
@@ -85,17 +85,17 @@ func TestResidualRefused(t *testing.T) {
 			t.Errorf("Gradient of %.200q, %s: %s", c.Value, name, got)
 		}
 	}
-	for _, c := range strangers() {
+	for _, c := range sample.InvalidConstraints() {
 		check("a stranger", c, grid(8, 3, 1))
 	}
-	for _, c := range constraints(4)[:200] {
+	for _, c := range sample.Constraints(4)[:200] {
 		check("no points", c, nil)
-		check("too few points", c, grid(slices.Max(uses(c)), 3, 2))
+		check("too few points", c, grid(slices.Max(sample.Indices(c)), 3, 2))
 		check("9 points", c, grid(9, 3, 3))
 		check("many points", c, slices.Repeat(grid(1, 3, 4), 1<<16))
 	}
 	wrong := append(sample.InvalidFractions(), sample.Numbers("1000000000000 1/1000000000000 -1000000000000/7")...)
-	for _, c := range constraints(3) {
+	for _, c := range sample.Constraints(3) {
 		for i, r := range wrong {
 			points := grid(4, 3, 5)
 			points[i%4][i/4%2] = r
@@ -112,8 +112,8 @@ func TestResidualRefused(t *testing.T) {
 // P9.4: half of the difference of the residuals at two points is the product of the
 // gradient and the vector between them, if all points move.
 func TestDerivative(t *testing.T) {
-	for i, c := range constraints(4) {
-		points, vectors := places(4+i%5, 4, uint64(i)), places(4+i%5, 2, uint64(i)+5000)
+	for i, c := range sample.Constraints(4) {
+		points, vectors := sample.Places(4+i%5, 4, uint64(i)), sample.Places(4+i%5, 2, uint64(i)+5000)
 		moved := func(operate func(a, b api.Ratio) (api.Ratio, api.Errno)) []api.Ratio {
 			var out [][2]api.Ratio
 			for k, p := range points {
@@ -149,12 +149,12 @@ func TestDerivative(t *testing.T) {
 // P9.5: points that a constraint does not use make no difference to its residuals
 // and its gradient, which is 0 for them.
 func TestUnused(t *testing.T) {
-	for i, c := range constraints(4) {
-		points := places(8, 3, uint64(i))
+	for i, c := range sample.Constraints(4) {
+		points := sample.Places(8, 3, uint64(i))
 		want, gradient := residualOutcome(sketch.Residual(c, points)), wantGradient(c, points)
-		for n := slices.Max(uses(c)) + 1; n <= 8; n++ {
-			others := places(n, 6, uint64(i)+7000)
-			for _, k := range uses(c) {
+		for n := slices.Max(sample.Indices(c)) + 1; n <= 8; n++ {
+			others := sample.Places(n, 6, uint64(i)+7000)
+			for _, k := range sample.Indices(c) {
 				others[k] = points[k]
 			}
 			if got := residualOutcome(sketch.Residual(c, others)); got != want {
@@ -167,7 +167,7 @@ func TestUnused(t *testing.T) {
 		g, _ := sketch.Gradient(c, points)
 		for k := range points {
 			for _, list := range g {
-				if !slices.Contains(uses(c), k) && text(list[k][:]) != "0 0" {
+				if !slices.Contains(sample.Indices(c), k) && text(list[k][:]) != "0 0" {
 					t.Errorf("Gradient(%+v) is %s for point %d", c, text(list[k][:]), k)
 				}
 			}
@@ -216,11 +216,11 @@ func (g congruence) apply(points [][2]api.Ratio) [][2]api.Ratio {
 // and those of CMidpoint are 0 for the same points.
 func TestCongruence(t *testing.T) {
 	changed, zeros := 0, map[int]int{}
-	for i, c := range constraints(4) {
+	for i, c := range sample.Constraints(4) {
 		if c.Kind == api.CFix || c.Kind == api.CHorizontal || c.Kind == api.CVertical {
 			continue
 		}
-		for _, points := range append(grids(uint64(i)), places(4, 2, uint64(i))) {
+		for _, points := range append(grids(uint64(i)), sample.Places(4, 2, uint64(i))) {
 			before, errBefore := sketch.Residual(c, points)
 			for k, g := range congruences() {
 				after, errAfter := sketch.Residual(c, g.apply(points))

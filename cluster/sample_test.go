@@ -1,0 +1,93 @@
+package cluster_test
+
+import (
+	"slices"
+
+	"workpiece/api"
+	"workpiece/sample"
+)
+
+// of returns the sketch with n points and the given constraints.
+func of(n int, list ...api.Constraint) api.Sketch { return api.Sketch{Points: n, Constraints: list} }
+
+// tie returns a constraint of a kind on the given points.
+func tie(kind int, points ...int) api.Constraint {
+	l := append(points, 0, 0, 0)
+	c := api.Constraint{Kind: kind, P: l[0], Q: l[1], R: l[2], S: l[3]}
+	switch kind {
+	case api.CFix:
+		c.X, c.Y = sample.Number("1"), sample.Number("-2")
+	case api.CDistance:
+		c.Value = sample.Number("5")
+	}
+	return c
+}
+
+// shuffled returns the numbers less than n in some order.
+func shuffled(n int, seed uint64) []int {
+	var out []int
+	for i, b := range []byte(sample.Bytes(n, seed)) {
+		out = slices.Insert(out, int(b)%(i+1), i)
+	}
+	return out
+}
+
+// renumbered returns c with the numbers at the indices of its points instead of
+// these.
+func renumbered(c api.Constraint, numbers []int) api.Constraint {
+	fields := []*int{&c.P, &c.Q, &c.R, &c.S}
+	for k, i := range sample.Indices(c) {
+		*fields[k] = numbers[i]
+	}
+	return c
+}
+
+// reordered returns the elements of list in the order of their indices.
+func reordered[T any](list []T, order []int) []T {
+	var out []T
+	for _, i := range order {
+		out = append(out, list[i])
+	}
+	return out
+}
+
+// newest returns a constraint for the points 0 to p that uses p.
+func newest(p int, seed uint64) api.Constraint {
+	for ; ; seed += 1 << 48 {
+		if c := sample.Constraint(p+1, seed); slices.Contains(sample.Indices(c), p) {
+			return c
+		}
+	}
+}
+
+// chains returns count sketches most of whose points can be placed: each point is
+// tied twice to points before it, in some order of the points, and of the
+// constraints.
+func chains(count int, seed uint64) []api.Sketch {
+	var out []api.Sketch
+	for i := range count {
+		n := 2 + i%(api.MaxPoints-1)
+		own := seed + uint64(i)<<8
+		order := shuffled(n, own)
+		var list []api.Constraint
+		for k := range 2 * n {
+			list = append(list, renumbered(newest(k/2, own+uint64(k)), order))
+		}
+		out = append(out, of(n, reordered(list, shuffled(len(list), own))...))
+	}
+	return out
+}
+
+// sketches returns count valid sketches of all sizes, of which many points can be
+// placed, and others cannot.
+func sketches(count int, seed uint64) []api.Sketch {
+	return append(sample.Sketches(count/2, seed), chains(count/2, seed)...)
+}
+
+// chosen returns a function that chooses one of several steps.
+func chosen(seed uint64) func(all []api.Step) api.Step {
+	return func(all []api.Step) api.Step {
+		seed++
+		return all[int(sample.Bytes(1, seed)[0])%len(all)]
+	}
+}
