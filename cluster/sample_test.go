@@ -1,8 +1,6 @@
 package cluster_test
 
 import (
-	"slices"
-
 	"workpiece/api"
 	"workpiece/sample"
 )
@@ -23,43 +21,6 @@ func tie(kind int, points ...int) api.Constraint {
 	return c
 }
 
-// shuffled returns the numbers less than n in some order.
-func shuffled(n int, seed uint64) []int {
-	var out []int
-	for i, b := range []byte(sample.Bytes(n, seed)) {
-		out = slices.Insert(out, int(b)%(i+1), i)
-	}
-	return out
-}
-
-// renumbered returns c with the numbers at the indices of its points instead of
-// these.
-func renumbered(c api.Constraint, numbers []int) api.Constraint {
-	fields := []*int{&c.P, &c.Q, &c.R, &c.S}
-	for k, i := range sample.Indices(c) {
-		*fields[k] = numbers[i]
-	}
-	return c
-}
-
-// reordered returns the elements of list in the order of their indices.
-func reordered[T any](list []T, order []int) []T {
-	var out []T
-	for _, i := range order {
-		out = append(out, list[i])
-	}
-	return out
-}
-
-// newest returns a constraint for the points 0 to p that uses p.
-func newest(p int, seed uint64) api.Constraint {
-	for ; ; seed += 1 << 48 {
-		if c := sample.Constraint(p+1, seed); slices.Contains(sample.Indices(c), p) {
-			return c
-		}
-	}
-}
-
 // chains returns count sketches most of whose points can be placed: each point is
 // tied twice to points before it, in some order of the points, and of the
 // constraints.
@@ -68,12 +29,12 @@ func chains(count int, seed uint64) []api.Sketch {
 	for i := range count {
 		n := 2 + i%(api.MaxPoints-1)
 		own := seed + uint64(i)<<8
-		order := shuffled(n, own)
+		order := sample.Shuffled(n, own)
 		var list []api.Constraint
 		for k := range 2 * n {
-			list = append(list, renumbered(newest(k/2, own+uint64(k)), order))
+			list = append(list, sample.Renumbered(sample.Newest(k/2, own+uint64(k)), order))
 		}
-		out = append(out, of(n, reordered(list, shuffled(len(list), own))...))
+		out = append(out, of(n, sample.Reordered(list, sample.Shuffled(len(list), own))...))
 	}
 	return out
 }

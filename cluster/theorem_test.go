@@ -55,7 +55,7 @@ func TestClosure(t *testing.T) {
 
 // moved returns the numbers of the indices in list, in ascending order.
 func moved(list []int, numbers []int) []int {
-	out := reordered(numbers, list)
+	out := sample.Reordered(numbers, list)
 	slices.Sort(out)
 	return out
 }
@@ -73,10 +73,10 @@ func inverse(order []int) []int {
 // nothing but the numbers.
 func TestNumbers(t *testing.T) {
 	for i, s := range sketches(3000, 6) {
-		points, order := shuffled(s.Points, uint64(i)), shuffled(len(s.Constraints), uint64(i))
+		points, order := sample.Shuffled(s.Points, uint64(i)), sample.Shuffled(len(s.Constraints), uint64(i))
 		other := of(s.Points)
-		for _, c := range reordered(s.Constraints, order) {
-			other.Constraints = append(other.Constraints, renumbered(c, points))
+		for _, c := range sample.Reordered(s.Constraints, order) {
+			other.Constraints = append(other.Constraints, sample.Renumbered(c, points))
 		}
 		places := inverse(order)
 		c := plan(t, s)

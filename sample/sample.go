@@ -2,6 +2,8 @@
 // are the same in every run.
 package sample
 
+import "slices"
+
 // Bytes returns size bytes, which are different ones for different seeds.
 func Bytes(size int, seed uint64) string {
 	out := make([]byte, size)
@@ -67,4 +69,22 @@ func Strings(letters string, length int) []string {
 		}
 	}
 	return list
+}
+
+// Shuffled returns the numbers less than n in some order.
+func Shuffled(n int, seed uint64) []int {
+	var out []int
+	for i, b := range []byte(Bytes(n, seed)) {
+		out = slices.Insert(out, int(b)%(i+1), i)
+	}
+	return out
+}
+
+// Reordered returns the elements of list in the order of their indices.
+func Reordered[T any](list []T, order []int) []T {
+	var out []T
+	for _, i := range order {
+		out = append(out, list[i])
+	}
+	return out
 }

@@ -52,6 +52,12 @@ func IsConstraint(c api.Constraint, n int) bool {
 	return false
 }
 
+// IsSketch reports whether s is valid, by the definition of the chapter on sketches.
+func IsSketch(s api.Sketch) bool {
+	isInvalid := func(c api.Constraint) bool { return !IsConstraint(c, s.Points) }
+	return s.Points >= 1 && s.Points <= 8 && len(s.Constraints) <= 16 && !slices.ContainsFunc(s.Constraints, isInvalid)
+}
+
 // values are positions and lengths in constraints.
 var values = [...]struct{ position, length api.Ratio }{
 	{api.Ratio{Num: "0", Den: "1"}, api.Ratio{Num: "5", Den: "2"}},
@@ -105,6 +111,25 @@ func Constraint(n int, seed uint64) api.Constraint {
 			return c
 		}
 	}
+}
+
+// Newest returns a valid constraint for the points 0 to p that uses p.
+func Newest(p int, seed uint64) api.Constraint {
+	for ; ; seed += 1 << 48 {
+		if c := Constraint(p+1, seed); slices.Contains(Indices(c), p) {
+			return c
+		}
+	}
+}
+
+// Renumbered returns c with the numbers at the indices of its points instead of
+// these.
+func Renumbered(c api.Constraint, numbers []int) api.Constraint {
+	fields := []*int{&c.P, &c.Q, &c.R, &c.S}
+	for k, i := range Indices(c) {
+		*fields[k] = numbers[i]
+	}
+	return c
 }
 
 // Sketches returns count valid sketches of all sizes.

@@ -53,16 +53,6 @@ func sketchOutcome(s api.Sketch, err api.Errno) string {
 	return sample.Outcome(fmt.Sprintf("%#v", s), s.Points == 0 && len(s.Constraints) == 0, err)
 }
 
-// isSketch reports whether s is valid, by the definition of the chapter.
-func isSketch(s api.Sketch) bool {
-	for _, c := range s.Constraints {
-		if !sample.IsConstraint(c, s.Points) {
-			return false
-		}
-	}
-	return s.Points >= 1 && s.Points <= 8 && len(s.Constraints) <= 16
-}
-
 // value returns the value of the valid fraction r.
 func value(r api.Ratio) *big.Rat {
 	v, ok := new(big.Rat).SetString(r.Num + "/" + r.Den)
@@ -202,7 +192,7 @@ func putString(s string) string {
 
 // wantCode returns the outcome of Encode.
 func wantCode(s api.Sketch) string {
-	if !isSketch(s) {
+	if !sample.IsSketch(s) {
 		return refused
 	}
 	out := binary.AppendVarint(binary.AppendVarint(nil, int64(s.Points)), int64(len(s.Constraints)))
@@ -292,7 +282,7 @@ func wantSketch(code string) string {
 	if s.rest != "" {
 		s.fail(api.ErrWire)
 	}
-	if !isSketch(out) {
+	if !sample.IsSketch(out) {
 		s.fail(api.ErrSketch)
 	}
 	if s.err != api.OK {
