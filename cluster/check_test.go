@@ -6,6 +6,7 @@ import (
 
 	"workpiece/api"
 	"workpiece/cluster"
+	"workpiece/sample"
 )
 
 // checkCheck checks Check of the valid sketch s, and returns what it returns.
@@ -144,10 +145,10 @@ func TestCheckStep(t *testing.T) {
 
 // P10.1: nil and empty lists are the same, and long ones are refused.
 func TestCheckLists(t *testing.T) {
-	if !cluster.Check(of(1), api.Construction{Steps: []api.Step{}, Checks: []int{}, Unplaced: []int{0}}) {
+	if !cluster.Check(sample.Sketch(1), api.Construction{Steps: []api.Step{}, Checks: []int{}, Unplaced: []int{0}}) {
 		t.Error("Check with empty lists = false")
 	}
-	if !cluster.Check(of(1, tie(api.CFix, 0)), api.Construction{Steps: []api.Step{{Second: -1}}, Checks: []int{}, Unplaced: []int{}}) {
+	if !cluster.Check(sample.Sketch(1, tie(api.CFix, 0)), api.Construction{Steps: []api.Step{{Second: -1}}, Checks: []int{}, Unplaced: []int{}}) {
 		t.Error("Check with no point left = false")
 	}
 	s := example()

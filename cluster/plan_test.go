@@ -13,7 +13,7 @@ import (
 // example returns the sketch of the chapter's examples, with further constraints.
 func example(further ...api.Constraint) api.Sketch {
 	list := []api.Constraint{tie(api.CFix, 0), tie(api.CHorizontal, 0, 1), tie(api.CDistance, 0, 1), tie(api.CDistance, 0, 2), tie(api.CDistance, 1, 2), tie(api.CHorizontal, 1, 0)}
-	return of(4, append(list, further...)...)
+	return sample.Sketch(4, append(list, further...)...)
 }
 
 // check checks the results of all functions for the valid sketch s, and returns the
@@ -101,7 +101,7 @@ func TestRoles(t *testing.T) {
 		{[]api.Constraint{tie(api.CDistance, 0, 3), tie(api.CDistance, 3, 0), tie(api.CMidpoint, 1, 0, 3), tie(api.CFix, 3)}, "[{3 4 -1}]"},
 		{[]api.Constraint{tie(api.CDistance, 0, 3), tie(api.CFix, 2), tie(api.CDistance, 3, 2), tie(api.CFix, 3)}, "[{2 3 -1} {3 5 -1}]"},
 	} {
-		s := of(4, append([]api.Constraint{tie(api.CFix, 0), tie(api.CFix, 1)}, c.list...)...)
+		s := sample.Sketch(4, append([]api.Constraint{tie(api.CFix, 0), tie(api.CFix, 1)}, c.list...)...)
 		if got := fmt.Sprint(check(t, s).Steps[2:]); got != c.want {
 			t.Errorf("%d: %s instead of %s", i, got, c.want)
 		}
@@ -117,12 +117,12 @@ func TestPairs(t *testing.T) {
 			for p := range fixed {
 				list = append(list, tie(api.CFix, p))
 			}
-			check(t, of(n, list...))
+			check(t, sample.Sketch(n, list...))
 			for i, one := range all {
-				check(t, of(n, append(slices.Clip(list), one)...))
+				check(t, sample.Sketch(n, append(slices.Clip(list), one)...))
 				for k, two := range all {
 					if n < 4 || (i+k)%3 == 0 {
-						check(t, of(n, append(slices.Clip(list), one, two)...))
+						check(t, sample.Sketch(n, append(slices.Clip(list), one, two)...))
 					}
 				}
 			}
@@ -163,7 +163,7 @@ func TestInvalid(t *testing.T) {
 			t.Errorf("%d: Components = %v", i, got)
 		}
 		for n := range 9 {
-			unplaced, _ := cluster.Plan(of(n))
+			unplaced, _ := cluster.Plan(sample.Sketch(n))
 			if cluster.Check(s, api.Construction{Unplaced: unplaced.Unplaced}) {
 				t.Errorf("%d: Check with %d points left", i, n)
 			}

@@ -5,9 +5,6 @@ import (
 	"workpiece/sample"
 )
 
-// of returns the sketch with n points and the given constraints.
-func of(n int, list ...api.Constraint) api.Sketch { return api.Sketch{Points: n, Constraints: list} }
-
 // tie returns a constraint of a kind on the given points.
 func tie(kind int, points ...int) api.Constraint {
 	l := append(points, 0, 0, 0)
@@ -34,7 +31,7 @@ func chains(count int, seed uint64) []api.Sketch {
 		for k := range 2 * n {
 			list = append(list, sample.Renumbered(sample.Newest(k/2, own+uint64(k)), order))
 		}
-		out = append(out, of(n, sample.Reordered(list, sample.Shuffled(len(list), own))...))
+		out = append(out, sample.Sketch(n, sample.Reordered(list, sample.Shuffled(len(list), own))...))
 	}
 	return out
 }

@@ -74,7 +74,7 @@ func inverse(order []int) []int {
 func TestNumbers(t *testing.T) {
 	for i, s := range sketches(3000, 6) {
 		points, order := sample.Shuffled(s.Points, uint64(i)), sample.Shuffled(len(s.Constraints), uint64(i))
-		other := of(s.Points)
+		other := sample.Sketch(s.Points)
 		for _, c := range sample.Reordered(s.Constraints, order) {
 			other.Constraints = append(other.Constraints, sample.Renumbered(c, points))
 		}
@@ -170,7 +170,7 @@ func TestCurves(t *testing.T) {
 					list = append(list, tie(api.CFix, k))
 				}
 			}
-			steps := plan(t, of(4, append(list, c, tie(api.CDistance, p, (p+1)%4))...)).Steps
+			steps := plan(t, sample.Sketch(4, append(list, c, tie(api.CDistance, p, (p+1)%4))...)).Steps
 			for seed := range 3 {
 				list := graphs(t, c, sample.Places(4, 1+2*seed, uint64(i*3+seed)), p)
 				switch {
@@ -207,7 +207,7 @@ func TestFurther(t *testing.T) {
 		before := plan(t, s).Unplaced
 		for k := 0; k < 16 && len(s.Constraints) < api.MaxConstraints; k++ {
 			c := sample.Constraint(s.Points, uint64(i*16+k))
-			wider := of(s.Points, slices.Insert(slices.Clone(s.Constraints), (i+k)%(len(s.Constraints)+1), c)...)
+			wider := sample.Sketch(s.Points, slices.Insert(slices.Clone(s.Constraints), (i+k)%(len(s.Constraints)+1), c)...)
 			after := plan(t, wider).Unplaced
 			for _, p := range after {
 				if !slices.Contains(before, p) {
@@ -237,7 +237,7 @@ func TestComponents(t *testing.T) {
 		}
 		unplaced := plan(t, s).Unplaced
 		for _, group := range groups {
-			own := of(s.Points, slices.DeleteFunc(slices.Clone(s.Constraints), func(c api.Constraint) bool { return !slices.Contains(group, c.P) })...)
+			own := sample.Sketch(s.Points, slices.DeleteFunc(slices.Clone(s.Constraints), func(c api.Constraint) bool { return !slices.Contains(group, c.P) })...)
 			ownUnplaced := plan(t, own).Unplaced
 			for _, p := range group {
 				if slices.Contains(unplaced, p) != slices.Contains(ownUnplaced, p) {
@@ -274,7 +274,7 @@ func TestFreedom(t *testing.T) {
 		if s.Points == api.MaxPoints {
 			continue
 		}
-		wider := of(s.Points+1, s.Constraints...)
+		wider := sample.Sketch(s.Points+1, s.Constraints...)
 		if got, want := plan(t, wider), append(slices.Clone(c.Unplaced), s.Points); !slices.Equal(got.Unplaced, want) || !slices.Equal(got.Steps, c.Steps) {
 			t.Errorf("Plan(%+v) = %+v with a further point", s, got)
 		}

@@ -42,7 +42,7 @@ func code(parts ...any) string {
 func TestEncode(t *testing.T) {
 	for _, c := range append(sample.Constraints(4), sample.InvalidConstraints()...) {
 		for n := range 9 {
-			if got, want := codeOutcome(sketch.Encode(of(n, c))), wantCode(of(n, c)); got != want {
+			if got, want := codeOutcome(sketch.Encode(sample.Sketch(n, c))), wantCode(sample.Sketch(n, c)); got != want {
 				t.Errorf("Encode(%d points, %.200q) = %q instead of %q", n, c.Value, got, want)
 			}
 		}
@@ -50,10 +50,10 @@ func TestEncode(t *testing.T) {
 	fine := api.Constraint{Kind: api.CVertical, P: 7}
 	list := sample.Sketches(600, 3)
 	for _, n := range []int{-1 << 63, -1, 0, 1, 8, 9} {
-		list = append(list, of(n))
+		list = append(list, sample.Sketch(n))
 	}
 	for _, count := range []int{15, 16, 17, 1000} {
-		list = append(list, of(8, slices.Repeat([]api.Constraint{fine}, count)...), of(8, append(slices.Repeat([]api.Constraint{fine}, count-1), api.Constraint{})...))
+		list = append(list, sample.Sketch(8, slices.Repeat([]api.Constraint{fine}, count)...), sample.Sketch(8, append(slices.Repeat([]api.Constraint{fine}, count-1), api.Constraint{})...))
 	}
 	for _, s := range list {
 		if got, want := codeOutcome(sketch.Encode(s)), wantCode(s); got != want {
@@ -68,7 +68,7 @@ func TestDecodeEncoded(t *testing.T) {
 	known := map[string]api.Sketch{}
 	list := sample.Sketches(600, 4)
 	for i, c := range sample.Constraints(4) {
-		list = append(list, of(4+i%5, c))
+		list = append(list, sample.Sketch(4+i%5, c))
 	}
 	for _, s := range list {
 		text, err := sketch.Encode(s)

@@ -11,14 +11,11 @@ import (
 	"workpiece/sketch"
 )
 
-// of returns the sketch with n points and the given constraints.
-func of(n int, list ...api.Constraint) api.Sketch { return api.Sketch{Points: n, Constraints: list} }
-
 // checkForm checks that c is valid for n points exactly if the table of the chapter
 // says so.
 func checkForm(t *testing.T, c api.Constraint, n int) {
 	t.Helper()
-	if got := sketch.Valid(of(n, c)); got != sample.IsConstraint(c, n) {
+	if got := sketch.Valid(sample.Sketch(n, c)); got != sample.IsConstraint(c, n) {
 		t.Errorf("Valid(%d points, %+v) = %t", n, c, got)
 	}
 }
@@ -43,7 +40,7 @@ func TestExamples(t *testing.T) {
 		t.Errorf("Uses = %v", got)
 	}
 	for _, c := range []api.Constraint{{Kind: api.CDistance}, {Kind: api.CDistance, Value: five}, {Kind: api.COnLine, Q: 1, R: 3}, {Kind: api.CHorizontal, Q: 1, Value: number("1")}} {
-		if sketch.Valid(of(3, c)) {
+		if sketch.Valid(sample.Sketch(3, c)) {
 			t.Errorf("Valid(%+v) = true", c)
 		}
 	}
@@ -114,7 +111,7 @@ func TestValidValues(t *testing.T) {
 // constraint that is not valid.
 func TestValidSketch(t *testing.T) {
 	for _, n := range []int{-1 << 63, -1, 0, 1, 2, 7, 8, 9, 1 << 40} {
-		if got := sketch.Valid(of(n)); got != (n >= 1 && n <= 8) {
+		if got := sketch.Valid(sample.Sketch(n)); got != (n >= 1 && n <= 8) {
 			t.Errorf("Valid with %d points = %t", n, got)
 		}
 	}
@@ -122,13 +119,13 @@ func TestValidSketch(t *testing.T) {
 	for _, count := range []int{1, 15, 16, 17, 1 << 16} {
 		list := slices.Repeat([]api.Constraint{fine}, count)
 		for _, n := range []int{7, 8, 9} {
-			if got := sketch.Valid(of(n, list...)); got != (n == 8 && count <= 16) {
+			if got := sketch.Valid(sample.Sketch(n, list...)); got != (n == 8 && count <= 16) {
 				t.Errorf("Valid with %d points and %d constraints = %t", n, count, got)
 			}
 		}
 		for i := range min(count, 16) {
 			list[i] = api.Constraint{}
-			if sketch.Valid(of(8, list...)) {
+			if sketch.Valid(sample.Sketch(8, list...)) {
 				t.Errorf("Valid although constraint %d of %d is not", i, count)
 			}
 			list[i] = fine
@@ -140,7 +137,7 @@ func TestValidSketch(t *testing.T) {
 		}
 	}
 	for _, c := range sample.InvalidConstraints() {
-		if sketch.Valid(of(8, c)) {
+		if sketch.Valid(sample.Sketch(8, c)) {
 			t.Errorf("Valid(%.300q) = true", c.Value)
 		}
 	}
@@ -148,9 +145,9 @@ func TestValidSketch(t *testing.T) {
 
 // P9.1: the same sketch, and one with another value of any field, valid or not.
 func TestSame(t *testing.T) {
-	list := append(sample.Sketches(60, 2), of(0), of(-5), of(1<<40), of(3, sample.InvalidConstraints()...))
+	list := append(sample.Sketches(60, 2), sample.Sketch(0), sample.Sketch(-5), sample.Sketch(1<<40), sample.Sketch(3, sample.InvalidConstraints()...))
 	for i, a := range list {
-		b := of(a.Points, slices.Clone(a.Constraints)...)
+		b := sample.Sketch(a.Points, slices.Clone(a.Constraints)...)
 		if !sketch.Same(a, b) {
 			t.Errorf("%d: Same = false", i)
 		}
@@ -178,7 +175,7 @@ func TestSame(t *testing.T) {
 			t.Errorf("%d: Same with a further constraint", i)
 		}
 	}
-	if !sketch.Same(api.Sketch{Points: 1}, of(1, []api.Constraint{}...)) {
+	if !sketch.Same(api.Sketch{Points: 1}, sample.Sketch(1, []api.Constraint{}...)) {
 		t.Error("Same tells nil and empty apart")
 	}
 }

@@ -58,7 +58,7 @@ func TestCheck(t *testing.T) {
 		}
 	}
 	var last []api.Solution
-	for i, s := range sketches(t, 120, 21) {
+	for i, s := range sketches(120, 21) {
 		list, _ := solve.Solve(s)
 		for k, x := range list {
 			if !checkCheck(t, s, x) {
@@ -103,22 +103,22 @@ func TestCheckElements(t *testing.T) {
 		x    api.Solution
 		want bool
 	}{
-		{of(2), invalid, true},
-		{of(2), partly, true},
-		{of(2), level, true},
-		{of(2), api.Solution{}, false},
-		{of(0), api.Solution{}, false},
-		{of(8), api.Solution{Points: make([][2][]api.Ratio, 8)}, true},
-		{of(9), api.Solution{Points: make([][2][]api.Ratio, 9)}, false},
-		{of(1 << 20), huge, false},
-		{of(8), huge, false},
-		{of(2, tie(api.CHorizontal, 0, 1)), partly, true},
-		{of(2, tie(api.CHorizontal, 1, 0)), partly, true},
-		{of(2, tie(api.CVertical, 0, 1)), partly, false},
-		{of(2, tie(api.CHorizontal, 0, 1)), invalid, false},
-		{of(2, tie(api.CHorizontal, 0, 1)), level, false},
-		{of(2, tie(api.CHorizontal, 0, 1), tie(api.CVertical, 0, 1)), partly, false},
-		{of(2, tie(api.CVertical, 0, 1), tie(api.CHorizontal, 0, 1)), partly, false},
+		{sample.Sketch(2), invalid, true},
+		{sample.Sketch(2), partly, true},
+		{sample.Sketch(2), level, true},
+		{sample.Sketch(2), api.Solution{}, false},
+		{sample.Sketch(0), api.Solution{}, false},
+		{sample.Sketch(8), api.Solution{Points: make([][2][]api.Ratio, 8)}, true},
+		{sample.Sketch(9), api.Solution{Points: make([][2][]api.Ratio, 9)}, false},
+		{sample.Sketch(1 << 20), huge, false},
+		{sample.Sketch(8), huge, false},
+		{sample.Sketch(2, sample.Tie(api.CHorizontal, 0, 1)), partly, true},
+		{sample.Sketch(2, sample.Tie(api.CHorizontal, 1, 0)), partly, true},
+		{sample.Sketch(2, sample.Tie(api.CVertical, 0, 1)), partly, false},
+		{sample.Sketch(2, sample.Tie(api.CHorizontal, 0, 1)), invalid, false},
+		{sample.Sketch(2, sample.Tie(api.CHorizontal, 0, 1)), level, false},
+		{sample.Sketch(2, sample.Tie(api.CHorizontal, 0, 1), sample.Tie(api.CVertical, 0, 1)), partly, false},
+		{sample.Sketch(2, sample.Tie(api.CVertical, 0, 1), sample.Tie(api.CHorizontal, 0, 1)), partly, false},
 	} {
 		if got := checkCheck(t, c.s, c.x); got != c.want {
 			t.Errorf("%d: %t", i, got)
@@ -138,7 +138,7 @@ func TestCheckInvalid(t *testing.T) {
 	}
 	for i, u := range sample.InvalidTowers() {
 		x := api.Solution{Tower: u, Points: slices.Repeat([][2][]api.Ratio{{sample.Numbers("1"), sample.Numbers("1")}}, 2)}
-		if checkCheck(t, of(2, tie(api.CVertical, 0, 1)), x) {
+		if checkCheck(t, sample.Sketch(2, sample.Tie(api.CVertical, 0, 1)), x) {
 			t.Errorf("%d: Check with a tower that is not valid", i)
 		}
 	}

@@ -1,39 +1,10 @@
 package solve_test
 
 import (
-	"strconv"
-	"strings"
 	"testing"
 
-	"workpiece/api"
 	"workpiece/sample"
 )
-
-// parsed returns the sketch with a text: the number of points, and constraints with
-// their kind, four indices, and values.
-func parsed(t *testing.T, text string) api.Sketch {
-	t.Helper()
-	points, rest, _ := strings.Cut(text, ";")
-	n, err := strconv.Atoi(points)
-	s := of(n)
-	for _, part := range strings.Split(rest, ";") {
-		words := strings.Fields(part)
-		var c api.Constraint
-		for i, field := range []*int{&c.Kind, &c.P, &c.Q, &c.R, &c.S} {
-			if *field, err = strconv.Atoi(words[i]); err != nil {
-				t.Fatal(err)
-			}
-		}
-		switch c.Kind {
-		case api.CFix:
-			c.X, c.Y = sample.Number(words[5]), sample.Number(words[6])
-		case api.CDistance:
-			c.Value = sample.Number(words[5])
-		}
-		s.Constraints = append(s.Constraints, c)
-	}
-	return s
-}
 
 // P11.1: sketches for which it matters in which order something is computed, and
 // whether it is, since it is too large, or nearly so.
@@ -63,7 +34,7 @@ func TestLarge(t *testing.T) {
 		// and this one would be.
 		{"4; 1 2 0 0 0 1 65/64; 6 2 0 2 3; 5 3 2 1 0; 8 1 2 0 0; 2 3 1 0 0 21434557/1648812; 1 1 0 0 0 1591271/795635 19980395/9990197", ""},
 	} {
-		if _, _, reason := checkSolve(t, parsed(t, c.text)); reason != c.want {
+		if _, _, reason := checkSolve(t, sample.SketchOf(c.text)); reason != c.want {
 			t.Errorf("%d: %q instead of %q", i, reason, c.want)
 		}
 	}

@@ -11,9 +11,9 @@ import (
 // chain returns the sketch of the chapter's examples with further points, which have
 // the given pairs of distances from the first two.
 func chain(distances ...[2]string) api.Sketch {
-	s := base(2 + len(distances))
+	s := sample.Based(2 + len(distances))
 	for i, pair := range distances {
-		s.Constraints = append(s.Constraints, distance(0, 2+i, pair[0]), distance(2+i, 1, pair[1]))
+		s.Constraints = append(s.Constraints, sample.Distance(0, 2+i, pair[0]), sample.Distance(2+i, 1, pair[1]))
 	}
 	return s
 }
@@ -23,7 +23,7 @@ func TestLimits(t *testing.T) {
 	fraction, root, tangent := [2]string{"5", "3"}, [2]string{"3", "3"}, [2]string{"1", "3"}
 	five := chain(fraction, fraction, fraction, fraction, fraction)
 	aside := func(s api.Sketch, c api.Constraint) api.Sketch {
-		return of(s.Points, append(s.Constraints, c)...)
+		return sample.Sketch(s.Points, append(s.Constraints, c)...)
 	}
 	for i, c := range []struct {
 		s    api.Sketch
@@ -33,8 +33,8 @@ func TestLimits(t *testing.T) {
 		{chain(fraction, tangent, fraction, fraction, tangent, fraction), "16 0 "},
 		{five, "0 0 branches"},
 		// A constraint that leaves fewer comes too late.
-		{aside(five, tie(api.CHorizontal, 2, 3)), "0 0 branches"},
-		{aside(chain(fraction, fraction, fraction, fraction), tie(api.CHorizontal, 2, 3)), "8 0 "},
+		{aside(five, sample.Tie(api.CHorizontal, 2, 3)), "0 0 branches"},
+		{aside(chain(fraction, fraction, fraction, fraction), sample.Tie(api.CHorizontal, 2, 3)), "8 0 "},
 		// The fifth pair is a tangent one: it does not matter which step it is.
 		{chain(root), "2 1 "},
 		{chain(root, fraction, [2]string{"7/2", "7/2"}, fraction), "16 2 "},
@@ -55,13 +55,13 @@ func TestLimits(t *testing.T) {
 // latter.
 func TestOdd(t *testing.T) {
 	s := chain([2]string{"5", "3"})
-	s.Constraints = append(s.Constraints, fix(7, "0", "12"))
+	s.Constraints = append(s.Constraints, sample.Fix(7, "0", "12"))
 	for i, want := range []string{"3 0 ", "5 0 ", "9 0 ", "0 0 branches"} {
 		p := 3 + i
-		s.Constraints = append(s.Constraints, distance(2, p, "15"), tie(api.CHorizontal, p, 7))
-		placed := of(8, s.Constraints...)
+		s.Constraints = append(s.Constraints, sample.Distance(2, p, "15"), sample.Tie(api.CHorizontal, p, 7))
+		placed := sample.Sketch(8, s.Constraints...)
 		for rest := p + 1; rest < 7; rest++ {
-			placed.Constraints = append(placed.Constraints, fix(rest, "0", "0"))
+			placed.Constraints = append(placed.Constraints, sample.Fix(rest, "0", "0"))
 		}
 		n, level, reason := checkSolve(t, placed)
 		if got := strconv.Itoa(n) + " " + strconv.Itoa(level) + " " + string(reason); got != want {
@@ -76,7 +76,7 @@ func TestTurnover(t *testing.T) {
 	// height 3 near to it, and that has two of them.
 	s := chain([2]string{"5", "3"}, [2]string{"5", "3"}, [2]string{"5", "3"}, [2]string{"5", "3"})
 	s.Points = 8
-	s.Constraints = append(s.Constraints, fix(6, "0", "3"), tie(api.CHorizontal, 6, 7), distance(2, 7, "1"))
+	s.Constraints = append(s.Constraints, sample.Fix(6, "0", "3"), sample.Tie(api.CHorizontal, 6, 7), sample.Distance(2, 7, "1"))
 	if n, _, reason := checkSolve(t, s); n != 16 || reason != "" {
 		t.Errorf("%d solutions, %s", n, reason)
 	}
@@ -90,35 +90,35 @@ func TestTurnover(t *testing.T) {
 func TestUndetermined(t *testing.T) {
 	online, perpendicular, equal, horizontal, vertical := api.COnLine, api.CPerpendicular, api.CEqual, api.CHorizontal, api.CVertical
 	// The points 0 to 3 are at (0, 0), (4, 0), (0, 0) and (4, 3), and 4 is tied.
-	four := []api.Constraint{fix(0, "0", "0"), fix(1, "4", "0"), fix(2, "0", "0"), fix(3, "4", "3")}
+	four := []api.Constraint{sample.Fix(0, "0", "0"), sample.Fix(1, "4", "0"), sample.Fix(2, "0", "0"), sample.Fix(3, "4", "3")}
 	for i, c := range []struct {
 		one, two api.Constraint
 		want     refusal
 	}{
-		{tie(online, 4, 0, 1), tie(horizontal, 0, 4), "parallel"},
-		{tie(horizontal, 1, 4), tie(online, 0, 4, 1), "parallel"},
-		{tie(online, 4, 0, 1), tie(horizontal, 3, 4), ""},
-		{tie(horizontal, 4, 3), tie(online, 0, 1, 4), ""},
-		{tie(online, 4, 1, 3), tie(vertical, 0, 4), ""},
-		{tie(vertical, 0, 4), tie(online, 4, 1, 3), ""},
-		{tie(online, 4, 1, 3), tie(vertical, 3, 4), "parallel"},
-		{tie(online, 4, 0, 3), tie(perpendicular, 4, 1, 4, 3), "unplaced"},
-		{tie(online, 4, 0, 3), tie(online, 2, 3, 4), "parallel"},
-		{tie(online, 4, 0, 2), tie(horizontal, 4, 3), "degenerate"},
-		{tie(vertical, 4, 3), tie(online, 0, 4, 2), "degenerate"},
-		{tie(online, 4, 0, 2), tie(equal, 4, 2, 0), "degenerate"},
-		{tie(perpendicular, 4, 0, 2, 0), tie(vertical, 1, 4), "degenerate"},
-		{tie(vertical, 1, 4), tie(perpendicular, 2, 0, 0, 4), "degenerate"},
-		{tie(equal, 4, 2, 0), distance(4, 1, "1"), "degenerate"},
-		{distance(4, 1, "1"), tie(online, 2, 4, 0), "degenerate"},
-		{distance(0, 4, "2"), distance(4, 2, "2"), "concentric"},
-		{distance(0, 4, "2"), distance(4, 2, "3"), ""},
-		{distance(4, 2, "3"), tie(equal, 0, 1, 4), ""},
-		{distance(2, 4, "4"), tie(equal, 0, 4, 1), "concentric"},
-		{distance(0, 4, "1"), distance(1, 4, "1"), ""},
-		{distance(0, 4, "1"), tie(vertical, 4, 1), ""},
+		{sample.Tie(online, 4, 0, 1), sample.Tie(horizontal, 0, 4), "parallel"},
+		{sample.Tie(horizontal, 1, 4), sample.Tie(online, 0, 4, 1), "parallel"},
+		{sample.Tie(online, 4, 0, 1), sample.Tie(horizontal, 3, 4), ""},
+		{sample.Tie(horizontal, 4, 3), sample.Tie(online, 0, 1, 4), ""},
+		{sample.Tie(online, 4, 1, 3), sample.Tie(vertical, 0, 4), ""},
+		{sample.Tie(vertical, 0, 4), sample.Tie(online, 4, 1, 3), ""},
+		{sample.Tie(online, 4, 1, 3), sample.Tie(vertical, 3, 4), "parallel"},
+		{sample.Tie(online, 4, 0, 3), sample.Tie(perpendicular, 4, 1, 4, 3), "unplaced"},
+		{sample.Tie(online, 4, 0, 3), sample.Tie(online, 2, 3, 4), "parallel"},
+		{sample.Tie(online, 4, 0, 2), sample.Tie(horizontal, 4, 3), "degenerate"},
+		{sample.Tie(vertical, 4, 3), sample.Tie(online, 0, 4, 2), "degenerate"},
+		{sample.Tie(online, 4, 0, 2), sample.Tie(equal, 4, 2, 0), "degenerate"},
+		{sample.Tie(perpendicular, 4, 0, 2, 0), sample.Tie(vertical, 1, 4), "degenerate"},
+		{sample.Tie(vertical, 1, 4), sample.Tie(perpendicular, 2, 0, 0, 4), "degenerate"},
+		{sample.Tie(equal, 4, 2, 0), sample.Distance(4, 1, "1"), "degenerate"},
+		{sample.Distance(4, 1, "1"), sample.Tie(online, 2, 4, 0), "degenerate"},
+		{sample.Distance(0, 4, "2"), sample.Distance(4, 2, "2"), "concentric"},
+		{sample.Distance(0, 4, "2"), sample.Distance(4, 2, "3"), ""},
+		{sample.Distance(4, 2, "3"), sample.Tie(equal, 0, 1, 4), ""},
+		{sample.Distance(2, 4, "4"), sample.Tie(equal, 0, 4, 1), "concentric"},
+		{sample.Distance(0, 4, "1"), sample.Distance(1, 4, "1"), ""},
+		{sample.Distance(0, 4, "1"), sample.Tie(vertical, 4, 1), ""},
 	} {
-		n, _, reason := checkSolve(t, of(5, append(four[:4:4], c.one, c.two)...))
+		n, _, reason := checkSolve(t, sample.Sketch(5, append(four[:4:4], c.one, c.two)...))
 		if n != 0 || reason != c.want {
 			t.Errorf("%d: %d solutions, %q instead of %q", i, n, reason, c.want)
 		}
@@ -129,7 +129,7 @@ func TestUndetermined(t *testing.T) {
 // is no branch at all.
 func TestUndeterminedBranch(t *testing.T) {
 	// Point 2 is at (0, 0) or (8, 0), and point 3 is on the line through 0 and 2.
-	two := base(4, distance(1, 2, "4"), tie(api.CHorizontal, 0, 2), tie(api.COnLine, 3, 0, 2), distance(1, 3, "1"))
+	two := sample.Based(4, sample.Distance(1, 2, "4"), sample.Tie(api.CHorizontal, 0, 2), sample.Tie(api.COnLine, 3, 0, 2), sample.Distance(1, 3, "1"))
 	if n, _, reason := checkSolve(t, two); n != 0 || reason != "degenerate" {
 		t.Errorf("%d solutions, %q", n, reason)
 	}
@@ -138,7 +138,7 @@ func TestUndeterminedBranch(t *testing.T) {
 		t.Errorf("%d solutions, %q", n, reason)
 	}
 	// Point 2 has no place, so that it does not matter what point 3 has.
-	none := base(4, distance(0, 2, "1"), distance(1, 2, "1"), tie(api.COnLine, 3, 0, 1), tie(api.CHorizontal, 3, 0))
+	none := sample.Based(4, sample.Distance(0, 2, "1"), sample.Distance(1, 2, "1"), sample.Tie(api.COnLine, 3, 0, 1), sample.Tie(api.CHorizontal, 3, 0))
 	if n, _, reason := checkSolve(t, none); n != 0 || reason != "" {
 		t.Errorf("%d solutions, %q", n, reason)
 	}

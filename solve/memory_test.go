@@ -65,7 +65,7 @@ func elements(list []api.Solution) [][]api.Ratio {
 func TestSolveMemory(t *testing.T) {
 	t.Parallel()
 	several := 0
-	for _, s := range sketches(t, 200, 41) {
+	for _, s := range sketches(200, 41) {
 		tight := api.Sketch{Points: s.Points, Constraints: sample.Guarded(s.Constraints, markConstraint)}
 		list, err := solve.Solve(tight)
 		want := solveOutcome(list, err)
@@ -106,7 +106,7 @@ func TestSolveMemory(t *testing.T) {
 
 // P11.1: nor do Check and Round modify anything.
 func TestRoundMemory(t *testing.T) {
-	for _, s := range sketches(t, 100, 42) {
+	for _, s := range sketches(100, 42) {
 		list, _ := solve.Solve(s)
 		for _, x := range list {
 			tight := guarded(x)

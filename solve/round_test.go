@@ -45,7 +45,7 @@ func checkRound(t *testing.T, x api.Solution, places int) string {
 
 // P11.1: rounded solutions, with few places and many.
 func TestRoundExamples(t *testing.T) {
-	list, _ := solve.Solve(base(3, distance(0, 2, "3"), distance(1, 2, "3")))
+	list, _ := solve.Solve(sample.Based(3, sample.Distance(0, 2, "3"), sample.Distance(1, 2, "3")))
 	for i, c := range []struct {
 		places int
 		want   [2]string
@@ -117,7 +117,7 @@ func TestRoundPoints(t *testing.T) {
 func TestRoundBounds(t *testing.T) {
 	t.Parallel()
 	coordinates, smaller := 0, 0
-	for i, s := range sketches(t, 150, 31) {
+	for i, s := range sketches(150, 31) {
 		list, _ := solve.Solve(s)
 		for k, x := range list {
 			places := (i*7 + k) % 21

@@ -40,9 +40,9 @@ func TestExamples(t *testing.T) {
 		{"2", "2", nil, "<> 0, 0; 4, 0; 2, 0"},
 		{"1", "2", nil, ""},
 		{"3", "3", nil, "<320> 0 0, 0 0; 4 0, 0 0; 2 0, 0 -1/8 | <320> 0 0, 0 0; 4 0, 0 0; 2 0, 0 1/8"},
-		{"3", "3", []api.Constraint{tie(api.CHorizontal, 1, 2)}, ""},
+		{"3", "3", []api.Constraint{sample.Tie(api.CHorizontal, 1, 2)}, ""},
 	} {
-		s := base(3, append([]api.Constraint{distance(0, 2, c.one), distance(1, 2, c.two)}, c.further...)...)
+		s := sample.Based(3, append([]api.Constraint{sample.Distance(0, 2, c.one), sample.Distance(1, 2, c.two)}, c.further...)...)
 		checkSolve(t, s)
 		if got := solveOutcome(solve.Solve(s)); got != c.want {
 			t.Errorf("%d: %s instead of %s", i, got, c.want)
@@ -56,11 +56,11 @@ func TestExamples(t *testing.T) {
 func TestPairs(t *testing.T) {
 	t.Parallel()
 	places := [][]api.Constraint{
-		{fix(0, "0", "0"), fix(1, "4", "0"), fix(2, "1", "3")},
-		{fix(0, "-1", "1/2"), fix(1, "-1", "1/2"), fix(2, "2", "-3/2")},
-		{fix(0, "0", "0"), fix(1, "1", "2"), fix(2, "-1", "-2")},
-		{fix(0, "0", "0"), fix(1, "1", "0"), distance(0, 2, "3/2"), distance(2, 1, "3/2")},
-		{fix(0, "2", "0"), fix(1, "2", "5"), tie(api.CVertical, 0, 2), distance(2, 1, "13/4")},
+		{sample.Fix(0, "0", "0"), sample.Fix(1, "4", "0"), sample.Fix(2, "1", "3")},
+		{sample.Fix(0, "-1", "1/2"), sample.Fix(1, "-1", "1/2"), sample.Fix(2, "2", "-3/2")},
+		{sample.Fix(0, "0", "0"), sample.Fix(1, "1", "2"), sample.Fix(2, "-1", "-2")},
+		{sample.Fix(0, "0", "0"), sample.Fix(1, "1", "0"), sample.Distance(0, 2, "3/2"), sample.Distance(2, 1, "3/2")},
+		{sample.Fix(0, "2", "0"), sample.Fix(1, "2", "5"), sample.Tie(api.CVertical, 0, 2), sample.Distance(2, 1, "13/4")},
 	}
 	var loci []api.Constraint
 	for _, c := range sample.Constraints(4) {
@@ -69,7 +69,7 @@ func TestPairs(t *testing.T) {
 			loci = append(loci, c)
 		case slices.Contains(sample.Indices(c), 3):
 			for _, others := range places {
-				checkSolve(t, of(4, append(slices.Clone(others), c)...))
+				checkSolve(t, sample.Sketch(4, append(slices.Clone(others), c)...))
 			}
 		}
 	}
@@ -77,7 +77,7 @@ func TestPairs(t *testing.T) {
 	for i, one := range loci {
 		for k, two := range loci {
 			if (i+k)%3 == 0 {
-				n, level, reason := checkSolve(t, of(4, append(slices.Clone(places[(i+k)%len(places)]), one, two)...))
+				n, level, reason := checkSolve(t, sample.Sketch(4, append(slices.Clone(places[(i+k)%len(places)]), one, two)...))
 				reasons[reason]++
 				levels[level]++
 				counts[n]++
@@ -102,7 +102,7 @@ func TestSketches(t *testing.T) {
 		levels[level]++
 		counts[n]++
 	}
-	for _, f := range figures(t, 600, 4) {
+	for _, f := range sample.Figures(600, 4) {
 		checkSolve(t, f.Sketch)
 	}
 	for _, reason := range []refusal{"unplaced", "branches", "concentric", "parallel", "degenerate", "too large"} {
@@ -140,7 +140,7 @@ func TestLong(t *testing.T) {
 
 // P11.1: sketches that are not valid, and such as leave points unplaced.
 func TestInvalid(t *testing.T) {
-	list := append(sample.InvalidSketches(), of(1), of(8), base(3), base(3, distance(0, 2, "3")), base(4, distance(0, 2, "3"), distance(1, 2, "3")), base(3, tie(api.CHorizontal, 0, 2), tie(api.CHorizontal, 2, 1)))
+	list := append(sample.InvalidSketches(), sample.Sketch(1), sample.Sketch(8), sample.Based(3), sample.Based(3, sample.Distance(0, 2, "3")), sample.Based(4, sample.Distance(0, 2, "3"), sample.Distance(1, 2, "3")), sample.Based(3, sample.Tie(api.CHorizontal, 0, 2), sample.Tie(api.CHorizontal, 2, 1)))
 	for i, s := range list {
 		if got := solveOutcome(solve.Solve(s)); got != refused {
 			t.Errorf("%d: %s", i, got)

@@ -14,10 +14,9 @@ import (
 )
 
 // sketches returns sketches of all sizes that have solutions in towers of all levels.
-func sketches(t *testing.T, count int, seed uint64) []api.Sketch {
-	t.Helper()
+func sketches(count int, seed uint64) []api.Sketch {
 	out := append(sample.Constructions(count, seed), frameworks(count/10, seed)...)
-	for _, f := range figures(t, count/2, seed) {
+	for _, f := range sample.Figures(count/2, seed) {
 		out = append(out, f.Sketch)
 	}
 	return out
@@ -27,7 +26,7 @@ func sketches(t *testing.T, count int, seed uint64) []api.Sketch {
 func TestSoundness(t *testing.T) {
 	t.Parallel()
 	accepted := 0
-	for _, s := range sketches(t, 400, 11) {
+	for _, s := range sketches(400, 11) {
 		list, _ := solve.Solve(s)
 		for _, x := range list {
 			accepted++
@@ -64,9 +63,9 @@ func isAt(t *testing.T, x api.Solution, places [][2]api.Ratio) bool {
 func TestCompleteness(t *testing.T) {
 	t.Parallel()
 	solved, several, further := 0, 0, 0
-	for i, f := range figures(t, 2500, 12) {
+	for i, f := range sample.Figures(2500, 12) {
 		for k := range i % 3 {
-			if c, ok := fitted(t, sample.Constraint(f.Points, uint64(i*3+k)), f.places); ok && len(f.Constraints) < api.MaxConstraints {
+			if c, ok := sample.Fitted(sample.Constraint(f.Points, uint64(i*3+k)), f.Places); ok && len(f.Constraints) < api.MaxConstraints {
 				f.Constraints = append(f.Constraints, c)
 				further++
 			}
@@ -79,8 +78,8 @@ func TestCompleteness(t *testing.T) {
 		if len(list) > 1 {
 			several++
 		}
-		if !slices.ContainsFunc(list, func(x api.Solution) bool { return isAt(t, x, f.places) }) {
-			t.Errorf("%v is not among the %d solutions of %+v", f.places, len(list), f.Sketch)
+		if !slices.ContainsFunc(list, func(x api.Solution) bool { return isAt(t, x, f.Places) }) {
+			t.Errorf("%v is not among the %d solutions of %+v", f.Places, len(list), f.Sketch)
 		}
 	}
 	if solved < 1500 || several < 500 || further < 300 {
@@ -93,7 +92,7 @@ func TestCompleteness(t *testing.T) {
 func TestOrder(t *testing.T) {
 	t.Parallel()
 	pairs, byX, byY, levels := 0, 0, 0, map[int]int{}
-	for _, s := range sketches(t, 400, 13) {
+	for _, s := range sketches(400, 13) {
 		list, _ := solve.Solve(s)
 		plan, _ := cluster.Plan(s)
 		views := viewsOf(t, list)
@@ -131,7 +130,7 @@ func TestOrder(t *testing.T) {
 // which it holds. It returns how many those are, and how many it does not leave.
 func checkFurther(t *testing.T, s api.Sketch, list []api.Solution, c api.Constraint, place int) (int, int) {
 	t.Helper()
-	wider := of(s.Points, slices.Insert(slices.Clone(s.Constraints), place, c)...)
+	wider := sample.Sketch(s.Points, slices.Insert(slices.Clone(s.Constraints), place, c)...)
 	after, err := solve.Solve(wider)
 	if err != api.OK {
 		return 0, 0
@@ -161,10 +160,10 @@ func TestFurther(t *testing.T) {
 	t.Parallel()
 	left, lost := 0, 0
 	count := func(l int, n int) { left, lost = left+l, lost+n }
-	for i, f := range figures(t, 500, 14) {
+	for i, f := range sample.Figures(500, 14) {
 		list, err := solve.Solve(f.Sketch)
 		for k := 0; k < 8 && err == api.OK && len(f.Constraints) < api.MaxConstraints; k++ {
-			c, ok := fitted(t, sample.Constraint(f.Points, uint64(i*8+k)), f.places)
+			c, ok := sample.Fitted(sample.Constraint(f.Points, uint64(i*8+k)), f.Places)
 			if ok || k < 2 {
 				count(checkFurther(t, f.Sketch, list, c, (i+k)%(len(f.Constraints)+1)))
 			}
@@ -184,7 +183,7 @@ func TestFurther(t *testing.T) {
 // moved returns s with all fixed points moved.
 func moved(t *testing.T, s api.Sketch, dx api.Ratio, dy api.Ratio) api.Sketch {
 	t.Helper()
-	out := of(s.Points)
+	out := sample.Sketch(s.Points)
 	for _, c := range s.Constraints {
 		if c.Kind == api.CFix {
 			x, errX := rational.Add(c.X, dx)
@@ -203,7 +202,7 @@ func moved(t *testing.T, s api.Sketch, dx api.Ratio, dy api.Ratio) api.Sketch {
 func TestCongruence(t *testing.T) {
 	t.Parallel()
 	solutions := 0
-	for i, s := range sketches(t, 250, 15) {
+	for i, s := range sketches(250, 15) {
 		if slices.ContainsFunc(s.Constraints, func(c api.Constraint) bool { return len(c.X.Den) > 6 || len(c.Y.Den) > 6 }) {
 			continue
 		}
