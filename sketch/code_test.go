@@ -1,7 +1,6 @@
 package sketch_test
 
 import (
-	"encoding/binary"
 	"slices"
 	"strings"
 	"testing"
@@ -22,20 +21,6 @@ func checkDecode(t *testing.T, code string) bool {
 		t.Errorf("Decode(%.200q) = %.500s instead of %.500s", code, got, want)
 	}
 	return err == api.OK
-}
-
-// code returns the encodings of integers, and of strings.
-func code(parts ...any) string {
-	var out []byte
-	for _, part := range parts {
-		switch part := part.(type) {
-		case int:
-			out = binary.AppendVarint(out, int64(part))
-		case string:
-			out = append(out, putString(part)...)
-		}
-	}
-	return string(out)
 }
 
 // P9.1: the encoding of a sketch is what the chapter says, and others have none.
@@ -134,6 +119,7 @@ func TestDecodeShort(t *testing.T) {
 // P9.1: the first of the errors, in the order of the chapter.
 func TestDecodeErrors(t *testing.T) {
 	wire, invalid := sample.Failure(api.ErrWire), refused
+	code := sample.Code
 	fix := code(1, 0, "1", "1", "1", "1")
 	for i, c := range []struct{ code, want string }{
 		{"", wire}, {"\x80", wire}, {"\x80\x00", wire}, {code(2), wire}, {code(2) + "\x80", wire}, {code(2) + "\x80\x00", wire},

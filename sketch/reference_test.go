@@ -1,7 +1,6 @@
 package sketch_test
 
 import (
-	"encoding/binary"
 	"fmt"
 	"math/big"
 	"strconv"
@@ -185,108 +184,59 @@ func wantHolds(c api.Constraint, t api.Tower, points [][2][]api.Ratio) string {
 	return strconv.FormatBool(holds)
 }
 
-// putString returns the encoding of s.
-func putString(s string) string {
-	return string(binary.AppendVarint(nil, int64(len(s)))) + s
-}
-
 // wantCode returns the outcome of Encode.
 func wantCode(s api.Sketch) string {
 	if !sample.IsSketch(s) {
 		return refused
 	}
-	out := binary.AppendVarint(binary.AppendVarint(nil, int64(s.Points)), int64(len(s.Constraints)))
+	out := sample.Code(s.Points, len(s.Constraints))
 	for _, c := range s.Constraints {
-		out = binary.AppendVarint(out, int64(c.Kind))
+		out += sample.Code(c.Kind)
 		for _, i := range sample.Indices(c) {
-			out = binary.AppendVarint(out, int64(i))
+			out += sample.Code(i)
 		}
-		if c.Kind == 1 {
-			out = append(out, putString(c.X.Num)+putString(c.X.Den)+putString(c.Y.Num)+putString(c.Y.Den)...)
+		switch c.Kind {
+		case 1:
+			out += sample.Code(c.X, c.Y)
+		case 2:
+			out += sample.Code(c.Value)
 		}
-		if c.Kind == 2 {
-			out = append(out, putString(c.Value.Num)+putString(c.Value.Den)...)
-		}
 	}
-	return string(out)
-}
-
-// A scanner reads an encoding, and keeps the first error.
-type scanner struct {
-	rest string
-	err  api.Errno
-}
-
-// fail notes err, unless there was an error before.
-func (s *scanner) fail(err api.Errno) {
-	if s.err == api.OK {
-		s.err = err
-	}
-}
-
-// int reads an integer.
-func (s *scanner) int() int {
-	n, size := binary.Varint([]byte(s.rest))
-	if size <= 0 || n > 1<<62-1 || n < -(1<<62-1) || !strings.HasPrefix(s.rest, string(binary.AppendVarint(nil, n))) {
-		s.fail(api.ErrWire)
-		return 0
-	}
-	s.rest = s.rest[size:]
-	return int(n)
-}
-
-// string reads a string.
-func (s *scanner) string() string {
-	size := s.int()
-	if size < 0 || size > 65536 || size > len(s.rest) {
-		s.fail(api.ErrWire)
-		return ""
-	}
-	out := s.rest[:size]
-	s.rest = s.rest[size:]
 	return out
-}
-
-// ratio reads a fraction.
-func (s *scanner) ratio() api.Ratio {
-	num := s.string()
-	return api.Ratio{Num: num, Den: s.string()}
 }
 
 // wantSketch returns the outcome of Decode.
 func wantSketch(code string) string {
-	s := scanner{rest: code}
-	out := api.Sketch{Points: s.int()}
-	count := s.int()
+	s := sample.Scanner{Rest: code}
+	out := api.Sketch{Points: s.Int()}
+	count := s.Int()
 	if count < 0 || count > 16 {
-		s.fail(api.ErrSketch)
+		s.Fail(api.ErrSketch)
 	}
-	for i := 0; i < count && s.err == api.OK; i++ {
-		c := api.Constraint{Kind: s.int()}
+	for i := 0; i < count && s.Err == api.OK; i++ {
+		c := api.Constraint{Kind: s.Int()}
 		if c.Kind < 1 || c.Kind > 8 {
-			s.fail(api.ErrSketch)
+			s.Fail(api.ErrSketch)
 			break
 		}
 		for k := range sample.Indices(c) {
-			*[]*int{&c.P, &c.Q, &c.R, &c.S}[k] = s.int()
+			*[]*int{&c.P, &c.Q, &c.R, &c.S}[k] = s.Int()
 		}
 		if c.Kind == 1 {
-			c.X = s.ratio()
-			c.Y = s.ratio()
+			c.X = s.Ratio()
+			c.Y = s.Ratio()
 		}
 		if c.Kind == 2 {
-			c.Value = s.ratio()
+			c.Value = s.Ratio()
 		}
 		out.Constraints = append(out.Constraints, c)
 	}
-	if s.rest != "" {
-		s.fail(api.ErrWire)
-	}
+	s.End()
 	if !sample.IsSketch(out) {
-		s.fail(api.ErrSketch)
+		s.Fail(api.ErrSketch)
 	}
-	if s.err != api.OK {
-		return sample.Failure(s.err)
+	if s.Err != api.OK {
+		return sample.Failure(s.Err)
 	}
 	return sketchOutcome(out, api.OK)
 }
