@@ -77,7 +77,7 @@ func TestValidCurve(t *testing.T) {
 		}
 	}
 	for _, r := range slices.Concat(sample.LargeFractions(), sample.InvalidFractions()) {
-		for _, c := range sample.Region("line 1 0 2; line -1 2 1; line 0 1 0; line 0 -1 1; circle 0 0 25; circle 1/2 -3 1/4").Curves {
+		for _, c := range sample.CurvesOf("line 1 0 2; line -1 2 1; line 0 1 0; line 0 -1 1; circle 0 0 25; circle 1/2 -3 1/4") {
 			for field := range 3 {
 				changed := c
 				*[]*api.Ratio{&changed.A, &changed.B, &changed.C}[field] = r

@@ -12,7 +12,7 @@ import (
 // P13.1: the value of all formulas of up to three operations over two curves, for all
 // values of the leaves.
 func TestEvaluateSmall(t *testing.T) {
-	curves := sample.Region("line 1 0 2; circle 0 0 25").Curves
+	curves := sample.CurvesOf("line 1 0 2; circle 0 0 25")
 	trues := 0
 	var check func(nodes []api.RegionNode, more int)
 	check = func(nodes []api.RegionNode, more int) {

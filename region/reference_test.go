@@ -190,7 +190,7 @@ func wantRectangle(x0, y0, x1, y1 api.Ratio) string {
 	if !areFractions(x0, y0, x1, y1) || rational.Compare(x0, x1) >= 0 || rational.Compare(y0, y1) >= 0 {
 		return refused
 	}
-	lines := sample.Region("line -1 0 0; line 1 0 0; line 0 -1 0; line 0 1 0").Curves
+	lines := sample.CurvesOf("line -1 0 0; line 1 0 0; line 0 -1 0; line 0 1 0")
 	for i, bound := range []api.Ratio{negative(x0), x1, negative(y0), y1} {
 		lines[i].C = bound
 	}

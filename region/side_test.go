@@ -25,7 +25,7 @@ func checkSide(t *testing.T, c api.Curve, x, y api.Ratio) bool {
 func TestSide(t *testing.T) {
 	count := map[string]int{}
 	coordinates := sample.Numbers("0 1 -1 2 -3 5 3/2 -1/2")
-	for _, c := range append(sample.Curves(300, few, 11), sample.Region("circle 0 0 25; line 1 0 2; line -1 0 2; line 0 1 -3; line 0 -1 5; line 1 1 2; circle 1 -3 1/4").Curves...) {
+	for _, c := range append(sample.Curves(300, few, 11), sample.CurvesOf("circle 0 0 25; line 1 0 2; line -1 0 2; line 0 1 -3; line 0 -1 5; line 1 1 2; circle 1 -3 1/4")...) {
 		for _, x := range coordinates {
 			for _, y := range coordinates {
 				checkSide(t, c, x, y)
@@ -108,7 +108,7 @@ func TestSideInvalid(t *testing.T) {
 		}
 	}
 	for _, wrong := range sample.InvalidFractions() {
-		for _, c := range sample.Region("line 1 0 2; line 0 -1 2; line -1 2 1; circle 0 0 25").Curves {
+		for _, c := range sample.CurvesOf("line 1 0 2; line 0 -1 2; line -1 2 1; circle 0 0 25") {
 			for _, p := range [][2]api.Ratio{{wrong, one}, {one, wrong}, {wrong, wrong}} {
 				if got := sideOutcome(region.Side(c, p[0], p[1])); got != refused {
 					t.Errorf("Side(%v; %.300v) = %s", c, p, got)

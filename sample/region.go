@@ -79,14 +79,21 @@ func Join(op int, left int, right int) api.RegionNode {
 	return api.RegionNode{Op: op, Left: left, Right: right}
 }
 
+// CurvesOf returns the curves whose texts are the parts of s.
+func CurvesOf(s string) []api.Curve {
+	var out []api.Curve
+	for _, part := range strings.Split(s, ";") {
+		if part != "" {
+			out = append(out, Curve(part))
+		}
+	}
+	return out
+}
+
 // Region returns the region with the curves whose texts are the parts of s, and the
 // given nodes.
 func Region(s string, nodes ...api.RegionNode) api.Region {
-	r := api.Region{Nodes: nodes}
-	for _, part := range strings.Split(s, ";") {
-		r.Curves = append(r.Curves, Curve(part))
-	}
-	return r
+	return api.Region{Curves: CurvesOf(s), Nodes: nodes}
 }
 
 // Curves returns count different valid curves, whose fractions are from list, as far as

@@ -54,20 +54,6 @@ func choices(size int, seed uint64) string {
 	return sample.Bytes(size, binary.BigEndian.Uint64([]byte(sample.Bytes(8, seed))))
 }
 
-// outcomeOf returns what calculate returns, or refused if it panics with a refusal.
-func outcomeOf(calculate func() string) (outcome string) {
-	defer func() {
-		switch cause := recover().(type) {
-		case nil:
-		case refusal:
-			outcome = refused
-		default:
-			panic(cause)
-		}
-	}()
-	return calculate()
-}
-
 // join returns a text of several elements.
 func join(elements ...[]api.Ratio) string {
 	var out []string
@@ -83,11 +69,11 @@ func (b placement) wantPlaced(c api.Constraint, p int) string {
 		found := b.positions([]api.Constraint{c}, api.Step{Point: p, Second: -1})
 		return join(found.points[0][:]...)
 	}
-	s := scope{b.tower, map[string][]api.Ratio{}}
+	s := scope{sample.ScopeOf(b.tower)}
 	if b.locus(s, c, p, "") {
-		return "line " + join(s.values["a"], s.values["b"], s.values["c"])
+		return "line " + join(s.Values["a"], s.Values["b"], s.Values["c"])
 	}
-	return "circle " + join(s.values["u"], s.values["v"], s.values["R"])
+	return "circle " + join(s.Values["u"], s.Values["v"], s.Values["R"])
 }
 
 // placed returns a text of what the program has for the same.
@@ -112,7 +98,7 @@ func (b placement) placed(c api.Constraint, p int) string {
 // outcome.
 func (b placement) checkPlaced(t *testing.T, c api.Constraint, p int) string {
 	t.Helper()
-	got, want := b.placed(c, p), outcomeOf(func() string { return b.wantPlaced(c, p) })
+	got, want := b.placed(c, p), sample.Calculated(api.ErrSolve, func() string { return b.wantPlaced(c, p) })
 	if got != want {
 		t.Errorf("%+v for %d at %v in %v: %s instead of %s", c, p, b.points, b.tower, got, want)
 	}
@@ -158,15 +144,15 @@ func TestPlacedFormulas(t *testing.T) {
 
 // wantCrossing returns a text of the intersection of two loci in the tower u.
 func wantCrossing(u api.Tower, first solve.Locus, second solve.Locus) string {
-	s := scope{u, map[string][]api.Ratio{}}
+	s := scope{sample.ScopeOf(u)}
 	for i, l := range []solve.Locus{first, second} {
 		names := []string{"u", "v", "R"}
 		if l.IsLine {
 			names = []string{"a", "b", "c"}
 		}
 		for k, name := range names {
-			s.values[name+"12"[i:i+1]] = l.Numbers[k]
-			s.values[name] = l.Numbers[k]
+			s.Values[name+"12"[i:i+1]] = l.Numbers[k]
+			s.Values[name] = l.Numbers[k]
 		}
 	}
 	var found intersection
@@ -188,7 +174,7 @@ func wantCrossing(u api.Tower, first solve.Locus, second solve.Locus) string {
 // outcome.
 func checkCrossing(t *testing.T, u api.Tower, first solve.Locus, second solve.Locus) string {
 	t.Helper()
-	want := outcomeOf(func() string { return wantCrossing(u, first, second) })
+	want := sample.Calculated(api.ErrSolve, func() string { return wantCrossing(u, first, second) })
 	got := "none"
 	if x, err := solve.CrossingOf(u, first, second); err != api.OK || len(x.Points) > 0 {
 		got = sample.Outcome(solutionText(x), x.Points == nil && x.Tower.Radicands == nil, err)

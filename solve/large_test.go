@@ -11,7 +11,7 @@ import (
 func TestLarge(t *testing.T) {
 	for i, c := range []struct {
 		text string
-		want refusal
+		want sample.Refusal
 	}{
 		// The foot of the perpendicular is too large, and the line misses the circle.
 		{"7; 3 0 4 0 0; 7 2 4 5 0; 1 4 0 0 0 1903/951 -999/1000; 8 6 4 1 0; 8 6 5 0 0; 3 1 6 0 0; 1 6 0 0 0 1/5021271 1/99993888; 2 0 1 0 0 22/7; 7 3 6 5 0; 2 4 5 0 0 51/100", "too large"},

@@ -93,7 +93,7 @@ func TestUndetermined(t *testing.T) {
 	four := []api.Constraint{sample.Fix(0, "0", "0"), sample.Fix(1, "4", "0"), sample.Fix(2, "0", "0"), sample.Fix(3, "4", "3")}
 	for i, c := range []struct {
 		one, two api.Constraint
-		want     refusal
+		want     sample.Refusal
 	}{
 		{sample.Tie(online, 4, 0, 1), sample.Tie(horizontal, 0, 4), "parallel"},
 		{sample.Tie(horizontal, 1, 4), sample.Tie(online, 0, 4, 1), "parallel"},

@@ -2,7 +2,6 @@ package solve_test
 
 import (
 	"math/big"
-	"regexp"
 	"strings"
 
 	"workpiece/api"
@@ -55,115 +54,14 @@ func roundOutcome(points [][2]api.Ratio, err api.Errno) string {
 	return sample.Outcome(strings.Join(out, "; "), len(points) == 0, err)
 }
 
-// A refusal is what the reference panics with if there are no solutions, with the
-// reason.
-type refusal string
-
-// needed returns value, which a function of a lower layer has returned.
-func needed[T any](value T, err api.Errno) T {
-	if err != api.OK {
-		panic(refusal("too large"))
-	}
-	return value
-}
-
-// A scope is a tower, and the elements that have names in formulas.
-type scope struct {
-	tower  api.Tower
-	values map[string][]api.Ratio
-}
-
-// let gives the values of formulas to names, in order.
-func (s scope) let(names string, formulas ...string) {
-	for i, name := range strings.Fields(names) {
-		s.values[name] = s.value(formulas[i])
-	}
-}
-
-// sign returns the sign of the element with a name.
-func (s scope) sign(name string) int { return needed(tower.Sign(s.tower, s.values[name])) }
-
-// words are the parts of formulas.
-var words = regexp.MustCompile(`[A-Za-z]+[0-9]*|[0-9]+|\S`)
-
-// value returns the value of a formula of the chapter.
-func (s scope) value(formula string) []api.Ratio {
-	rest := words.FindAllString(formula, -1)
-	value := s.sum(&rest)
-	if len(rest) > 0 {
-		panic("not a formula: " + formula)
-	}
-	return value
-}
-
-// next removes the first word of rest if it is among the given ones, and returns it.
-func next(rest *[]string, among string) string {
-	if len(*rest) == 0 || !strings.Contains(among, (*rest)[0]) {
-		return ""
-	}
-	word := (*rest)[0]
-	*rest = (*rest)[1:]
-	return word
-}
-
-func (s scope) sum(rest *[]string) []api.Ratio {
-	value := s.product(rest)
-	for {
-		switch next(rest, "+-") {
-		case "+":
-			value = needed(tower.Add(s.tower, value, s.product(rest)))
-		case "-":
-			value = needed(tower.Sub(s.tower, value, s.product(rest)))
-		default:
-			return value
-		}
-	}
-}
-
-func (s scope) product(rest *[]string) []api.Ratio {
-	value := s.factor(rest)
-	for {
-		switch next(rest, "*/^") {
-		case "*":
-			value = needed(tower.Mul(s.tower, value, s.factor(rest)))
-		case "/":
-			value = needed(tower.Mul(s.tower, value, needed(tower.Inverse(s.tower, s.factor(rest)))))
-		case "^":
-			next(rest, "2")
-			value = needed(tower.Mul(s.tower, value, value))
-		default:
-			return value
-		}
-	}
-}
-
-func (s scope) factor(rest *[]string) []api.Ratio {
-	if next(rest, "-") != "" {
-		return needed(tower.Sub(s.tower, s.constant("0"), s.factor(rest)))
-	}
-	if next(rest, "(") != "" {
-		value := s.sum(rest)
-		next(rest, ")")
-		return value
-	}
-	word := (*rest)[0]
-	*rest = (*rest)[1:]
-	if value, ok := s.values[word]; ok {
-		return value
-	}
-	return s.constant(word)
-}
-
-// constant returns the element with a text.
-func (s scope) constant(word string) []api.Ratio {
-	return needed(tower.FromRatio(s.tower, sample.Number(word)))
-}
+// A scope is one in which loci are intersected.
+type scope struct{ sample.Scope }
 
 // embedded returns the scope with the same values in the tower t.
 func (s scope) embedded(t api.Tower) scope {
-	out := scope{t, map[string][]api.Ratio{}}
-	for name, value := range s.values {
-		out.values[name] = needed(tower.Embed(t, value))
+	out := scope{sample.ScopeOf(t)}
+	for name, value := range s.Values {
+		out.Values[name] = sample.Needed(tower.Embed(t, value))
 	}
 	return out
 }
@@ -177,7 +75,7 @@ type intersection struct {
 // degenerate reports whether the line with the names that end in a suffix is
 // degenerate.
 func (s scope) degenerate(suffix string) bool {
-	return s.sign("a"+suffix) == 0 && s.sign("b"+suffix) == 0
+	return s.Sign("a"+suffix) == 0 && s.Sign("b"+suffix) == 0
 }
 
 // lines returns the intersection of the lines 1 and 2.
@@ -185,62 +83,62 @@ func (s scope) lines() intersection {
 	one := s.degenerate("1")
 	two := s.degenerate("2")
 	if one || two {
-		if one && s.sign("c1") != 0 || two && s.sign("c2") != 0 {
+		if one && s.Sign("c1") != 0 || two && s.Sign("c2") != 0 {
 			return intersection{}
 		}
-		panic(refusal("degenerate"))
+		panic(sample.Refusal("degenerate"))
 	}
-	s.let("d p q", "a1 * b2 - a2 * b1", "b1 * c2 - b2 * c1", "c1 * a2 - c2 * a1")
-	if s.sign("d") == 0 {
-		if s.sign("p") != 0 || s.sign("q") != 0 {
+	s.Let("d p q", "a1 * b2 - a2 * b1", "b1 * c2 - b2 * c1", "c1 * a2 - c2 * a1")
+	if s.Sign("d") == 0 {
+		if s.Sign("p") != 0 || s.Sign("q") != 0 {
 			return intersection{}
 		}
-		panic(refusal("parallel"))
+		panic(sample.Refusal("parallel"))
 	}
-	return intersection{s.tower, [][2][]api.Ratio{{s.value("p / d"), s.value("q / d")}}}
+	return intersection{s.Tower, [][2][]api.Ratio{{s.Value("p / d"), s.Value("q / d")}}}
 }
 
 // lineAndCircle returns the intersection of the line (a, b, c) and the circle
 // (u, v, R).
 func (s scope) lineAndCircle() intersection {
 	if s.degenerate("") {
-		if s.sign("c") != 0 {
+		if s.Sign("c") != 0 {
 			return intersection{}
 		}
-		panic(refusal("degenerate"))
+		panic(sample.Refusal("degenerate"))
 	}
-	s.let("m e", "a * a + b * b", "a * u + b * v + c")
-	s.let("D x0 y0", "R * m - e * e", "u - (a * e) / m", "v - (b * e) / m")
-	switch s.sign("D") {
+	s.Let("m e", "a * a + b * b", "a * u + b * v + c")
+	s.Let("D x0 y0", "R * m - e * e", "u - (a * e) / m", "v - (b * e) / m")
+	switch s.Sign("D") {
 	case -1:
 		return intersection{}
 	case 0:
-		return intersection{s.tower, [][2][]api.Ratio{{s.values["x0"], s.values["y0"]}}}
+		return intersection{s.Tower, [][2][]api.Ratio{{s.Values["x0"], s.Values["y0"]}}}
 	}
 	w := s.withRoot()
-	w.let("dx dy", "(b * s) / m", "(a * s) / m")
-	p := [2][]api.Ratio{w.value("x0 + dx"), w.value("y0 - dy")}
-	q := [2][]api.Ratio{w.value("x0 - dx"), w.value("y0 + dy")}
-	order := needed(tower.Compare(w.tower, p[0], q[0]))
+	w.Let("dx dy", "(b * s) / m", "(a * s) / m")
+	p := [2][]api.Ratio{w.Value("x0 + dx"), w.Value("y0 - dy")}
+	q := [2][]api.Ratio{w.Value("x0 - dx"), w.Value("y0 + dy")}
+	order := sample.Needed(tower.Compare(w.Tower, p[0], q[0]))
 	if order == 0 {
-		order = needed(tower.Compare(w.tower, p[1], q[1]))
+		order = sample.Needed(tower.Compare(w.Tower, p[1], q[1]))
 	}
 	if order > 0 {
 		p, q = q, p
 	}
-	return intersection{w.tower, [][2][]api.Ratio{p, q}}
+	return intersection{w.Tower, [][2][]api.Ratio{p, q}}
 }
 
 // withRoot returns the scope in which s is the square root of D.
 func (s scope) withRoot() scope {
-	if r, ok := tower.Rational(s.tower, s.values["D"]); ok {
+	if r, ok := tower.Rational(s.Tower, s.Values["D"]); ok {
 		if root, ok := squareRoot(r); ok {
-			s.values["s"] = needed(tower.FromRatio(s.tower, root))
+			s.Values["s"] = sample.Needed(tower.FromRatio(s.Tower, root))
 			return s
 		}
 	}
-	w := s.embedded(needed(tower.Extend(s.tower, s.values["D"])))
-	w.values["s"] = needed(tower.Root(w.tower))
+	w := s.embedded(sample.Needed(tower.Extend(s.Tower, s.Values["D"])))
+	w.Values["s"] = sample.Needed(tower.Root(w.Tower))
 	return w
 }
 
@@ -255,16 +153,16 @@ func squareRoot(r api.Ratio) (api.Ratio, bool) {
 
 // circles returns the intersection of the circles 1 and 2.
 func (s scope) circles() intersection {
-	s.let("du dv", "u2 - u1", "v2 - v1")
-	if s.sign("du") == 0 && s.sign("dv") == 0 {
-		s.let("dR", "R1 - R2")
-		if s.sign("dR") != 0 {
+	s.Let("du dv", "u2 - u1", "v2 - v1")
+	if s.Sign("du") == 0 && s.Sign("dv") == 0 {
+		s.Let("dR", "R1 - R2")
+		if s.Sign("dR") != 0 {
 			return intersection{}
 		}
-		panic(refusal("concentric"))
+		panic(sample.Refusal("concentric"))
 	}
-	s.let("a b c", "2 * (u2 - u1)", "2 * (v2 - v1)", "u1^2 + v1^2 - R1 - u2^2 - v2^2 + R2")
-	s.let("u v R", "u1", "v1", "R1")
+	s.Let("a b c", "2 * (u2 - u1)", "2 * (v2 - v1)", "u1^2 + v1^2 - R1 - u2^2 - v2^2 + R2")
+	s.Let("u v R", "u1", "v1", "R1")
 	return s.lineAndCircle()
 }
 
@@ -303,9 +201,9 @@ type placement struct {
 // scope returns the scope in which the points that c uses have names, apart from p:
 // P to S; O for the other one of a pair with p; A and B for the other ones of three.
 func (b placement) scope(c api.Constraint, p int) scope {
-	s := scope{b.tower, map[string][]api.Ratio{}}
+	s := scope{sample.ScopeOf(b.tower)}
 	name := func(letter string, point int) {
-		s.values["x"+letter], s.values["y"+letter] = b.points[point][0], b.points[point][1]
+		s.Values["x"+letter], s.Values["y"+letter] = b.points[point][0], b.points[point][1]
 	}
 	var others []int
 	for k, i := range sample.Indices(c) {
@@ -324,7 +222,7 @@ func (b placement) scope(c api.Constraint, p int) scope {
 		name("B", others[1])
 	}
 	if c.Kind == 2 {
-		s.values["Value"] = s.constant(rational.Print(c.Value))
+		s.Values["Value"] = s.Constant(rational.Print(c.Value))
 	}
 	return s
 }
@@ -333,9 +231,9 @@ func (b placement) scope(c api.Constraint, p int) scope {
 // It reports whether the locus is a line.
 func (b placement) locus(s scope, c api.Constraint, p int, suffix string) bool {
 	r, own := locusRow(c, p), b.scope(c, p)
-	own.let(r[0], strings.Split(r[1], ",")...)
+	own.Let(r[0], strings.Split(r[1], ",")...)
 	for _, name := range strings.Fields(r[0]) {
-		s.values[name+suffix] = own.values[name]
+		s.Values[name+suffix] = own.Values[name]
 	}
 	return r[0] == "a b c"
 }
@@ -348,14 +246,14 @@ func (b placement) positions(list []api.Constraint, step api.Step) intersection 
 		x, y := "(xQ + xR) / 2", "(yQ + yR) / 2"
 		switch {
 		case c.Kind == 1:
-			s.values["x"], s.values["y"] = s.constant(rational.Print(c.X)), s.constant(rational.Print(c.Y))
+			s.Values["x"], s.Values["y"] = s.Constant(rational.Print(c.X)), s.Constant(rational.Print(c.Y))
 			x, y = "x", "y"
 		case c.P != step.Point:
 			x, y = "2 * xP - xO", "2 * yP - yO"
 		}
-		return intersection{b.tower, [][2][]api.Ratio{{s.value(x), s.value(y)}}}
+		return intersection{b.tower, [][2][]api.Ratio{{s.Value(x), s.Value(y)}}}
 	}
-	s := scope{b.tower, map[string][]api.Ratio{}}
+	s := scope{sample.ScopeOf(b.tower)}
 	firstIsLine := b.locus(s, c, step.Point, "1")
 	secondIsLine := b.locus(s, list[step.Second], step.Point, "2")
 	switch {
@@ -364,9 +262,9 @@ func (b placement) positions(list []api.Constraint, step api.Step) intersection 
 	case !firstIsLine && !secondIsLine:
 		return s.circles()
 	case firstIsLine:
-		s.let("a b c u v R", "a1", "b1", "c1", "u2", "v2", "R2")
+		s.Let("a b c u v R", "a1", "b1", "c1", "u2", "v2", "R2")
 	default:
-		s.let("a b c u v R", "a2", "b2", "c2", "u1", "v1", "R1")
+		s.Let("a b c u v R", "a2", "b2", "c2", "u1", "v1", "R1")
 	}
 	return s.lineAndCircle()
 }
@@ -378,7 +276,7 @@ func (b placement) next(list []api.Constraint, step api.Step) []placement {
 	for _, position := range found.points {
 		points := map[int][2][]api.Ratio{step.Point: position}
 		for i, p := range b.points {
-			points[i] = [2][]api.Ratio{needed(tower.Embed(found.tower, p[0])), needed(tower.Embed(found.tower, p[1]))}
+			points[i] = [2][]api.Ratio{sample.Needed(tower.Embed(found.tower, p[0])), sample.Needed(tower.Embed(found.tower, p[1]))}
 		}
 		out = append(out, placement{found.tower, points})
 	}
@@ -402,18 +300,18 @@ func (b placement) solution(s api.Sketch) (api.Solution, bool) {
 		}
 	}
 	if tooLarge > 0 {
-		panic(refusal("too large to check"))
+		panic(sample.Refusal("too large to check"))
 	}
 	return x, broken == 0
 }
 
 // wantSolutions returns what Solve is to return, and otherwise the reason for
 // ErrSolve.
-func wantSolutions(s api.Sketch) (out []api.Solution, reason refusal) {
+func wantSolutions(s api.Sketch) (out []api.Solution, reason sample.Refusal) {
 	defer func() {
 		switch cause := recover().(type) {
 		case nil:
-		case refusal:
+		case sample.Refusal:
 			out, reason = nil, cause
 		default:
 			panic(cause)
@@ -422,7 +320,7 @@ func wantSolutions(s api.Sketch) (out []api.Solution, reason refusal) {
 	if !sample.IsSketch(s) {
 		return nil, "not valid"
 	}
-	plan := needed(cluster.Plan(s))
+	plan := sample.Needed(cluster.Plan(s))
 	if len(plan.Unplaced) > 0 {
 		return nil, "unplaced"
 	}

@@ -11,7 +11,7 @@ import (
 
 // checkSolve checks the result of Solve for s, and returns the number of solutions, the
 // level of the highest of their towers, and the reason for which there are none.
-func checkSolve(t *testing.T, s api.Sketch) (int, int, refusal) {
+func checkSolve(t *testing.T, s api.Sketch) (int, int, sample.Refusal) {
 	t.Helper()
 	list, err := solve.Solve(s)
 	expected, reason := wantSolutions(s)
@@ -73,7 +73,7 @@ func TestPairs(t *testing.T) {
 			}
 		}
 	}
-	reasons, levels, counts := map[refusal]int{}, map[int]int{}, map[int]int{}
+	reasons, levels, counts := map[sample.Refusal]int{}, map[int]int{}, map[int]int{}
 	for i, one := range loci {
 		for k, two := range loci {
 			if (i+k)%3 == 0 {
@@ -95,7 +95,7 @@ func TestPairs(t *testing.T) {
 // P11.1: sketches of all sizes.
 func TestSketches(t *testing.T) {
 	t.Parallel()
-	reasons, levels, counts := map[refusal]int{}, map[int]int{}, map[int]int{}
+	reasons, levels, counts := map[sample.Refusal]int{}, map[int]int{}, map[int]int{}
 	for _, s := range slices.Concat(sample.Constructions(1200, 1), frameworks(100, 2), sample.Sketches(300, 3)) {
 		n, level, reason := checkSolve(t, s)
 		reasons[reason]++
@@ -105,7 +105,7 @@ func TestSketches(t *testing.T) {
 	for _, f := range sample.Figures(600, 4) {
 		checkSolve(t, f.Sketch)
 	}
-	for _, reason := range []refusal{"unplaced", "branches", "concentric", "parallel", "degenerate", "too large"} {
+	for _, reason := range []sample.Refusal{"unplaced", "branches", "concentric", "parallel", "degenerate", "too large"} {
 		if reasons[reason] < 3 {
 			t.Errorf("the reasons %v", reasons)
 		}
@@ -126,7 +126,7 @@ func TestSketches(t *testing.T) {
 // so.
 func TestLong(t *testing.T) {
 	t.Parallel()
-	reasons := map[refusal]int{}
+	reasons := map[sample.Refusal]int{}
 	for length := 2; length <= api.MaxShort; length++ {
 		for i, s := range append(sample.Constructions(150, uint64(length)), frameworks(15, uint64(length))...) {
 			_, _, reason := checkSolve(t, sample.Lengthened(s, length, uint64(i)))
