@@ -15,16 +15,6 @@ var (
 	markPair  = [2]api.Ratio{{Num: "marker"}, {Den: "marker"}}
 )
 
-// guarded returns a copy of r with spare capacity, in which the marks stand.
-func guarded(r api.Region) api.Region {
-	return api.Region{Curves: sample.Guarded(r.Curves, markCurve), Nodes: sample.Guarded(r.Nodes, markNode)}
-}
-
-// isIntact reports whether the guarded region is still a copy of r.
-func isIntact(copied api.Region, r api.Region) bool {
-	return sample.Intact(copied.Curves, r.Curves, markCurve) && sample.Intact(copied.Nodes, r.Nodes, markNode)
-}
-
 // checkMemory checks that call does not modify the guarded regions, which are copies of
 // list, and that nothing that is written into its result reaches them, or another result.
 func checkMemory(t *testing.T, what string, copies []api.Region, list []api.Region, call func() (api.Region, api.Errno)) {
@@ -37,7 +27,7 @@ func checkMemory(t *testing.T, what string, copies []api.Region, list []api.Regi
 	sample.Spoil(first.Curves, markCurve)
 	sample.Spoil(first.Nodes, markNode)
 	for i, r := range list {
-		if !isIntact(copies[i], r) {
+		if !sample.IntactRegion(copies[i], r) {
 			t.Fatalf("%s: %s is modified, or shared", what, text(r))
 		}
 	}
@@ -51,7 +41,7 @@ func checkMemory(t *testing.T, what string, copies []api.Region, list []api.Regi
 func TestRegionMemory(t *testing.T) {
 	x, y := number("1/2"), number("-3")
 	for i, r := range append(sample.Regions(100, few, 91), modest(12, 92)...) {
-		tight := guarded(r)
+		tight := sample.GuardedRegion(r)
 		check := func(what string, call func() (api.Region, api.Errno)) {
 			t.Helper()
 			checkMemory(t, what, []api.Region{tight}, []api.Region{r}, call)
@@ -75,7 +65,7 @@ func TestRegionMemory(t *testing.T) {
 		spare := sample.Guarded(inside, true)
 		region.Evaluate(tight, spare)
 		region.Contains(tight, x, y)
-		if !sample.Intact(spare, inside, true) || !isIntact(tight, r) {
+		if !sample.Intact(spare, inside, true) || !sample.IntactRegion(tight, r) {
 			t.Fatalf("%s, or the values of its leaves, are modified", text(r))
 		}
 	}
@@ -86,7 +76,7 @@ func TestCombineMemory(t *testing.T) {
 	list := modest(16, 93)
 	for _, a := range list {
 		for _, b := range list {
-			one, other := guarded(a), guarded(b)
+			one, other := sample.GuardedRegion(a), sample.GuardedRegion(b)
 			for op := api.RUnion; op <= api.RMinus; op++ {
 				checkMemory(t, "Combine", []api.Region{one, other}, []api.Region{a, b}, func() (api.Region, api.Errno) { return region.Combine(op, one, other) })
 			}

@@ -14,7 +14,12 @@ func Guarded[T any](list []T, marker T) []T {
 
 // Intact reports whether the guarded slice is still a copy of list.
 func Intact[T comparable](guarded []T, list []T, marker T) bool {
-	return slices.Equal(guarded[:cap(guarded)], Guarded(list, marker)[:len(list)+spare])
+	return isIntact(guarded, list, marker, func(a, b T) bool { return a == b })
+}
+
+// isIntact is Intact for items that are compared by a function.
+func isIntact[T any](guarded []T, list []T, marker T, same func(a, b T) bool) bool {
+	return slices.EqualFunc(guarded[:cap(guarded)], Guarded(list, marker)[:len(list)+spare], same)
 }
 
 // Spoil overwrites list and its spare capacity.

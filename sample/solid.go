@@ -107,6 +107,30 @@ func prism(regions []api.Region, heights []api.Ratio, seed uint64) api.Prism {
 	}
 }
 
+// Heights returns so few heights that many solids have levels in common.
+func Heights() []api.Ratio { return Numbers("0 1 2 3 4 -1 1/2 -1/2 7/3") }
+
+// Points returns count points (x, y, z), of which x and y are from plane, and z from
+// upright.
+func Points(count int, plane []api.Ratio, upright []api.Ratio, seed uint64) [][3]api.Ratio {
+	random := Bytes(6*count, seed)
+	pick := func(i int, list []api.Ratio) api.Ratio {
+		return list[(int(random[i])+int(random[i+1])<<8)%len(list)]
+	}
+	var out [][3]api.Ratio
+	for i := range count {
+		out = append(out, [3]api.Ratio{pick(6*i, plane), pick(6*i+2, plane), pick(6*i+4, upright)})
+	}
+	return out
+}
+
+// PointsNear returns count points with coordinates from -3 to 5, of which many are on
+// curves of Shapes and at Heights.
+func PointsNear(count int, seed uint64) [][3]api.Ratio {
+	plane := Numbers("0 1 -1 2 -2 3 -3 1/2 -1/2 3/2 3/5 4/5 -3/5 7/4 1/3")
+	return Points(count, plane, slices.Concat(Heights(), Numbers("5/2 1/4 -3/4 7/5 10/3 6 -5")), seed)
+}
+
 // InvalidSolids returns solids that are not valid: they have too many prisms, or one of
 // them has an invalid region, ends that are invalid or not ascending, or a feature that
 // cannot be one.

@@ -42,8 +42,8 @@ func TestContains(t *testing.T) {
 	t.Parallel()
 	count := map[string]int{}
 	for i, s := range solids(51, 11) {
-		list := near(20, uint64(i))
-		for _, p := range places(10, large(12), slices.Concat(heights, levelsOf(s)), uint64(i)) {
+		list := sample.PointsNear(20, uint64(i))
+		for _, p := range sample.Points(10, large(12), slices.Concat(heights, levelsOf(s)), uint64(i)) {
 			list = append(list, p, [3]api.Ratio{p[0], number("0"), p[2]}, [3]api.Ratio{number("1/2"), p[1], p[2]}, [3]api.Ratio{number("1/2"), number("-1/3"), p[2]})
 		}
 		for _, p := range list {

@@ -16,34 +16,6 @@ var (
 	markRatio = api.Ratio{Num: "marker"}
 )
 
-// guarded returns a copy of s with spare capacity everywhere, in which the marks stand.
-func guarded(s api.Solid) api.Solid {
-	out := api.Solid{Prisms: sample.Guarded(s.Prisms, markPrism)}
-	for i, p := range s.Prisms {
-		out.Prisms[i].Region = api.Region{Curves: sample.Guarded(p.Region.Curves, markCurve), Nodes: sample.Guarded(p.Region.Nodes, markNode)}
-	}
-	return out
-}
-
-// isIntact reports whether the guarded solid is still a copy of s.
-func isIntact(copied, s api.Solid) bool {
-	if text(copied) != text(s) {
-		return false
-	}
-	for i, p := range s.Prisms {
-		r := copied.Prisms[i].Region
-		if !sample.Intact(r.Curves, p.Region.Curves, markCurve) || !sample.Intact(r.Nodes, p.Region.Nodes, markNode) {
-			return false
-		}
-	}
-	for _, p := range copied.Prisms[len(s.Prisms):cap(copied.Prisms)] {
-		if text(api.Solid{Prisms: []api.Prism{p}}) != text(api.Solid{Prisms: []api.Prism{markPrism}}) {
-			return false
-		}
-	}
-	return true
-}
-
 // spoilRegion overwrites r and its spare capacity.
 func spoilRegion(r api.Region) {
 	sample.Spoil(r.Curves, markCurve)
@@ -72,7 +44,7 @@ func TestMemory(t *testing.T) {
 	list := append(shaped(34, 5, 91), solids(6, 92)...)
 	for i, s := range list {
 		other := list[(i*7+3)%len(list)]
-		tight, tightOther := guarded(s), guarded(other)
+		tight, tightOther := sample.GuardedSolid(s), sample.GuardedSolid(other)
 		check := func(what string, call func() (api.Solid, api.Errno)) {
 			t.Helper()
 			first, err := call()
@@ -80,7 +52,7 @@ func TestMemory(t *testing.T) {
 			if !spoil(first) {
 				t.Errorf("%s: prisms of %.900s share memory", what, want)
 			}
-			if !isIntact(tight, s) || !isIntact(tightOther, other) {
+			if !sample.IntactSolid(tight, s) || !sample.IntactSolid(tightOther, other) {
 				t.Fatalf("%s: %.900s or %.900s is modified, or shared", what, text(s), text(other))
 			}
 			if got := outcome(call()); got != want {
@@ -103,10 +75,10 @@ func TestMemory(t *testing.T) {
 		if decision(solid.Equal(tight, tightOther)) != decision(solid.Equal(s, other)) || decision(solid.Empty(tight)) != decision(solid.Empty(s)) {
 			t.Errorf("%d: another decision with spare capacity", i)
 		}
-		for _, p := range near(3, uint64(i)) {
+		for _, p := range sample.PointsNear(3, uint64(i)) {
 			solid.Contains(tight, p[0], p[1], p[2])
 		}
-		if !isIntact(tight, s) || !isIntact(tightOther, other) {
+		if !sample.IntactSolid(tight, s) || !sample.IntactSolid(tightOther, other) {
 			t.Fatalf("%d: %.900s or %.900s is modified", i, text(s), text(other))
 		}
 	}
@@ -116,7 +88,7 @@ func TestMemory(t *testing.T) {
 // result.
 func TestSectionMemory(t *testing.T) {
 	for i, s := range append(shaped(34, 5, 93), solids(6, 94)...) {
-		tight := guarded(s)
+		tight := sample.GuardedSolid(s)
 		want := levelsText(wantLevels(s))
 		for round := range 2 {
 			levels := solid.Levels(tight)
@@ -132,7 +104,7 @@ func TestSectionMemory(t *testing.T) {
 				}
 			}
 			sample.Spoil(levels, markRatio)
-			if !isIntact(tight, s) {
+			if !sample.IntactSolid(tight, s) {
 				t.Fatalf("%d: %.900s is modified, or shared", i, text(s))
 			}
 		}

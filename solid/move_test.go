@@ -27,8 +27,8 @@ func TestMove(t *testing.T) {
 	t.Parallel()
 	count := map[bool]int{}
 	for i, s := range solids(51, 51) {
-		list := places(4, few, few, uint64(i))
-		for _, d := range places(3, large(52), large(53), uint64(i)) {
+		list := sample.Points(4, few, few, uint64(i))
+		for _, d := range sample.Points(3, large(52), large(53), uint64(i)) {
 			list = append(list, d, [3]api.Ratio{d[0], number("0"), number("1")}, [3]api.Ratio{number("0"), d[1], number("0")}, [3]api.Ratio{number("0"), number("1/2"), d[2]})
 		}
 		for _, d := range list {

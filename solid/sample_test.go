@@ -15,8 +15,7 @@ func number(s string) api.Ratio { return sample.Number(s) }
 // on curves.
 var few = sample.Numbers("0 1 -1 2 -2 3 -3 4 5 1/2 -1/2 3/2 25 9/4 1/4")
 
-// heights are so few that many solids have levels in common.
-var heights = sample.Numbers("0 1 2 3 4 -1 1/2 -1/2 7/3")
+var heights = sample.Heights()
 
 // large returns fractions of which operations are often too large, or nearly so.
 func large(seed uint64) []api.Ratio {
@@ -42,27 +41,6 @@ func solids(count int, seed uint64) []api.Solid {
 // drilled is a box with a hole, the solid of the examples.
 func drilled() api.Solid {
 	return sample.Solid("add 0 3 rectangle 0 0 4 4; cut 1 5 disc 2 2 1")
-}
-
-// places returns count points (x, y, z), of which x and y are from plane, and z from
-// upright.
-func places(count int, plane []api.Ratio, upright []api.Ratio, seed uint64) [][3]api.Ratio {
-	random := sample.Bytes(6*count, seed)
-	pick := func(i int, list []api.Ratio) api.Ratio {
-		return list[(int(random[i])+int(random[i+1])<<8)%len(list)]
-	}
-	var out [][3]api.Ratio
-	for i := range count {
-		out = append(out, [3]api.Ratio{pick(6*i, plane), pick(6*i+2, plane), pick(6*i+4, upright)})
-	}
-	return out
-}
-
-// near returns count points with coordinates from -3 to 5, of which many are on curves
-// and at levels.
-func near(count int, seed uint64) [][3]api.Ratio {
-	plane := sample.Numbers("0 1 -1 2 -2 3 -3 1/2 -1/2 3/2 3/5 4/5 -3/5 7/4 1/3")
-	return places(count, plane, slices.Concat(heights, sample.Numbers("5/2 1/4 -3/4 7/5 10/3 6 -5")), seed)
 }
 
 // levelsOf returns the levels of s.

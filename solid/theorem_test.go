@@ -112,7 +112,7 @@ func TestSections(t *testing.T) {
 	count := map[string]int{}
 	formulas := sample.Solids(34, 3, sample.Regions(12, few, 71), heights, 71)
 	for i, s := range slices.Concat(shaped(102, 16, 72), shaped(60, 5, 73), formulas) {
-		for _, p := range near(40, uint64(i)) {
+		for _, p := range sample.PointsNear(40, uint64(i)) {
 			r, err := solid.Section(s, p[2])
 			if err != api.OK {
 				continue
@@ -156,7 +156,7 @@ func TestBooleans(t *testing.T) {
 				if err != api.OK {
 					continue
 				}
-				for _, p := range near(16, uint64(100*i+k)) {
+				for _, p := range sample.PointsNear(16, uint64(100*i+k)) {
 					if isAtLevel(p, a, b) {
 						continue
 					}
@@ -243,7 +243,7 @@ func TestEquality(t *testing.T) {
 		if !equal && !isDifference(a, b, p) {
 			t.Errorf("Equal(%s; %s) = false, %v", text(a), text(b), p)
 		}
-		for _, p := range near(20, seed) {
+		for _, p := range sample.PointsNear(20, seed) {
 			if equal && !isAtLevel(p, a, b) && !isOnCurve(p, a, b) {
 				count["points "+strconv.FormatBool(fills(a, p))]++
 				if fills(a, p) != fills(b, p) {
@@ -289,7 +289,7 @@ func TestMoved(t *testing.T) {
 	formulas := sample.Solids(34, 16, sample.Regions(25, few, 77), heights, 77)
 	far := slices.Concat(few, sample.Fractions(20, 20, 78))
 	for i, s := range append(shaped(102, 16, 79), formulas...) {
-		d := places(1, far, far, uint64(i))[0]
+		d := sample.Points(1, far, far, uint64(i))[0]
 		var back [3]api.Ratio
 		for axis := range back {
 			back[axis] = sample.Needed(rational.Sub(number("0"), d[axis]))
@@ -299,7 +299,7 @@ func TestMoved(t *testing.T) {
 		if err != api.OK || errBack != api.OK || !solid.Same(again, s) {
 			t.Fatalf("Move(%s; %v) and back = %s, %d, %d", text(s), d, text(again), err, errBack)
 		}
-		for _, p := range near(15, uint64(i)) {
+		for _, p := range sample.PointsNear(15, uint64(i)) {
 			want := fills(s, p)
 			if contains(moved, shifted(p, d)) != want {
 				t.Errorf("Move(%s; %v) contains %v, moved: not %t", text(s), d, p, want)
